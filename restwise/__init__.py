@@ -1,0 +1,1 @@
+"""Restwise: handlers that run the rest never, once or again."""

@@ -1,0 +1,1 @@
+"""Words and codes, on which all else is built."""
