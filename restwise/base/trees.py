@@ -90,19 +90,21 @@ def quiet_tops(nodes, tops):
     return tuple(quiet)
 
 
-def free_labels(nodes, tops):
-    """For each node its free labels, ascending, as if calls asked nothing."""
+def free_labels(nodes, tops, called):
+    """For each node its free labels, ascending, by those of the called functions; absent ones ask nothing."""
     free = [() for _ in nodes]
     for index in reversed(range(len(nodes))):
         below = [free[top] for top in tops[index]]
-        free[index] = _free_above(nodes[index], below)
+        free[index] = _free_above(nodes[index], below, called)
     return tuple(free)
 
 
-def _free_above(node, below):
-    """The free labels of a node, by those of its children."""
+def _free_above(node, below, called):
+    """The free labels of a node, by those of its children and of the called functions."""
     if node[0] == "ask":
         return node[1:]
+    if node[0] == "call":
+        return called.get(node[1], ())
     answered = node[1:] if node[0] == "handle" else ()
     work = [label for labels in below[:1] for label in labels if label not in answered]
     others = [label for labels in below[1:] for label in labels]
@@ -110,9 +112,9 @@ def _free_above(node, below):
 
 
 def is_sound(nodes, tops):
-    """Whether each rest stands where it may, and all is quiet that must be."""
+    """Whether each rest stands where it may, and all is quiet that must be, as if calls asked nothing."""
     homes = rest_homes(nodes, tops)
     if any([node[0] == "rest" and home is None for node, home in zip(nodes, homes)]):
         return False
-    free = free_labels(nodes, tops)
+    free = free_labels(nodes, tops, {})
     return all([free[index] == () for index in quiet_tops(nodes, tops)])

@@ -15,6 +15,13 @@ def is_integer(value):
     return -(10 ** 60) < value < 10 ** 60
 
 
+def has_boolean(value):
+    """Whether True or False is in the value, also within tuples: `True == 1`, but they are not the same."""
+    if isinstance(value, tuple):
+        return any([has_boolean(item) for item in value])
+    return isinstance(value, bool)
+
+
 def is_name(value):
     """Whether the value is one to eight letters from a to z, and no keyword."""
     if not isinstance(value, str) or not 1 <= len(value) <= MAX_LETTERS:

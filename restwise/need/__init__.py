@@ -1,0 +1,1 @@
+"""What code needs: facts, the rules that make them, tables and lines."""

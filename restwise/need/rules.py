@@ -1,0 +1,135 @@
+"""Tables of a program, and the rules by which each node's facts are made of those of others."""
+
+from restwise.base.programs import check_program
+from restwise.errors import InvalidFact, InvalidTable
+from restwise.need.families import Facts, bits_of, facts_from, family_in, has_fact_form, labels_of
+from restwise.need.makings import backs_by, family_made, is_again
+from restwise.need.rounds import grown, last_families
+
+
+def is_outcome_at(shape, number, outcome):
+    """Whether facts of this node in a table can have this outcome, which is one."""
+    if outcome[0] == "ask":
+        return outcome[1] in shape.labels
+    if outcome[0] != "rest":
+        return True
+    rest = shape.start_of(number) + outcome[1]
+    if not number <= rest < shape.ends[number] or shape.owners[rest] is None:
+        return False
+    # A clause that has the rest and begins ahead of the node is around it.
+    return shape.owners[rest] <= number
+
+
+def is_fact_at(shape, number, value):
+    """Whether the value is a fact that `Facts` of this node in a table can have."""
+    if not has_fact_form(value) or not all([label in shape.labels for label in labels_of([value])]):
+        return False
+    return is_outcome_at(shape, number, value[-1])
+
+
+def check_fact(shape, number, fact):
+    """Refuses what is no fact that this node can have."""
+    if not is_fact_at(shape, number, fact):
+        raise InvalidFact("this is no fact that this node can have")
+
+
+def _is_facts_at(shape, number, value):
+    """Whether the value is `Facts` that this node can have in a table."""
+    if not isinstance(value, Facts):
+        return False
+    if not all([label in shape.labels for label in value.labels]):
+        return False
+    return all([is_outcome_at(shape, number, outcome) for outcome in value.outcomes])
+
+
+def is_table(program, value):
+    """Whether the value is a table of the program."""
+    check_program(program)
+    shape = program.shape
+    if not isinstance(value, dict) or len(value) != len(shape.places):
+        return False
+    if not all([shape.has_place(place) for place in value]):
+        return False
+    return all([_is_facts_at(shape, number, value[place]) for number, place in enumerate(shape.places)])
+
+
+def check_table(program, table):
+    """Refuses what is no table of the program."""
+    if not is_table(program, table):
+        raise InvalidTable("this is no table of the program")
+
+
+def families_of(program, rows):
+    """The families of a table, in the order of the places."""
+    bits = bits_of(program.labels)
+    return [family_in(bits, rows[place]) for place in program.shape.places]
+
+
+def rows_of(program, families):
+    """The table with these families, which are in the order of the places."""
+    bits = bits_of(program.labels)
+    return {place: facts_from(bits, family) for place, family in zip(program.shape.places, families)}
+
+
+def _rest_at(program, place):
+    check_program(program)
+    return program.shape.number_of(place, "rest")
+
+
+def following(program, place):
+    """The places of what follows a rest, from the inside out."""
+    rest = _rest_at(program, place)
+    return program.shape.places_of(program.shape.followings[rest])
+
+
+def has_more(program, place):
+    """Whether a node other than done and then is in what follows a rest."""
+    rest = _rest_at(program, place)
+    shape = program.shape
+    nodes = [node for top in shape.followings[rest] for node in shape.nodes[top:shape.ends[top]]]
+    return any([node[0] not in ("done", "then") for node in nodes])
+
+
+def goes_back(program, place, table):
+    """Whether a rest goes on back by a table."""
+    rest = _rest_at(program, place)
+    check_table(program, table)
+    return backs_by(program.shape, families_of(program, table))[rest]
+
+
+def goes_again(program, place, table):
+    """Whether a rest goes on again by a table."""
+    rest = _rest_at(program, place)
+    check_table(program, table)
+    return is_again(program.shape, families_of(program, table), rest)
+
+
+def facts_made(program, place, table):
+    """The facts that the rules make at this node when they are used once."""
+    check_program(program)
+    shape = program.shape
+    number = shape.number_at(place)
+    check_table(program, table)
+    families = families_of(program, table)
+    bits = bits_of(program.labels)
+    return facts_from(bits, family_made(shape, bits, number, families, backs_by(shape, families)))
+
+
+def history_of(program):
+    """How the least table grows [rounds]; it is worked out once for a program."""
+    return program.kept("history", _history_made)
+
+
+def _history_made(program):
+    return grown(program.shape, bits_of(program.labels), [{} for _ in program.shape.places])
+
+
+def least_table(program):
+    """The least table."""
+    check_program(program)
+    rows = program.kept("least table", _least_rows)
+    return {place: rows[place] for place in rows}
+
+
+def _least_rows(program):
+    return rows_of(program, last_families(program.shape, history_of(program)))

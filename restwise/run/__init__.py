@@ -1,0 +1,1 @@
+"""Runs of programs, and what marks make of them."""
