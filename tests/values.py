@@ -1,7 +1,17 @@
 """Values of every kind that a caller can pass [0.4], and codes for tests."""
 
 from restwise.base.codes import Code
+from restwise.base.programs import Program
 from restwise.errors import InvalidCode, ParseError, UnknownName
+from restwise.need.families import Facts
+from restwise.need.lines import Lines
+from restwise.need.tables import Table
+from restwise.run.marked import Marked, Marking
+from restwise.run.runs import Run
+
+PLAIN = Program.from_lines("get: done")
+OBJECTS = (PLAIN, Run(PLAIN, "get"), Marking(PLAIN, {}), Marked(Run(PLAIN, "get"), Marking(PLAIN, {})), Facts.ask("get"), Table(PLAIN),
+           Lines(PLAIN, ((("get", 0), ((), ("end",)), ()),)))
 
 
 def nested(kind, depth):
@@ -26,7 +36,7 @@ def every_kind():
         {}, {"get": "put"}, {"get": Code.leaf("done")}, {1: 2}, {None: None}, {("get",): "put"}, {"get": []},
         nested(list, 8), nested(tuple, 8), nested(dict, 8),
         Code.leaf("done"), Code.leaf("rest"), (Code.leaf("done"),), [Code.leaf("done")], {"get": Code.leaf("ask", "get")},
-        ParseError(None), UnknownName("get"), InvalidCode("no code"),
+        ParseError(None), UnknownName("get"), InvalidCode("no code"), *OBJECTS,
     ]
 
 

@@ -237,6 +237,18 @@ class Program:
         return f"program of {len(self._functions)} functions, {len(self._shape.nodes)} nodes"
 
 
+def check_program(program):
+    """Refuses what is no program."""
+    if not isinstance(program, Program):
+        raise InvalidProgram("this is no program")
+
+
+def check_name(program, name):
+    """Refuses what is not the name of a function of the program."""
+    if name not in program:
+        raise UnknownName(name)
+
+
 def _renamed_code(code, functions, labels, steps):
     """The code with other names, by dicts that can tell more names than it has."""
     return code.renamed(
@@ -270,15 +282,3 @@ def inlined(program, place):
     except InvalidCode:
         raise InvalidProgram("this makes too many nodes") from None
     return program.with_function(name, code)
-
-
-def check_program(program):
-    """Refuses what is no program."""
-    if not isinstance(program, Program):
-        raise InvalidProgram("this is no program")
-
-
-def check_name(program, name):
-    """Refuses what is not the name of a function of the program."""
-    if name not in program:
-        raise UnknownName(name)
