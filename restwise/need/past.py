@@ -9,7 +9,7 @@ from restwise.need.uses import (BACK, END_WAY, LEAVES, bare_mask, chained_triple
 
 
 class Past:
-    """The rounds of the least table of a program [rounds]."""
+    """The rounds of the least table of a program, and what was made of what in them."""
 
     def __init__(self, shape, bits, history):
         self.shape = shape

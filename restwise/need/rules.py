@@ -116,7 +116,7 @@ def facts_made(program, place, table):
 
 
 def history_of(program):
-    """How the least table grows [rounds]; it is worked out once for a program."""
+    """How the least table grows, round by round; it is worked out once for a program."""
     return program.kept("history", _history_made)
 
 
