@@ -178,6 +178,31 @@ class Forms(unittest.TestCase):
         self.right(program, pair, rest_way, third, behind, work, *ask, last,
                    (main(0), ("c", (("b", "back"), ("c", "back")), END), (4, 7, 8, 11, 10, 8)), word="ended")
 
+    def test_needs_of_pairs_in_a_clause(self):
+        program = Program.from_lines("main: handle a: ask a done then ask b then ask c rest")
+        # 0 handle, 1 ask a, 2 done, 3 then, 4 ask b, 5 then, 6 ask c, 7 rest
+        work, done, rest, back = (main(1), ("a", (), END), ()), (main(2), WAY, ()), (main(7), ((), ("rest", 7)), ()), (main(7), BACK, ())
+        first = ((main(4), ("b", (), END), ()), (main(6), (("c",), END), ()), (main(5), (("c",), ("rest", 7)), (5, 2)),
+                 (main(3), ("b", (("c", "back"),), ("rest", 7)), (4, 6)))
+        self.right(program, work, done, rest, back, *first, (main(0), ("b", (("c", "back"),), END), (0, 7, 3, 1)), word="ended")
+        second = ((main(4), (("b",), END), ()), (main(6), ("c", (), END), ()), (main(5), ("c", (), ("rest", 7)), (5, 2)),
+                  (main(3), ("c", (("b", "on"),), ("rest", 7)), (4, 6)))
+        self.right(program, work, done, rest, back, *second, (main(0), ("c", (("b", "on"),), END), (0, 7, 3, 1)), word="ended")
+        for fact in (("c", (), END), ("c", (("b", "back"),), END), ("b", (("c", "back"),), END)):
+            self.assertIs(is_lines(program, (work, done, rest, back, *second, (main(0), fact, (0, 7, 3, 1)))), False)
+        told = shown(program, main(0), ("c", (("b", "on"),), END))
+        self.assertEqual((told.fact, told.rule_at(len(told) - 1)), (("c", (("b", "on"),), END), "ended"))
+
+    def test_a_pair_of_the_work_makes_no_way_and_a_way_no_pair_without_one(self):
+        program = Program.from_lines("main: handle a: test ask a ask b done rest")
+        # 0 handle, 1 test, 2 ask a, 3 ask b, 4 done, 5 rest
+        lines = ((main(2), ("a", (), END), ()), (main(1), ("a", (), END), (0,)), (main(4), WAY, ()), (main(5), ((), ("rest", 5)), ()),
+                 (main(5), BACK, ()), (main(3), ((), ("ask", "b")), ()), (main(1), ((), ("ask", "b")), (5,)))
+        for fact, uses in ((WAY, (1, 3, 4, 2)), (WAY, (1, 2, 3, 4)), (WAY, (1, 2)), (("a", (), END), (1, 2)), (("b", (), END), (1, 2)),
+                           (("b", (), ("ask", "b")), (6,)), (("a", (), ("ask", "b")), (6,))):
+            self.assertIs(is_lines(program, lines + ((main(0), fact, uses),)), False, (fact, uses))
+        self.assertIs(is_lines(program, lines + ((main(0), ((), ("ask", "b")), (6,)),)), True)
+
     def test_pairs_at_the_end(self):
         program = Program.from_lines("main: handle a: ask a ask c rest")
         lines = ((main(1), (("a",), END), ()), (main(2), ("c", (), END), ()), (main(3), ((), ("rest", 3)), ()), (main(3), BACK, ()))

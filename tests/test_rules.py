@@ -6,6 +6,7 @@ import unittest
 from restwise.base.codes import Code
 from restwise.base.programs import Program
 from restwise.need.families import END, Facts
+from restwise.need.lines import round_of, shown
 from restwise.need.rules import (facts_made, following, goes_again, goes_back, has_more, is_table,
                                  least_table)
 from tests import plain_rules
@@ -13,6 +14,7 @@ from tests.making import EXAMPLES, FLIP, INNER, LOG, OUTER, Chance, random_progr
 from tests.values import every_kind
 
 DONE, NONE = Facts.done(), Facts()
+WAY = ((), END)
 
 
 def to_rest(*indices):
@@ -475,6 +477,16 @@ class Least(unittest.TestCase):
             told = least_table(program)
             for place in told:
                 self.assertEqual(set(told[place]), plain_rules.least(table[place]), (program.lines, place))
+
+    def test_a_rest_that_goes_on_back_late_by_another_one(self):
+        for clause in ("then rest then rest hold hold hold done", "then rest then rest then rest hold hold hold done",
+                       "then rest test call main then rest hold hold hold done"):
+            program = Program.from_lines(f"main: handle a: ask a done {clause}")
+            rounds, backs = plain_rules.rounds(program)
+            self.assertEqual(set(backs), set(program.rests))
+            self.assertEqual(least_table(program)[("main", 0)], DONE)
+            self.assertEqual(round_of(program, ("main", 0), WAY), min(rounds[("main", 0)].values()))
+            self.assertEqual(shown(program, ("main", 0), WAY).height, min(rounds[("main", 0)].values()))
 
     def test_code_that_never_ends(self):
         self.assertEqual(least_table(Program.from_lines("main: call main"))[("main", 0)], NONE)

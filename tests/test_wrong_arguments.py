@@ -21,7 +21,7 @@ CALLING = Program.from_lines("f: done", "main: then call f step s")
 WAY = ((), END)
 LINES = shown(LOG, ("main", 0), WAY)
 MORE = [("main", 12), ("main", -1), ("main", True), ("main", False), ("main", 10 ** 60), ("main", "0"), ["main", 0], ("main", 0, 0), ("main",),
-        ("nope", 0), (0, "main"), ("main", (0,)), ("main", None), "main", "nope", ("b", "a"), ("a", "a"), ((), ("rest", True)), ("back",), -1, 13,
+        ("nope", 0), (0, "main"), ("main", (0,)), ("main", None), (["main"], 0), ({}, 0), ("main", [0]), ("main", {}), "main", "nope", ("b", "a"), ("a", "a"), ((), ("rest", True)), ("back",), -1, 13,
         20001, Marking.uniform(FLIP, "copy"), least_table(FLIP), {**TABLE, ("main", 12): Facts()}, {("main", 9): "Copy"}, "copy ", ("rest", -1),
         (("a", "on"), ("a", "back")), ("get", (("get", "on"),), END), Run(FLIP, "main"), Table(FLIP), LINES.lines]
 

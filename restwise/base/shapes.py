@@ -31,9 +31,9 @@ def _owners_of(nodes, tops, start):
     return [start + home if node[0] == "rest" else None for node, home in zip(nodes, homes)]
 
 
-def _clause_tops(nodes, below):
-    """The numbers of the tops of all clauses, ascending."""
-    return tuple(sorted([top for node, tops in zip(nodes, below) if node[0] == "handle" for top in tops[2:]]))
+def _clause_tops(below):
+    """The numbers of the tops of all clauses, ascending: only handles have more than two children."""
+    return tuple(sorted([top for tops in below for top in tops[2:]]))
 
 
 def _followings_of(nodes, below, ends, owners):
@@ -69,7 +69,7 @@ class Shape:
         self.free = tuple([row for name in codes for row in free_labels(codes[name], tops[name], free)])
         self.quiet = tuple([starts[name] + top for name in codes for top in quiet_tops(codes[name], tops[name])])
         self.doubling = tuple([starts[name] + top for name in codes for top in doubling_tops(codes[name], tops[name])])
-        self.clauses = _clause_tops(self.nodes, self.below)
+        self.clauses = _clause_tops(self.below)
         asking = [node for node in self.nodes if node[0] in ("ask", "handle")]
         self.labels = tuple(sorted({label for node in asking for label in node[1:]}))
         self.followings = _followings_of(self.nodes, self.below, self.ends, self.owners)

@@ -21,8 +21,7 @@ def _parts_of(shape, item):
     if node[0] == "call":
         return [shape.starts[node[1]]]
     tops = shape.below[item][2:]
-    rests = [size + rest for rest, owner in enumerate(shape.owners) if node[0] == "handle" and owner in tops]
-    return list(shape.below[item]) + rests
+    return list(shape.below[item]) + [size + rest for rest, owner in enumerate(shape.owners) if owner in tops]
 
 
 def _users_of(shape, items):
@@ -38,7 +37,7 @@ def _worth_made(shape, bits, now, item):
     """The next worth of an item."""
     size = len(shape.nodes)
     if item >= size:
-        return now[item] or is_back(shape, now, now[size:], item - size)
+        return is_back(shape, now, now[size:], item - size)
     return united([now[item], family_made(shape, bits, item, now, now[size:])])
 
 

@@ -83,7 +83,7 @@ def bare_mask(shape, bits, number, work):
 def _is_handle_made(shape, bits, item, used):
     """Whether a rule of a handle makes the item of just these."""
     number, (own, mask, outcome) = item
-    if not used or used[0][0] != shape.below[number][0] or used[0][1] == BACK:
+    if not used or used[0][0] != shape.below[number][0]:
         return False
     work = used[0][1]
     slots = handle_slots(shape, bits, item, work)

@@ -128,7 +128,7 @@ def _clause_at(program, event):
 
 
 def _does_break(event, mark):
-    """Whether a clause with this mark breaks the run by this event."""
+    """Whether a clause with this mark breaks the run by this event; events of no clause have no mark."""
     if mark == "place":
         return event[0] in ("drop", "behind")
     if event[0] != "rest":
@@ -146,7 +146,7 @@ def _deeds_of(event, mark):
 def _first_break(rows):
     """The index of the first event that breaks the run, and its clause; None if none does."""
     for index, (event, clause, mark) in enumerate(rows):
-        if clause is not None and _does_break(event, mark):
+        if _does_break(event, mark):
             return (index, clause)
     return None
 
