@@ -149,6 +149,23 @@ class Names(unittest.TestCase):
                 self.assertNotIn(unit.name, mine, unit.where)
                 self.assertFalse(any(hasattr(kind, unit.name) for kind in (str, int, list, dict, set, bytes)), unit.where)
 
+    def test_no_attribute_has_the_name_of_a_property(self):
+        self.assertEqual(ATTRIBUTES & PROPERTIES, set())
+
+    def test_what_is_called_off_a_value_is_no_attribute(self):
+        for unit in UNITS:
+            for node in ast.walk(unit.node):
+                if isinstance(node, ast.Call) and isinstance(node.func, ast.Attribute):
+                    self.assertNotIn(node.func.attr, ATTRIBUTES, unit.where)
+
+    def test_what_is_walked_is_not_what_is_changed(self):
+        for unit in UNITS:
+            for node in ast.walk(unit.node):
+                if isinstance(node, ast.Call) and isinstance(node.func, ast.Attribute) and node.func.attr in ("extend", "update"):
+                    walked = node.args[0]
+                    if isinstance(walked, ast.Attribute) and isinstance(node.func.value, ast.Attribute):
+                        self.assertNotEqual(walked.attr, node.func.value.attr, unit.where)
+
     def test_no_method_stands_twice(self):
         for name, node in CLASSES.items():
             names = [item.name for item in node.body if isinstance(item, ast.FunctionDef)]

@@ -21,7 +21,7 @@ def _is_functions(value):
 
 def _is_sound(shape):
     """Whether a program can have this shape: not too much of anything, and all is quiet that must be."""
-    if len(shape.labels) > MAX_LABELS or len(shape.numbers_of("handle")) > MAX_HANDLES:
+    if len(shape.label_names) > MAX_LABELS or len(shape.numbers_of("handle")) > MAX_HANDLES:
         return False
     return all([shape.free[number] == () for number in shape.quiet])
 
@@ -93,7 +93,7 @@ class Program:
     @property
     def labels(self):
         """The labels of all asks and handles, ascending."""
-        return self._shape.labels
+        return self._shape.label_names
 
     @property
     def lines(self):
@@ -123,7 +123,7 @@ class Program:
     @property
     def clauses(self):
         """The places of the tops of all clauses, ascending."""
-        return self._shape.places_of(self._shape.clauses)
+        return self._shape.places_of(self._shape.clause_tops)
 
     @property
     def shape(self):
@@ -138,14 +138,14 @@ class Program:
 
     def node(self, place):
         """The node at this place."""
-        return self._shape.nodes[self._shape.number_at(place)]
+        return self._shape.forms[self._shape.number_at(place)]
 
     def clause(self, place, label):
         """The place of the top of the clause that this handle has for the label."""
         sides = self._shape.sides_of(self._shape.number_of(place, "handle"))
         if not isinstance(label, str) or label not in sides:
             raise UnknownName(label)
-        return self._shape.places[sides[label]]
+        return self._shape.spots[sides[label]]
 
     def callers(self, name):
         """The names of the functions that call this one, ascending."""
@@ -175,7 +175,7 @@ class Program:
     def is_doubling(self, place):
         """Whether the clause with this top doubles."""
         number = self._shape.number_at(place)
-        if number not in self._shape.clauses:
+        if number not in self._shape.clause_tops:
             raise UnknownPlace(place)
         return number in self._shape.doubling
 
@@ -234,7 +234,7 @@ class Program:
         return self._functions == other.functions
 
     def __str__(self):
-        return f"program of {len(self._functions)} functions, {len(self._shape.nodes)} nodes"
+        return f"program of {len(self._functions)} functions, {len(self._shape.forms)} nodes"
 
 
 def check_program(program):
@@ -275,7 +275,7 @@ def inlined(program, place):
     """The program with the code of the called function in the place of a call."""
     check_program(program)
     number = program.shape.number_of(place, "call")
-    called = program.shape.nodes[number][1]
+    called = program.shape.forms[number][1]
     name, index = place
     try:
         code = program[name].with_part(index, program[called])

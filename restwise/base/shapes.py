@@ -60,19 +60,19 @@ class Shape:
         free = _free_of_functions(codes, tops)
         starts = _starts_of(codes)
         self.starts = starts
-        self.places = tuple([(name, index) for name in codes for index in range(len(codes[name]))])
-        self.numbers = {place: number for number, place in enumerate(self.places)}
-        self.nodes = tuple([node for name in codes for node in codes[name]])
+        self.spots = tuple([(name, index) for name in codes for index in range(len(codes[name]))])
+        self.numbers = {place: number for number, place in enumerate(self.spots)}
+        self.forms = tuple([node for name in codes for node in codes[name]])
         self.ends = tuple([starts[name] + end for name in codes for end in part_ends(codes[name])])
         self.below = tuple([tuple([starts[name] + top for top in row]) for name in codes for row in tops[name]])
         self.owners = tuple([owner for name in codes for owner in _owners_of(codes[name], tops[name], starts[name])])
         self.free = tuple([row for name in codes for row in free_labels(codes[name], tops[name], free)])
         self.quiet = tuple([starts[name] + top for name in codes for top in quiet_tops(codes[name], tops[name])])
         self.doubling = tuple([starts[name] + top for name in codes for top in doubling_tops(codes[name], tops[name])])
-        self.clauses = _clause_tops(self.below)
-        asking = [node for node in self.nodes if node[0] in ("ask", "handle")]
-        self.labels = tuple(sorted({label for node in asking for label in node[1:]}))
-        self.followings = _followings_of(self.nodes, self.below, self.ends, self.owners)
+        self.clause_tops = _clause_tops(self.below)
+        asking = [node for node in self.forms if node[0] in ("ask", "handle")]
+        self.label_names = tuple(sorted({label for node in asking for label in node[1:]}))
+        self.followings = _followings_of(self.forms, self.below, self.ends, self.owners)
 
     def has_place(self, value):
         """Whether the value is the place of a node."""
@@ -89,22 +89,22 @@ class Shape:
     def number_of(self, place, word):
         """The number of the node at this place, which begins with this word."""
         number = self.number_at(place)
-        if self.nodes[number][0] != word:
+        if self.forms[number][0] != word:
             raise UnknownPlace(place)
         return number
 
     def numbers_of(self, word):
         """The numbers of all nodes that begin with this word, ascending."""
-        return tuple([number for number, node in enumerate(self.nodes) if node[0] == word])
+        return tuple([number for number, node in enumerate(self.forms) if node[0] == word])
 
     def places_of(self, numbers):
         """The places of the nodes with these numbers."""
-        return tuple([self.places[number] for number in numbers])
+        return tuple([self.spots[number] for number in numbers])
 
     def start_of(self, number):
         """The number of the first node of the code in which this node stands."""
-        return number - self.places[number][1]
+        return number - self.spots[number][1]
 
     def sides_of(self, handle):
         """A dict from the labels of a handle to the numbers of the tops of their clauses."""
-        return {label: top for label, top in zip(self.nodes[handle][1:], self.below[handle][2:])}
+        return {label: top for label, top in zip(self.forms[handle][1:], self.below[handle][2:])}

@@ -18,7 +18,7 @@ def _item_of(shape, bits, place, fact):
         return None
     number = shape.numbers[place]
     if fact == GOES_BACK:
-        return (number, BACK) if shape.nodes[number][0] == "rest" else None
+        return (number, BACK) if shape.forms[number][0] == "rest" else None
     return (number, triple_of(bits, fact)) if is_fact_at(shape, number, fact) else None
 
 
@@ -196,7 +196,7 @@ def _written(program, items):
     """The lines that tell these items, each of which stands behind those that it uses."""
     past = past_of(program)
     indices = {item: index for index, item in enumerate(items)}
-    places = program.shape.places
+    places = program.shape.spots
     return tuple([(places[item[0]], GOES_BACK if item[1] == BACK else fact_from(past.bits, item[1]),
                    tuple([indices[used] for used in past.used(item)])) for item in items])
 

@@ -32,7 +32,7 @@ def is_back(shape, families, backs, rest):
 
 def backs_by(shape, families):
     """For each number whether it is that of a rest that goes on back."""
-    backs = [False for _ in shape.nodes]
+    backs = [False for _ in shape.forms]
     # What follows a rest has greater numbers, so the rests in it are told first.
     for rest in sorted(shape.followings, reverse=True):
         backs[rest] = is_back(shape, families, backs, rest)
@@ -59,7 +59,7 @@ def leaf_triples(bits, node, index):
 
 def family_made(shape, bits, number, families, backs):
     """The family that the rules make at a node when they are used once."""
-    node = shape.nodes[number]
+    node = shape.forms[number]
     below = shape.below[number]
     if node[0] == "call":
         return families[shape.starts[node[1]]]
@@ -71,7 +71,7 @@ def family_made(shape, bits, number, families, backs):
         return chained(families[below[0]], families[below[1]], END)
     if node[0] == "handle":
         return _handle_family(shape, bits, number, families, backs)
-    return family_of(leaf_triples(bits, node, shape.places[number][1]))
+    return family_of(leaf_triples(bits, node, shape.spots[number][1]))
 
 
 def _to_rests(shape, top, family, backs):

@@ -12,7 +12,7 @@ class Past:
     """The rounds of the least table of a program, and what was made of what in them."""
 
     def __init__(self, shape, bits, history):
-        self.shape = shape
+        self.form = shape
         self.bits = bits
         self.history = history
         self.known = {}
@@ -34,7 +34,7 @@ class Past:
         """The first round with just this item; None if there is none."""
         number, (own, mask, outcome) = item
         if item[1] == BACK:
-            rounds = [many for many, worth in self.history[len(self.shape.nodes) + number] if worth]
+            rounds = [many for many, worth in self.history[len(self.form.forms) + number] if worth]
         else:
             rounds = [many for many, family in self.history[number] if mask in family.get((own, outcome), ())]
         return rounds[0] if rounds else None
@@ -63,14 +63,14 @@ def _past_made(program):
 def _uses_of(past, item, turn):
     """Items of the rounds up to this one of which a rule makes the item."""
     number, triple = item
-    word = past.shape.nodes[number][0]
+    word = past.form.forms[number][0]
     if triple == BACK:
         return _uses_of_back(past, number, turn)
     if word in LEAVES:
         return []
     if word == "handle":
         return _uses_of_handle(past, item, turn)
-    for top in same_tops(past.shape, item):
+    for top in same_tops(past.form, item):
         if past.is_there((top, triple), turn):
             return [(top, triple)]
     return _uses_of_then(past, item, turn)
@@ -78,11 +78,11 @@ def _uses_of(past, item, turn):
 
 def _uses_of_back(past, rest, turn):
     used = []
-    for part in past.shape.followings[rest]:
+    for part in past.form.followings[rest]:
         families = {part: past.family(part, turn)}
-        for later in rests_by(past.shape, families, part):
+        for later in rests_by(past.form, families, part):
             if past.is_there((later, BACK), turn):
-                outcome = ("rest", past.shape.places[later][1])
+                outcome = ("rest", past.form.spots[later][1])
                 return used + [(part, (0, 0, outcome)), (later, BACK)]
         used = used + [(part, END_WAY)]
     return used
@@ -90,7 +90,7 @@ def _uses_of_back(past, rest, turn):
 
 def _uses_of_then(past, item, turn):
     number, triple = item
-    first, second = past.shape.below[number]
+    first, second = past.form.below[number]
     for one in triples_of(past.family(first, turn)):
         for other in triples_of(past.family(second, turn)):
             if one[2] == END and chained_triple(one, other) == triple:
@@ -99,9 +99,9 @@ def _uses_of_then(past, item, turn):
 
 
 def _uses_of_handle(past, item, turn):
-    work = past.shape.below[item[0]][0]
+    work = past.form.below[item[0]][0]
     for triple in triples_of(past.family(work, turn)):
-        slots = handle_slots(past.shape, past.bits, item, triple)
+        slots = handle_slots(past.form, past.bits, item, triple)
         used = None if slots is None else _filled(past, item, triple, slots, turn)
         if used is not None:
             return [(work, triple)] + used
@@ -111,7 +111,7 @@ def _uses_of_handle(past, item, turn):
 def _filled(past, item, work, slots, turn):
     """Items for all slots with which a rule makes the item of this fact of the work; None if there are none."""
     number, (own, mask, outcome) = item
-    found = {bare_mask(past.shape, past.bits, number, work): []}
+    found = {bare_mask(past.form, past.bits, number, work): []}
     for slot in slots:
         options = _options(past, slot, outcome == END, turn)
         wider = {}
@@ -130,7 +130,7 @@ def _options(past, slot, is_end, turn):
     options = []
     for triple in triples_of(past.family(slot[0], turn)):
         if fits(slot, (slot[0], triple)):
-            items = with_back(past.shape, slot, (slot[0], triple), is_end)
+            items = with_back(past.form, slot, (slot[0], triple), is_end)
             if all([past.is_there(item, turn) for item in items]):
                 options.append((slot[1] * triple[1], items))
     return options

@@ -12,12 +12,12 @@ from restwise.need.masks import united
 
 def _parts_of(shape, item):
     """The items of which an item is made."""
-    size = len(shape.nodes)
+    size = len(shape.forms)
     if item >= size:
         rest = item - size
         parts = list(shape.followings[rest])
         return parts + [size + later for later in shape.followings if shape.owners[later] == shape.owners[rest]]
-    node = shape.nodes[item]
+    node = shape.forms[item]
     if node[0] == "call":
         return [shape.starts[node[1]]]
     tops = shape.below[item][2:]
@@ -35,7 +35,7 @@ def _users_of(shape, items):
 
 def _worth_made(shape, bits, now, item):
     """The next worth of an item."""
-    size = len(shape.nodes)
+    size = len(shape.forms)
     if item >= size:
         return is_back(shape, now, now[size:], item - size)
     return united([now[item], family_made(shape, bits, item, now, now[size:])])
@@ -43,10 +43,10 @@ def _worth_made(shape, bits, now, item):
 
 def grown(shape, bits, families):
     """For each item the pairs (round, worth) of the rounds in which it changes, from a table that begins as told."""
-    size = len(shape.nodes)
+    size = len(shape.forms)
     items = list(range(size)) + [size + rest for rest in shape.followings]
     users = _users_of(shape, items)
-    now = list(families) + [False for _ in shape.nodes]
+    now = list(families) + [False for _ in shape.forms]
     history = [[(0, worth)] for worth in now]
     dirty = items
     many = 0
@@ -63,4 +63,4 @@ def grown(shape, bits, families):
 
 def last_families(shape, history):
     """The families of all nodes behind the last round."""
-    return [rows[-1][1] for rows in history[:len(shape.nodes)]]
+    return [rows[-1][1] for rows in history[:len(shape.forms)]]

@@ -10,7 +10,7 @@ from restwise.need.rounds import grown, last_families
 def is_outcome_at(shape, number, outcome):
     """Whether facts of this node in a table can have this outcome, which is one."""
     if outcome[0] == "ask":
-        return outcome[1] in shape.labels
+        return outcome[1] in shape.label_names
     if outcome[0] != "rest":
         return True
     rest = shape.start_of(number) + outcome[1]
@@ -22,7 +22,7 @@ def is_outcome_at(shape, number, outcome):
 
 def is_fact_at(shape, number, value):
     """Whether the value is a fact that `Facts` of this node in a table can have."""
-    if not has_fact_form(value) or not all([label in shape.labels for label in labels_of([value])]):
+    if not has_fact_form(value) or not all([label in shape.label_names for label in labels_of([value])]):
         return False
     return is_outcome_at(shape, number, value[-1])
 
@@ -37,7 +37,7 @@ def _is_facts_at(shape, number, value):
     """Whether the value is `Facts` that this node can have in a table."""
     if not isinstance(value, Facts):
         return False
-    if not all([label in shape.labels for label in value.labels]):
+    if not all([label in shape.label_names for label in value.labels]):
         return False
     return all([is_outcome_at(shape, number, outcome) for outcome in value.outcomes])
 
@@ -46,11 +46,11 @@ def is_table(program, value):
     """Whether the value is a table of the program."""
     check_program(program)
     shape = program.shape
-    if not isinstance(value, dict) or len(value) != len(shape.places):
+    if not isinstance(value, dict) or len(value) != len(shape.spots):
         return False
     if not all([shape.has_place(place) for place in value]):
         return False
-    return all([_is_facts_at(shape, number, value[place]) for number, place in enumerate(shape.places)])
+    return all([_is_facts_at(shape, number, value[place]) for number, place in enumerate(shape.spots)])
 
 
 def check_table(program, table):
@@ -62,13 +62,13 @@ def check_table(program, table):
 def families_of(program, rows):
     """The families of a table, in the order of the places."""
     bits = bits_of(program.labels)
-    return [family_in(bits, rows[place]) for place in program.shape.places]
+    return [family_in(bits, rows[place]) for place in program.shape.spots]
 
 
 def rows_of(program, families):
     """The table with these families, which are in the order of the places."""
     bits = bits_of(program.labels)
-    return {place: facts_from(bits, family) for place, family in zip(program.shape.places, families)}
+    return {place: facts_from(bits, family) for place, family in zip(program.shape.spots, families)}
 
 
 def _rest_at(program, place):
@@ -86,7 +86,7 @@ def has_more(program, place):
     """Whether a node other than done and then is in what follows a rest."""
     rest = _rest_at(program, place)
     shape = program.shape
-    nodes = [node for top in shape.followings[rest] for node in shape.nodes[top:shape.ends[top]]]
+    nodes = [node for top in shape.followings[rest] for node in shape.forms[top:shape.ends[top]]]
     return any([node[0] not in ("done", "then") for node in nodes])
 
 
@@ -121,7 +121,7 @@ def history_of(program):
 
 
 def _history_made(program):
-    return grown(program.shape, bits_of(program.labels), [{} for _ in program.shape.places])
+    return grown(program.shape, bits_of(program.labels), [{} for _ in program.shape.spots])
 
 
 def least_table(program):

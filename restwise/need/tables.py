@@ -37,7 +37,7 @@ class Table:
             raise InvalidTable("this is no closed table of the program")
         known = least_table(program) if rows is None else rows
         self._program = program
-        self._rows = {place: known[place] for place in program.shape.places}
+        self._rows = {place: known[place] for place in program.shape.spots}
         self._each = tuple([(place, fact) for place, facts in self._rows.items() for fact in facts])
 
     @property

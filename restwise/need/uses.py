@@ -15,7 +15,7 @@ LEAVES = ("done", "step", "ask", "rest")
 def same_tops(shape, item):
     """The numbers of the nodes from which this fact can be taken over as it is."""
     number, triple = item
-    node = shape.nodes[number]
+    node = shape.forms[number]
     if node[0] == "call":
         return (shape.starts[node[1]],)
     if node[0] in ("hold", "test"):
@@ -136,11 +136,11 @@ def _is_then_made(shape, item, used):
 def rule_of(shape, bits, item, used):
     """The word of the rule that makes the item of just these, in this order; None if no rule does."""
     number, triple = item
-    node = shape.nodes[number]
+    node = shape.forms[number]
     if triple == BACK:
         return "back" if _is_back_made(shape, number, used) else None
     if node[0] in LEAVES:
-        is_leaf = triple in leaf_triples(bits, node, shape.places[number][1])
+        is_leaf = triple in leaf_triples(bits, node, shape.spots[number][1])
         return "leaf" if is_leaf and not used else None
     if node[0] == "handle":
         is_made = _is_handle_made(shape, bits, item, used)

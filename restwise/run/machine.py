@@ -15,9 +15,9 @@ class Machine:
     """
 
     def __init__(self, shape, start, world, given, limit, most=None, usual=True):
-        self.shape = shape
-        self.world = world
-        self.given = given
+        self.form = shape
+        self.turns_told = world
+        self.let = given
         self.limit = limit
         self.most = most
         self.usual = usual
@@ -25,14 +25,14 @@ class Machine:
         self.layers = [Frame("begin", start, None)]
         self.behind = None
         self.openings = 0
-        self.row = []
-        self.count = 0
+        self.happened = []
+        self.moved = 0
         self.turns = []
-        self.asked = []
-        self.steps = []
+        self.let_asks = []
+        self.done_steps = []
         self.begun = {}
-        self.end = None
-        while self.end is None:
+        self.outcome = None
+        while self.outcome is None:
             self._go_on()
 
     def _go_on(self):
@@ -46,10 +46,10 @@ class Machine:
             self._leave(frame)
 
     def _tell(self, word, number):
-        self.row.append((word, self.shape.places[number]))
+        self.happened.append((word, self.form.spots[number]))
 
     def _tell_holds(self, word, openings):
-        self.row.extend([(word, self.shape.places[number]) for _, number in openings])
+        self.happened.extend([(word, self.form.spots[number]) for _, number in openings])
 
     def _push(self, word, number, count=0, piece=None):
         self.layers[-1] = Frame(word, number, self.layers[-1], count, piece)
@@ -59,7 +59,7 @@ class Machine:
         self.layers.pop()
         handle = self.owners.pop()
         if handle is None:
-            self.end = ENDED
+            self.outcome = ENDED
         else:
             self._push("last", handle)
 
@@ -72,22 +72,22 @@ class Machine:
             self.behind = frame.number
         else:
             self.behind = None
-            if frame.count == 0:
+            if frame.many == 0:
                 self._tell("drop", frame.number)
                 self._tell_holds("lost", frame.piece.open_holds())
 
     def _begin(self, frame):
         """A node begins, unless the run is cut ahead of it."""
         is_last = frame.word == "last"
-        number = self.shape.below[frame.number][1] if is_last else frame.number
-        node = self.shape.nodes[number]
-        if self.count == self.limit:
-            self.end = CUT
+        number = self.form.below[frame.number][1] if is_last else frame.number
+        node = self.form.forms[number]
+        if self.moved == self.limit:
+            self.outcome = CUT
         elif node[0] == "test" and len(self.turns) == self.most:
-            self.end = TOO_MANY_TESTS
+            self.outcome = TOO_MANY_TESTS
         else:
             self.layers[-1] = frame.below
-            self.count = self.count + 1
+            self.moved = self.moved + 1
             self.begun[number] = True
             if is_last:
                 self._tell("last", frame.number)
@@ -100,29 +100,29 @@ class Machine:
         """What the node itself does; done does nothing."""
         word = node[0]
         if word == "then":
-            self._push("begin", self.shape.below[number][1])
-            self._push("begin", self.shape.below[number][0])
+            self._push("begin", self.form.below[number][1])
+            self._push("begin", self.form.below[number][0])
         elif word == "step":
             self._tell("step", number)
-            self.steps.append(node[1])
+            self.done_steps.append(node[1])
         elif word == "call":
-            self._push("begin", self.shape.starts[node[1]])
+            self._push("begin", self.form.starts[node[1]])
         elif word == "ask":
             self._ask(node[1], number)
         elif word == "rest":
             self._rest(number)
         elif word == "test":
-            self._push("begin", self.shape.below[number][0 if self._turn() else 1])
+            self._push("begin", self.form.below[number][0 if self._turn() else 1])
         elif word == "hold":
             self._hold(number)
         elif word == "handle":
             self.owners.append(number)
-            self.layers.append(Frame("begin", self.shape.below[number][0], None))
+            self.layers.append(Frame("begin", self.form.below[number][0], None))
 
     def _turn(self):
         """The way that the next test takes."""
         tests = len(self.turns)
-        turn = self.world[tests] if tests < len(self.world) else self.usual
+        turn = self.turns_told[tests] if tests < len(self.turns_told) else self.usual
         self.turns.append(turn)
         return turn
 
@@ -130,28 +130,28 @@ class Machine:
         self.openings = self.openings + 1
         self._tell("open", number)
         self._push("close", number, self.openings)
-        self._push("begin", self.shape.below[number][0])
+        self._push("begin", self.form.below[number][0])
 
     def _answering(self, label):
         """The index of the topmost layer whose handle answers the label; 0 if none does."""
         at = len(self.owners) - 1
-        while at > 0 and label not in self.shape.nodes[self.owners[at]]:
+        while at > 0 and label not in self.form.forms[self.owners[at]]:
             at = at - 1
         return at
 
     def _ask(self, label, number):
-        place = self.shape.places[number]
+        place = self.form.spots[number]
         at = self._answering(label)
         if at > 0:
             handle = self.owners[at]
-            self.row.append(("ask", place, self.shape.places[handle]))
-            self._answer(at, self.shape.sides_of(handle)[label])
-        elif label in self.given:
-            self.row.append(("ask", place, ()))
-            self.asked.append(label)
+            self.happened.append(("ask", place, self.form.spots[handle]))
+            self._answer(at, self.form.sides_of(handle)[label])
+        elif label in self.let:
+            self.happened.append(("ask", place, ()))
+            self.let_asks.append(label)
         else:
             self._tell_holds("left", openings_in(self.layers))
-            self.end = ("stop", place)
+            self.outcome = ("stop", place)
 
     def _answer(self, at, top):
         """The layers from this index on are cut off, and the clause with this top runs on the others."""
@@ -168,14 +168,14 @@ class Machine:
         while frame.word != "clause":
             waiting.append(frame.number)
             frame = frame.below
-        many = frame.count + 1
+        many = frame.many + 1
         self.layers[-1] = frame.below
         self._push("clause", frame.number, many, frame.piece)
         for later in waiting[::-1]:
             self._push("begin", later)
         self._push("wait", number)
-        self.row.append(("rest", self.shape.places[number], many))
+        self.happened.append(("rest", self.form.spots[number], many))
         if many > 1:
             self._tell_holds("shared", frame.piece.open_holds())
-        self.owners.extend(frame.piece.owners)
-        self.layers.extend(frame.piece.layers)
+        self.owners.extend(list(frame.piece.owners))
+        self.layers.extend(list(frame.piece.layers))

@@ -108,8 +108,8 @@ class Marking:
         return self._program == other.program and self._marks == other.marks
 
     def __str__(self):
-        marks = list(self._marks.values())
-        return ", ".join([f"{marks.count(mark)} {mark}" for mark in MARKS])
+        many = {mark: len([1 for other in self._marks.values() if other == mark]) for mark in MARKS}
+        return ", ".join([f"{many[mark]} {mark}" for mark in MARKS])
 
 
 def is_marking_of(program, value):
@@ -123,7 +123,7 @@ def _clause_at(program, event):
         return program.clause(event[2], program.node(event[1])[1]) if event[2] != () else None
     if event[0] in ("rest", "behind"):
         shape = program.shape
-        return shape.places[shape.owners[shape.number_at(event[1])]]
+        return shape.spots[shape.owners[shape.number_at(event[1])]]
     return event[1] if event[0] == "drop" else None
 
 

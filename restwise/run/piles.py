@@ -8,7 +8,7 @@ of a piece share them, and a copy takes no longer for a deep pile of few handles
 
 def _is_holding(frame):
     """Whether holds can lie open in what the frame stands for."""
-    return frame.word == "close" or (frame.word == "clause" and frame.count == 0)
+    return frame.word == "close" or (frame.word == "clause" and frame.many == 0)
 
 
 def _nearest_holding(frame):
@@ -21,7 +21,7 @@ def _nearest_holding(frame):
 class Frame:
     """Something that is still to be done, with what lies below it in its layer.
 
-    | word | number | count | piece |
+    | word | number | many | piece |
     | begin | the node that begins | | |
     | last | the handle whose last part begins | | |
     | close | the hold that closes | the opening | |
@@ -29,11 +29,11 @@ class Frame:
     | clause | the top of the clause that ends here | its rests so far | what it answers |
     """
 
-    def __init__(self, word, number, below, count=0, piece=None):
+    def __init__(self, word, number, below, many=0, piece=None):
         self.word = word
         self.number = number
         self.below = below
-        self.count = count
+        self.many = many
         self.piece = piece
         self.beneath = _nearest_holding(below)
 
@@ -62,7 +62,7 @@ def openings_in(layers):
         if frame is not None:
             ahead.append(frame.beneath)
             if frame.word == "close":
-                found.append((frame.count, frame.number))
+                found.append((frame.many, frame.number))
             else:
                 ahead.extend(frame.piece.layers)
     return sorted(set(found))

@@ -40,13 +40,13 @@ class Run:
     def _take(self, world, machine):
         """The run is the one that the machine has made in this world."""
         self._world = world
-        self._row = tuple(machine.row)
-        self._end = machine.end
-        self._moves = machine.count
+        self._row = tuple(machine.happened)
+        self._end = machine.outcome
+        self._moves = machine.moved
         self._tests = len(machine.turns)
-        self._asked = tuple(machine.asked)
-        self._places = machine.shape.places_of(sorted(machine.begun))
-        self._steps = tuple(machine.steps)
+        self._asked = tuple(machine.let_asks)
+        self._places = machine.form.places_of(sorted(machine.begun))
+        self._steps = tuple(machine.done_steps)
 
     @property
     def program(self):
@@ -148,7 +148,7 @@ def all_runs(program, name, tests, *, given=(), moves=200):
     turns = ()
     while turns is not None:
         machine = Machine(program.shape, program.shape.starts[name], turns, given, moves, tests, False)
-        if machine.end != TOO_MANY_TESTS:
+        if machine.outcome != TOO_MANY_TESTS:
             yield _run_of(program, name, given, machine)
         turns = _next_turns(machine.turns)
 
