@@ -27,8 +27,8 @@ def _is_uses(value, index):
     return isinstance(value, tuple) and all([is_integer(use) and 0 <= use < index for use in value])
 
 
-def _words_of(program, value):
-    """The words of the rules of lines; None if the value is no lines of the program."""
+def lines_read(program, value):
+    """The items that lines tell, and the words of their rules; None if the value is no lines of the program."""
     if not isinstance(value, tuple) or not 1 <= len(value) <= MAX_LINES:
         return None
     shape, bits = program.shape, bits_of(program.labels)
@@ -43,13 +43,13 @@ def _words_of(program, value):
             return None
         items.append(item)
         words.append(word)
-    return words
+    return items, words
 
 
 def is_lines(program, value):
     """Whether the value is lines of the program."""
     check_program(program)
-    return _words_of(program, value) is not None
+    return lines_read(program, value) is not None
 
 
 def _heights_of(lines):
@@ -60,12 +60,12 @@ def _heights_of(lines):
     return heights
 
 
-def _leading_to(lines, index):
-    """The indices of the lines that lead to this one, itself included, ascending."""
-    leading = {index: True}
-    for at in reversed(range(index + 1)):
+def leading_by(uses, indices):
+    """These indices and all that lead to them, ascending; `uses` has a row of earlier indices for each index."""
+    leading = {index: True for index in indices}
+    for at in reversed(range(len(uses))):
         if at in leading:
-            for use in lines[at][2]:
+            for use in uses[at]:
                 leading[use] = True
     return sorted(leading)
 
@@ -94,12 +94,12 @@ class Lines:
 
     def __init__(self, program, lines):
         check_program(program)
-        words = _words_of(program, lines)
-        if words is None:
+        found = lines_read(program, lines)
+        if found is None:
             raise InvalidLines("these are no lines of the program")
         self._program = program
         self._lines = lines
-        self._words = words
+        self._words = found[1]
         self._heights = _heights_of(lines)
 
     @property
@@ -135,7 +135,7 @@ class Lines:
     def upto(self, index):
         """This line as the last one, and those that lead to it."""
         self._check_index(index)
-        kept = _leading_to(self._lines, index)
+        kept = leading_by([uses for _, _, uses in self._lines], [index])
         numbers = {old: new for new, old in enumerate(kept)}
         rows = [self._lines[old] for old in kept]
         return Lines(self._program, tuple([(place, fact, tuple([numbers[use] for use in uses]))
@@ -192,13 +192,17 @@ def _checked_item(program, place, fact):
     return number, triple_of(bits_of(program.labels), fact)
 
 
-def _written(program, items):
-    """The lines that tell these items, each of which stands behind those that it uses."""
+def lines_to(program, items):
+    """Lines that tell these items of the least table, and a dict from all items that they tell to their indices."""
     past = past_of(program)
-    indices = {item: index for index, item in enumerate(items)}
-    places = program.shape.spots
-    return tuple([(places[item[0]], GOES_BACK if item[1] == BACK else fact_from(past.bits, item[1]),
-                   tuple([indices[used] for used in past.used(item)])) for item in items])
+    rows = items_to(past, items, MAX_LINES)
+    if rows is None:
+        raise TooMany(MAX_LINES)
+    indices = {item: index for index, item in enumerate(rows)}
+    spots = program.shape.spots
+    lines = tuple([(spots[item[0]], GOES_BACK if item[1] == BACK else fact_from(past.bits, item[1]),
+                    tuple([indices[used] for used in past.used(item)])) for item in rows])
+    return lines, indices
 
 
 def shown(program, place, fact):
@@ -208,10 +212,7 @@ def shown(program, place, fact):
     first = past.round_covering((number, triple))
     if first is None:
         raise InvalidOperation("no lines show the fact")
-    items = items_to(past, (number, first[1]), MAX_LINES)
-    if items is None:
-        raise TooMany(MAX_LINES)
-    return Lines(program, _written(program, items))
+    return Lines(program, lines_to(program, [(number, first[1])])[0])
 
 
 def is_shown(program, place, fact, value):

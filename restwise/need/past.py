@@ -136,10 +136,10 @@ def _options(past, slot, is_end, turn):
     return options
 
 
-def items_to(past, item, limit):
-    """All items that lead to this one, each behind those that it uses; None if they are more than the limit."""
-    rounds = {item: past.round_with(item)}
-    ahead = [item]
+def items_to(past, items, limit):
+    """These items and all that lead to them, each behind those that it uses; None if they are more than the limit."""
+    rounds = {item: past.round_with(item) for item in items}
+    ahead = list(rounds)
     while ahead and len(rounds) <= limit:
         for used in past.used(ahead.pop()):
             if used not in rounds:
@@ -149,3 +149,9 @@ def items_to(past, item, limit):
         return None
     rows = sorted([(many, used) for used, many in rounds.items()])
     return [used for _, used in rows]
+
+
+def earliest(past, number, triples):
+    """Of these facts of a node, which the least table has, one that was first there, as an item."""
+    rows = sorted([(past.round_with((number, triple)), triple) for triple in triples])
+    return number, rows[0][1]

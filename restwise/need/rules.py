@@ -85,7 +85,11 @@ def following(program, place):
 def has_more(program, place):
     """Whether a node other than done and then is in what follows a rest."""
     rest = _rest_at(program, place)
-    shape = program.shape
+    return is_followed(program.shape, rest)
+
+
+def is_followed(shape, rest):
+    """Whether a node other than done and then is in what follows the rest with this number."""
     nodes = [node for top in shape.followings[rest] for node in shape.forms[top:shape.ends[top]]]
     return any([node[0] not in ("done", "then") for node in nodes])
 

@@ -31,6 +31,7 @@ class Machine:
         self.let_asks = []
         self.done_steps = []
         self.begun = {}
+        self.again_rests = {}
         self.outcome = None
         while self.outcome is None:
             self._go_on()
@@ -51,8 +52,8 @@ class Machine:
     def _tell_holds(self, word, openings):
         self.happened.extend([(word, self.form.spots[number]) for _, number in openings])
 
-    def _push(self, word, number, count=0, piece=None):
-        self.layers[-1] = Frame(word, number, self.layers[-1], count, piece)
+    def _push(self, word, number, many=0, piece=None, last_rest=None):
+        self.layers[-1] = Frame(word, number, self.layers[-1], many, piece, last_rest)
 
     def _end_work(self):
         """The handle goes, and its last part is to begin; the lowest layer has none."""
@@ -170,12 +171,13 @@ class Machine:
             frame = frame.below
         many = frame.many + 1
         self.layers[-1] = frame.below
-        self._push("clause", frame.number, many, frame.piece)
+        self._push("clause", frame.number, many, frame.piece, number)
         for later in waiting[::-1]:
             self._push("begin", later)
         self._push("wait", number)
         self.happened.append(("rest", self.form.spots[number], many))
         if many > 1:
+            self.again_rests[frame.last_rest] = True
             self._tell_holds("shared", frame.piece.open_holds())
         self.owners.extend(list(frame.piece.owners))
         self.layers.extend(list(frame.piece.layers))

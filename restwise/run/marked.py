@@ -9,7 +9,8 @@ MARKS = ("place", "jump", "move", "copy")
 REST_DEEDS = {"place": 0, "jump": 0, "move": 1, "copy": 2}
 
 
-def _is_mark(value):
+def is_mark(value):
+    """Whether the value is a mark."""
     return isinstance(value, str) and value in MARKS
 
 
@@ -17,7 +18,7 @@ def _is_marks(program, value):
     """Whether the value is a dict from just the clauses of the program to marks."""
     if not isinstance(value, dict) or len(value) != len(program.clauses):
         return False
-    return all([clause in value and _is_mark(value[clause]) for clause in program.clauses])
+    return all([clause in value and is_mark(value[clause]) for clause in program.clauses])
 
 
 def _lower(one, other):
@@ -44,7 +45,7 @@ class Marking:
     def uniform(cls, program, mark):
         """The marking that gives all clauses this mark."""
         check_program(program)
-        if not _is_mark(mark):
+        if not is_mark(mark):
             raise InvalidMarking("there is no such mark")
         return cls(program, {clause: mark for clause in program.clauses})
 
@@ -61,7 +62,7 @@ class Marking:
     def with_mark(self, clause, mark):
         """The marking with another mark for this clause."""
         self._check_clause(clause)
-        if not _is_mark(mark):
+        if not is_mark(mark):
             raise InvalidMarking("there is no such mark")
         marks = self.marks
         marks[clause] = mark

@@ -21,20 +21,21 @@ def _nearest_holding(frame):
 class Frame:
     """Something that is still to be done, with what lies below it in its layer.
 
-    | word | number | many | piece |
-    | begin | the node that begins | | |
-    | last | the handle whose last part begins | | |
-    | close | the hold that closes | the opening | |
-    | wait | the rest behind which a clause waits | | |
-    | clause | the top of the clause that ends here | its rests so far | what it answers |
+    | word | number | many | piece | last_rest |
+    | begin | the node that begins | | | |
+    | last | the handle whose last part begins | | | |
+    | close | the hold that closes | the opening | | |
+    | wait | the rest behind which a clause waits | | | |
+    | clause | the top of the clause that ends here | its rests so far | what it answers | the last one of them |
     """
 
-    def __init__(self, word, number, below, many=0, piece=None):
+    def __init__(self, word, number, below, many=0, piece=None, last_rest=None):
         self.word = word
         self.number = number
         self.below = below
         self.many = many
         self.piece = piece
+        self.last_rest = last_rest
         self.beneath = _nearest_holding(below)
 
 

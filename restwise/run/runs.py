@@ -47,6 +47,7 @@ class Run:
         self._asked = tuple(machine.let_asks)
         self._places = machine.form.places_of(sorted(machine.begun))
         self._steps = tuple(machine.done_steps)
+        self._repeated = machine.form.places_of(sorted(machine.again_rests))
 
     @property
     def program(self):
@@ -102,6 +103,11 @@ class Run:
     def steps(self):
         """The names of the steps, in order."""
         return self._steps
+
+    @property
+    def repeated(self):
+        """The places, ascending, of the ended rests behind which the same clause has come to a further rest."""
+        return self._repeated
 
     def first(self, event):
         """The index of the first such event in the row, or None."""

@@ -1,0 +1,1 @@
+"""What is around code: standings, right marks, trails, runs that show events, and holds."""
