@@ -28,6 +28,7 @@ class PlainRun:
         self.row, self.end, self.moves, self.tests = [], None, 0, 0
         self.asked, self.places, self.steps = [], set(), []
         self.opened = 0
+        self.again = set()
         self.ended_rest = None
         self.pile = [{"word": "node", "place": (name, 0)}]
         while self.end is None:
@@ -133,7 +134,10 @@ class PlainRun:
 
     def do_rest(self, place, node):
         clause = [frame for frame in self.pile if frame["word"] == "clause"][-1]
+        if clause["rests"] > 0:
+            self.again.add(clause["last"])
         clause["rests"] += 1
+        clause["last"] = place
         self.row.append(("rest", place, clause["rests"]))
         if clause["rests"] > 1:
             self.tell("shared", clause["piece"])
