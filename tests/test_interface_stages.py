@@ -3,6 +3,11 @@
 import inspect
 import unittest
 
+from restwise.around import marks, shown as shown_events, standings, trails
+from restwise.around.marks import Marks
+from restwise.around.shown import event_paper, happens_in, is_event_paper, run_to, trail_to
+from restwise.around.standings import Standings
+from restwise.around.trails import Trail, is_trail
 from restwise.base import programs
 from restwise.base.programs import Program, inlined, renamed
 from restwise.errors import InvalidProgram
@@ -22,6 +27,8 @@ CONSTANTS = {
     marked: {"MARKS": ("place", "jump", "move", "copy")},
     families: {"LEVELS": ("on", "back"), "END": ("end",), "MOST_LABELS": 6},
     lines: {"MAX_LINES": 4000},
+    standings: {"MAX_STANDINGS": 20000},
+    trails: {"MAX_POINTS": 20000},
 }
 FUNCTIONS = {
     programs: {"renamed": "(program, *, functions, labels, steps)", "inlined": "(program, place)"},
@@ -35,12 +42,20 @@ FUNCTIONS = {
              "is_denial": "(program, place, fact, value)"},
     lines: {"is_lines": "(program, value)", "shown": "(program, place, fact)",
             "is_shown": "(program, place, fact, value)", "round_of": "(program, place, fact)"},
+    standings: {"is_context": "(program, value)", "is_event": "(program, value)", "is_closed_set": "(program, name, table, value)",
+                "never_paper": "(program, name, event)", "is_never_paper": "(program, name, event, value)"},
+    marks: {"alike_paper": "(program, name, marking)", "is_alike_paper": "(program, name, marking, value)"},
+    trails: {"is_trail": "(program, name, value)"},
+    shown_events: {"trail_to": "(program, name, event)", "happens_in": "(run, event)", "run_to": "(program, name, event)",
+                   "event_paper": "(program, name, event)", "is_event_paper": "(program, name, event, value)"},
 }
 CLASSES = {
     Program: "(functions)", Run: "(program, name, world=(), *, given=(), moves=2000)", Marking: "(program, marks)",
     Marked: "(run, marking)", Facts: "(ways=(), pairs=())", Table: "(program, rows=None)", Lines: "(program, lines)",
+    Standings: "(program, name)", Marks: "(program, name)", Trail: "(program, name, lines, points)",
 }
-HOMES = {Program: programs, Run: runs, Marking: marked, Marked: marked, Facts: families, Table: tables, Lines: lines}
+HOMES = {Program: programs, Run: runs, Marking: marked, Marked: marked, Facts: families, Table: tables, Lines: lines,
+         Standings: standings, Marks: marks, Trail: trails}
 METHODS = {
     Program: {"from_lines": "(*lines)", "node": "(self, place)", "clause": "(self, place, label)", "callers": "(self, name)",
               "needed": "(self, name)", "free_labels": "(self, place)", "is_quiet": "(self, place)",
@@ -55,6 +70,10 @@ METHODS = {
             "is_within": "(self, other)", "each": "(self)"},
     Lines: {"height_at": "(self, index)", "upto": "(self, index)", "rule_at": "(self, index)",
             "followed_by": "(self, other)", "trimmed": "(self)"},
+    Standings: {"contexts": "(self, place)", "answers": "(self, place)"},
+    Marks: {"right": "(self, clause)", "against": "(self, clause, mark)", "is_alike": "(self, value)", "wrong": "(self, marking)",
+            "mended": "(self, marking)"},
+    Trail: {"told": "(self)", "events_at": "(self, index)", "upto": "(self, index)"},
 }
 PROPERTIES = {
     Program: ("functions", "names", "labels", "lines", "asks", "handles", "holds", "rests", "clauses"),
@@ -64,6 +83,9 @@ PROPERTIES = {
     Facts: ("ways", "pairs", "labels", "outcomes"),
     Table: ("program", "rows"),
     Lines: ("program", "lines", "place", "fact", "height"),
+    Standings: ("program", "name", "come", "ended", "events", "never"),
+    Marks: ("program", "name", "standings", "least"),
+    Trail: ("program", "name", "lines", "points"),
 }
 OPERATORS = {
     Program: ("__or__", "__and__", "__getitem__", "__contains__", "__len__", "__iter__", "__eq__", "__str__"),
@@ -73,6 +95,9 @@ OPERATORS = {
     Facts: ("__add__", "__or__", "__and__", "__contains__", "__len__", "__bool__", "__iter__", "__eq__", "__str__"),
     Table: ("__getitem__", "__len__", "__contains__", "__eq__", "__str__"),
     Lines: ("__getitem__", "__len__", "__iter__", "__contains__", "__eq__", "__str__"),
+    Standings: ("__contains__", "__len__", "__iter__", "__eq__", "__str__"),
+    Marks: ("__getitem__", "__contains__", "__len__", "__iter__", "__eq__", "__str__"),
+    Trail: ("__getitem__", "__len__", "__iter__", "__eq__", "__str__"),
 }
 
 
@@ -81,7 +106,8 @@ def one_of_each():
     lines_of_log = shown(LOG, ("main", 9), ((), ("rest", 11)))
     run, marking = Run(LOG, "main"), Marking.uniform(LOG, "move")
     return {Program: LOG, Run: run, Marking: marking, Marked: Marked(run, marking), Facts: Facts.ask("a"), Table: table,
-            Lines: lines_of_log}
+            Lines: lines_of_log, Standings: Standings(LOG, "main"), Marks: Marks(LOG, "main"),
+            Trail: trail_to(LOG, "main", ("ended", ("main", 11)))}
 
 
 class Listed(unittest.TestCase):
@@ -205,6 +231,31 @@ class Examples(unittest.TestCase):
         fact = (("b",), ("end",))
         self.assertEqual([is_shown(INNER, ("in", 0), fact, shown(INNER, ("in", 0), fact).lines),
                           round_of(INNER, ("in", 0), fact)], [True, 4])
+
+    def test_standings(self):
+        log, inner = Standings(LOG, "main"), Standings(INNER, "main")
+        self.assertEqual([str(log), log.answers(("main", 0)), log.contexts(("main", 4)), log.never, ("ended", ("main", 11)) in log],
+                         ["12 standings, 1 ended, 0 stops", (("main", 2), ("main", 6)), ((("get", ("main", 0), True),),), (), True])
+        self.assertEqual([event for event in inner.events if event[0] in ("ended", "behind", "stop")],
+                         [("behind", ("in", 4)), ("behind", ("main", 4)), ("ended", ("in", 4)), ("ended", ("main", 4))])
+        self.assertEqual([Standings(OUTER, "main").never, inner.contexts(("f", 1)), Standings(INNER, "in").contexts(("f", 2))],
+                         [(("main", 2), ("main", 5)), ((("a", ("in", 0), True), ("b", ("main", 0), True)),), ((("a", ("in", 0), True),),)])
+
+    def test_right_marks(self):
+        log, inner, outer = Marks(LOG, "main"), Marks(INNER, "main"), Marks(OUTER, "main")
+        self.assertEqual([log[("main", 9)], inner.least.marks, outer.least.marks, Marks(FLIP, "main").right(("main", 5))],
+                         ["place", {("in", 3): "move", ("main", 3): "move"}, {("in", 3): "move", ("main", 3): "place"}, ("copy",)])
+        self.assertEqual([inner.against(("in", 3), "place"), outer.against(("main", 3), "jump"), Marks(OUTER, "f").least.marks, str(Marks(LOSE, "main"))],
+                         [(("behind", ("in", 4)),), (("rest", ("main", 4)),), {("in", 3): "place", ("main", 3): "place"},
+                          "1 place, 1 jump, 0 move, 0 copy"])
+
+    def test_trails_and_runs(self):
+        ended = trail_to(INNER, "main", ("ended", ("in", 4)))
+        self.assertEqual([ended.told(), ended.points[-1][:3], is_trail(INNER, "in", (ended.lines, ended.points))],
+                         [(("behind", ("in", 4)), ("ended", ("in", 4))), ("ended", ("in", 4), (("b", ("main", 0), True),)), False])
+        self.assertEqual([run_to(INNER, "main", ("come", ("in", 5))).steps, event_paper(OUTER, "main", ("come", ("main", 5)))[0],
+                          is_event_paper(FLIP, "main", ("again", ("main", 6)), ("run", (), 20))], [("z",), "never", True])
+        self.assertEqual([happens_in(Run(FLIP, "main"), ("ended", ("main", 7))), happens_in(Run(FLIP, "main"), ("again", ("main", 7)))], [True, False])
 
     def test_programs_made_again(self):
         self.assertEqual(renamed(FLIP, functions={"coin": "coin", "main": "main"}, labels={"or": "or"}, steps={"p": "p"}), FLIP)

@@ -3,6 +3,10 @@
 import unittest
 from itertools import combinations
 
+from restwise.around.marks import Marks, alike_paper, is_alike_paper
+from restwise.around.shown import event_paper, happens_in, is_event_paper, run_to, trail_to
+from restwise.around.standings import Standings, is_closed_set, is_context, is_event, is_never_paper, never_paper
+from restwise.around.trails import Trail, is_trail
 from restwise.base.codes import Code
 from restwise.base.programs import Program, inlined
 from restwise.errors import (InvalidCode, InvalidFact, InvalidLines, InvalidMarking, InvalidNumber, InvalidOperation, InvalidProgram,
@@ -23,7 +27,10 @@ LINES = shown(LOG, ("main", 0), WAY)
 MORE = [("main", 12), ("main", -1), ("main", True), ("main", False), ("main", 10 ** 60), ("main", "0"), ["main", 0], ("main", 0, 0), ("main",),
         ("nope", 0), (0, "main"), ("main", (0,)), ("main", None), (["main"], 0), ({}, 0), ("main", [0]), ("main", {}), "main", "nope", ("b", "a"), ("a", "a"), ((), ("rest", True)), ("back",), -1, 13,
         20001, Marking.uniform(FLIP, "copy"), least_table(FLIP), {**TABLE, ("main", 12): Facts()}, {("main", 9): "Copy"}, "copy ", ("rest", -1),
-        (("a", "on"), ("a", "back")), ("get", (("get", "on"),), END), Run(FLIP, "main"), Table(FLIP), LINES.lines]
+        (("a", "on"), ("a", "back")), ("get", (("get", "on"),), END), Run(FLIP, "main"), Table(FLIP), LINES.lines,
+        ("come", ("main", 12)), ("come", ("coin", 0)), ("rest", ("main", 11), 9), ("ended", ("main", 0)), ["come", ("main", 0)], ("come", ["main", 0]),
+        ("drop", ("main", 0)), ("ask", ("main", 2), ()), ("come", ("main", False)), ("get", ("main", 0), True), (("get", ("main", 0), 1),), Standings(LOG, "main"),
+        Marks(LOG, "main"), ("come", ("main", 0), (), (), ())]
 
 
 class Sort:
@@ -82,6 +89,13 @@ SOME_LINES = Sort(LINES.lines, InvalidLines)
 OTHER_PROGRAM = Sort(LOG, InvalidOperation, None, lambda value: isinstance(value, Program))
 NEW_NAME = Sort("f", InvalidWord, None, exact("get", "or", "nope", "main", "copy"))
 
+EVENT = Sort(("ended", ("main", 11)), InvalidOperation, None, lambda value: is_event(LOG, value))
+UNTOLD = Sort(("stop", ("main", 2)), InvalidOperation, None, lambda value: is_event(LOG, value))
+ASK_OR_HANDLE = Sort(("main", 0), UnknownPlace, "spot", exact(*LOG.asks))
+POINTS = Sort((("come", ("main", 0), (), (), ()),), InvalidLines)
+TRAIL_LINES = Sort((), InvalidLines, None, exact(LINES.lines))
+STANDINGS, RIGHT, TRAIL = Standings(LOG, "main"), Marks(LOG, "main"), trail_to(LOG, "main", ("ended", ("main", 11))).upto(2)
+
 CALLS = {
     "node": (LOG.node, PLACE), "clause": (LOG.clause, HANDLE, LABEL), "callers": (LOG.callers, NAME), "needed": (LOG.needed, NAME),
     "free_labels": (LOG.free_labels, PLACE), "is_quiet": (LOG.is_quiet, PLACE), "is_doubling": (LOG.is_doubling, CLAUSE),
@@ -114,6 +128,17 @@ CALLS = {
     "lines[index]": (lambda index: LINES.upto(2)[index], INDEX), "followed_by": (LINES.followed_by, SAME_LINES),
     "shown": (shown, PROGRAM, PLACE, FACT_THERE), "is_shown": (lambda *three: is_shown(*three, None), PROGRAM, PLACE, FACT_THERE),
     "round_of": (round_of, PROGRAM, PLACE, FACT_THERE),
+    "Standings": (Standings, PROGRAM, NAME), "contexts": (STANDINGS.contexts, PLACE), "answers": (STANDINGS.answers, ASK_OR_HANDLE),
+    "is_context": (lambda program: is_context(program, ()), PROGRAM), "is_event": (lambda program: is_event(program, ()), PROGRAM),
+    "is_closed_set": (lambda *three: is_closed_set(*three, None), PROGRAM, NAME, A_TABLE), "never_paper": (never_paper, PROGRAM, NAME, UNTOLD),
+    "is_never_paper": (lambda *three: is_never_paper(*three, None), PROGRAM, NAME, EVENT), "Marks": (Marks, PROGRAM, NAME), "right": (RIGHT.right, CLAUSE),
+    "against": (RIGHT.against, CLAUSE, MARK), "marks[clause]": (lambda clause: RIGHT[clause], CLAUSE), "wrong": (RIGHT.wrong, A_MARKING),
+    "mended": (RIGHT.mended, A_MARKING), "alike_paper": (alike_paper, PROGRAM, NAME, A_MARKING),
+    "is_alike_paper": (lambda *three: is_alike_paper(*three, None), PROGRAM, NAME, A_MARKING), "is_trail": (lambda *two: is_trail(*two, None), PROGRAM, NAME),
+    "Trail": (Trail, PROGRAM, NAME, TRAIL_LINES, POINTS), "events_at": (TRAIL.events_at, INDEX), "trail upto": (TRAIL.upto, INDEX),
+    "trail[index]": (lambda index: TRAIL[index], INDEX), "trail_to": (trail_to, PROGRAM, NAME, EVENT), "run_to": (run_to, PROGRAM, NAME, EVENT),
+    "happens_in": (happens_in, A_RUN, EVENT), "event_paper": (event_paper, PROGRAM, NAME, EVENT),
+    "is_event_paper": (lambda *three: is_event_paper(*three, None), PROGRAM, NAME, EVENT),
 }
 ORDERED = {name: (call, sorts) for name, (call, *sorts) in CALLS.items()}
 
@@ -174,10 +199,14 @@ class Judged(unittest.TestCase):
             for judge in (is_outcome, is_need, is_fact, lambda item: is_table(LOG, item), lambda item: is_closed(LOG, item),
                           lambda item: is_denial(LOG, ("main", 9), WAY, item), lambda item: is_lines(LOG, item),
                           lambda item: is_shown(LOG, ("main", 0), WAY, item), MARKING.is_lower, Facts.done().is_within,
-                          LOG.__contains__, RUN.__contains__, Facts.done().__contains__, Table(LOG).__contains__, LINES.__contains__):
+                          LOG.__contains__, RUN.__contains__, Facts.done().__contains__, Table(LOG).__contains__, LINES.__contains__,
+                          lambda item: is_context(LOG, item), lambda item: is_event(LOG, item), lambda item: is_closed_set(LOG, "main", TABLE, item),
+                          lambda item: is_never_paper(LOG, "main", ("stop", ("main", 2)), item), STANDINGS.__contains__, RIGHT.__contains__, RIGHT.is_alike,
+                          lambda item: is_alike_paper(LOG, "main", MARKING, item), lambda item: is_trail(LOG, "main", item),
+                          lambda item: is_event_paper(LOG, "main", ("ended", ("main", 11)), item)):
                 self.assertIs(type(judge(value)), bool)
             self.assertIn(RUN.first(value), (None,))
-            for thing in (LOG, RUN, MARKING, Marked(RUN, MARKING), Facts.ask("a"), Table(LOG), LINES):
+            for thing in (LOG, RUN, MARKING, Marked(RUN, MARKING), Facts.ask("a"), Table(LOG), LINES, STANDINGS, RIGHT, TRAIL):
                 self.assertIs(type(thing == value), bool)
                 self.assertIs(thing != value, not thing == value)
 
@@ -198,6 +227,14 @@ class Then(unittest.TestCase):
             (lambda: denial(LOG, ("main", 0), WAY), "InvalidOperation"),
             (lambda: shown(LOG, ("main", 9), WAY), "InvalidOperation"),
             (lambda: Code.read("then rest"), "ParseError"),
+            (lambda: never_paper(LOG, "main", ("come", ("main", 0))), "InvalidOperation"),
+            (lambda: never_paper(LOG, "nope", ("come", ("main", 0))), "UnknownName"),
+            (lambda: trail_to(LOG, "main", ("stop", ("main", 2))), "InvalidOperation"),
+            (lambda: run_to(LOG, "main", ("stop", ("main", 2))), "InvalidOperation"),
+            (lambda: alike_paper(LOG, "main", Marking.uniform(LOG, "jump")), "InvalidOperation"),
+            (lambda: alike_paper(LOG, "main", Marking.uniform(FLIP, "copy")), "InvalidMarking"),
+            (lambda: Trail(LOG, "main", (), ()), "InvalidLines"),
+            (lambda: RIGHT.against(("main", 0), "none"), "UnknownPlace"),
         ):
             with self.assertRaises(Exception) as caught:
                 make()
@@ -215,7 +252,9 @@ class Unchanged(unittest.TestCase):
         lines = shown(FLIP, ("main", 0), WAY)
         run, marking = Run(FLIP, "main"), Marking.uniform(FLIP, "move")
         marked = Marked(run, marking)
-        return (FLIP.functions, FLIP.lines, FLIP.labels, FLIP.clauses, run.row, run.end, run.places, marking.marks, marked.broken, marked.costs,
+        standings, marks, trail = Standings(FLIP, "main"), Marks(FLIP, "main"), trail_to(FLIP, "main", ("again", ("main", 6)))
+        return (standings.come, standings.ended, standings.events, standings.never, marks.least.marks, marks.right(("main", 5)), trail.lines, trail.points, trail.told(),
+                run_to(FLIP, "main", ("ended", ("main", 6))).row, FLIP.functions, FLIP.lines, FLIP.labels, FLIP.clauses, run.row, run.end, run.places, marking.marks, marked.broken, marked.costs,
                 table.rows, list(table.each()), lines.lines, lines.height)
 
     def test_no_call_changes_a_program(self):
@@ -228,13 +267,20 @@ class Unchanged(unittest.TestCase):
         lines = shown(FLIP, ("main", 0), WAY)
         lines.followed_by(lines).trimmed()
         list(all_runs(FLIP, "main", 3))
+        for event in Standings(FLIP, "coin").events:
+            event_paper(FLIP, "coin", event)[1:]
+            self.assertTrue(is_event_paper(FLIP, "coin", event, event_paper(FLIP, "coin", event)))
+        Marks(FLIP, "main").mended(Marking.uniform(FLIP, "place"))
+        paper = never_paper(FLIP, "main", ("stop", ("coin", 0)))
+        self.assertTrue(is_closed_set(FLIP, "main", *paper))
         FLIP | LOG.with_function("coin", FLIP["coin"]).with_function("main", FLIP["main"])
         self.assertEqual(self.picture(), before)
         self.assertEqual({place: list(told) for place, told in least_table(FLIP).items()}, facts)
 
     def test_what_is_handed_out_is_not_shared(self):
         table = Table(FLIP)
-        for told in (FLIP.functions, table.rows, Marking.uniform(FLIP, "move").marks, least_table(FLIP), denial(FLIP, ("coin", 0), WAY),
+        for told in (FLIP.functions, table.rows, Marking.uniform(FLIP, "move").marks, least_table(FLIP), denial(FLIP, ("coin", 0), WAY), Marks(FLIP, "main").least.marks,
+                     never_paper(FLIP, "main", ("stop", ("coin", 0)))[0], alike_paper(FLIP, "main", Marking.uniform(FLIP, "copy"))[0],
                      Marked(Run(FLIP, "main"), Marking.uniform(FLIP, "copy")).costs):
             told.clear()
         self.assertEqual(len(FLIP.functions), 2)

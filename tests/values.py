@@ -1,5 +1,8 @@
 """Values of every kind that a caller can pass [0.4], and codes for tests."""
 
+from restwise.around.marks import Marks
+from restwise.around.shown import trail_to
+from restwise.around.standings import Standings
 from restwise.base.codes import Code
 from restwise.base.programs import Program
 from restwise.errors import InvalidCode, ParseError, UnknownName
@@ -11,7 +14,7 @@ from restwise.run.runs import Run
 
 PLAIN = Program.from_lines("get: done")
 OBJECTS = (PLAIN, Run(PLAIN, "get"), Marking(PLAIN, {}), Marked(Run(PLAIN, "get"), Marking(PLAIN, {})), Facts.ask("get"), Table(PLAIN),
-           Lines(PLAIN, ((("get", 0), ((), ("end",)), ()),)))
+           Lines(PLAIN, ((("get", 0), ((), ("end",)), ()),)), Standings(PLAIN, "get"), Marks(PLAIN, "get"), trail_to(PLAIN, "get", ("come", ("get", 0))))
 
 
 def nested(kind, depth):
