@@ -113,6 +113,7 @@ class Code:
         self._ends = part_ends(nodes)
         self._tops = child_tops(nodes, self._ends)
         self._homes = rest_homes(nodes, self._tops)
+        self._plain = True
 
     @classmethod
     def leaf(cls, word, *names):
@@ -131,6 +132,11 @@ class Code:
     def nodes(self):
         """The nodes in preorder."""
         return self._nodes
+
+    @property
+    def is_plain(self):
+        """Whether these nodes are a code as the document tells it; those of a watched program need not be one."""
+        return self._plain
 
     @property
     def text(self):
@@ -166,7 +172,8 @@ class Code:
     def part(self, index):
         """The code of this node with all below it."""
         self._check_index(index)
-        return Code(self._nodes[index:self._ends[index]])
+        nodes = self._nodes[index:self._ends[index]]
+        return Code(nodes) if self._plain else code_from(nodes)
 
     def clause(self, index, label):
         """The index of the top of the clause that this handle has for the label."""
@@ -265,3 +272,14 @@ class Code:
 
     def __str__(self):
         return f"code of {len(self._nodes)} nodes"
+
+
+def code_from(nodes):
+    """The code of nodes that are a tree, whatever names they have and however many they are."""
+    code = Code((("done",),))
+    code._nodes = nodes
+    code._ends = part_ends(nodes)
+    code._tops = child_tops(nodes, code._ends)
+    code._homes = rest_homes(nodes, code._tops)
+    code._plain = is_code(nodes)
+    return code

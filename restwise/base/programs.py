@@ -1,6 +1,6 @@
 """Programs, and how they are put together and taken apart."""
 
-from restwise.base.codes import Code, read_nodes
+from restwise.base.codes import Code, code_from, read_nodes
 from restwise.base.shapes import Shape
 from restwise.base.words import MAX_LABELS, is_name
 from restwise.errors import (InvalidCode, InvalidOperation, InvalidProgram, InvalidWord, ParseError, UnknownName,
@@ -16,7 +16,9 @@ def _is_functions(value):
         return False
     if not all([is_name(name) and isinstance(code, Code) for name, code in value.items()]):
         return False
-    return all([code.loose == () and all([name in value for name in code.calls]) for code in value.values()])
+    if not all([code.is_plain and code.loose == () for code in value.values()]):
+        return False
+    return all([name in value for code in value.values() for name in code.calls])
 
 
 def _is_sound(shape):
@@ -237,6 +239,14 @@ class Program:
         return f"program of {len(self._functions)} functions, {len(self._shape.forms)} nodes"
 
 
+def program_from(codes):
+    """The program of a dict from names to nodes, whatever names they have and however many they are."""
+    program = Program({"f": Code((("done",),))})
+    program._functions = {name: code_from(codes[name]) for name in sorted(codes)}
+    program._shape = Shape({name: codes[name] for name in sorted(codes)})
+    return program
+
+
 def check_program(program):
     """Refuses what is no program."""
     if not isinstance(program, Program):
@@ -268,7 +278,11 @@ def renamed(program, *, functions, labels, steps):
     if not _is_renaming(steps, sorted({step for code in program.functions.values() for step in code.steps})):
         raise InvalidOperation("the steps are not renamed to names")
     codes = program.functions
-    return Program({functions[name]: _renamed_code(codes[name], functions, labels, steps) for name in codes})
+    try:
+        made = {functions[name]: _renamed_code(codes[name], functions, labels, steps) for name in codes}
+    except InvalidCode:
+        raise InvalidProgram("a code of a watched program is no code") from None
+    return Program(made)
 
 
 def inlined(program, place):
@@ -277,8 +291,9 @@ def inlined(program, place):
     number = program.shape.number_of(place, "call")
     called = program.shape.forms[number][1]
     name, index = place
+    functions = program.functions
     try:
-        code = program[name].with_part(index, program[called])
+        functions[name] = program[name].with_part(index, program[called])
     except InvalidCode:
         raise InvalidProgram("this makes too many nodes") from None
-    return program.with_function(name, code)
+    return Program(functions)

@@ -9,6 +9,8 @@ whose labels are all "on", and the bit of the label for a pair. A family is a di
 
 def least_masks(masks):
     """Those of the masks that no other one of them covers, ascending."""
+    if len(masks) == 1:
+        return tuple(masks)
     kept = []
     for mask in sorted(set(masks)):
         if not any([less | mask == mask for less in kept]):
@@ -21,7 +23,7 @@ def family_from(pieces):
     groups = {}
     for key, masks in pieces:
         groups.setdefault(key, []).extend(masks)
-    return {key: least_masks(masks) for key, masks in groups.items() if len(masks) > 0}
+    return {key: tuple(masks) if len(masks) == 1 else least_masks(masks) for key, masks in groups.items() if masks}
 
 
 def family_of(triples):
