@@ -19,21 +19,21 @@ def _watched(program, place):
 
 def watched(program, place):
     """The watched program of a hold."""
-    return _watched(program, place).made
+    return _watched(program, place).program_made
 
 
 def open_places(program, place):
     """The places, ascending, of the watched program that are in open code."""
     found = _watched(program, place)
-    return tuple([spot for spot in found.made.shape.spots if found.is_open(spot)])
+    return tuple([spot for spot in found.program_made.shape.spots if found.is_open(spot)])
 
 
 def place_behind(program, place, watched_place):
     """The place of the program whose node a node of the watched program is made of."""
     found = _watched(program, place)
-    if not found.made.shape.has_place(watched_place):
+    if not found.program_made.shape.has_place(watched_place):
         raise UnknownPlace(watched_place)
-    return found.place_behind(watched_place)
+    return found.old_place(watched_place)
 
 
 def _is_open_clause(found, clause):
@@ -41,8 +41,9 @@ def _is_open_clause(found, clause):
     if not found.is_open(clause):
         return False
     name, index = clause
-    handles = [spot for spot in found.made.handles if spot[0] == name and index in found.made[name].children(spot[1])]
-    return not found.is_open(handles[0])
+    code = found.program_made[name]
+    handles = [at for at, node in enumerate(code) if node[0] == "handle" and index in code.children(at)]
+    return not found.is_open((name, handles[0]))
 
 
 def _word_for(found, event):
@@ -54,7 +55,7 @@ def _word_for(found, event):
         return "lost" if _is_open_clause(found, place) else None
     if word == "again":
         name, index = place
-        return "shared" if _is_open_clause(found, (name, found.made[name].owner(index))) else None
+        return "shared" if _is_open_clause(found, (name, found.program_made[name].owner(index))) else None
     return None
 
 
@@ -67,9 +68,10 @@ def _events_by_word(program, name, place):
 
 
 def _events_made(found, name):
-    ground = found.ground()
-    spread = Spread(ground, found.made.shape.starts[name])
-    rows = [(_word_for(found, event), event) for event in events_of(ground, list(spread.reasons), list(spread.found_ended))]
+    ground = found.ground_known()
+    spread = Spread(ground, found.program_made.shape.starts[name])
+    events = events_of(ground, list(spread.reasons), list(spread.found_ended))
+    rows = [(_word_for(found, event), event) for event in events]
     return {word: event for word, event in rows[::-1] if word is not None}
 
 

@@ -45,7 +45,8 @@ class Watched:
             self.node_rows[OPEN + name] = _open_rows(code, 0)
         self.rest_rows = {name: [(at, old, is_open) for at, (node, old, is_open) in enumerate(row) if node[0] == "rest"]
                           for name, row in self.node_rows.items()}
-        self.made = program_from({name: tuple([node for node, _, _ in row]) for name, row in self.node_rows.items()})
+        codes = {name: tuple([node for node, _, _ in row]) for name, row in self.node_rows.items()}
+        self.program_made = program_from(codes)
 
     def _plain_rows(self, name, code, index):
         """The rows of a part that is not in open code."""
@@ -65,20 +66,20 @@ class Watched:
         name, index = place
         return self.node_rows[name][index][2]
 
-    def place_behind(self, place):
+    def old_place(self, place):
         """The place of the program whose node the node at this place is made of."""
         name, index = place
-        return name.removeprefix(OPEN), self.node_rows[name][index][1]
+        return name.lstrip(OPEN), self.node_rows[name][index][1]
 
     def opening_number(self):
         """The number of the hold whose child is in open code."""
         name, index = self.spot
         ats = [at for at, (_, old, is_open) in enumerate(self.node_rows[name]) if old == index and not is_open]
-        return self.made.shape.starts[name] + ats[-1]
+        return self.program_made.shape.starts[name] + ats[-1]
 
-    def ground(self):
+    def ground_known(self):
         """The watched program with facts that serve for its standings."""
-        shape, bits = self.made.shape, bits_of(self.made.labels)
+        shape, bits = self.program_made.shape, bits_of(self.program_made.labels)
         kept = last_families(self.whole.shape, history_of(self.whole))
         is_open = [self.is_open(place) for place in shape.spots]
         known = [self._family_from(place, kept, False) for place in shape.spots]
@@ -94,7 +95,7 @@ class Watched:
         The needs of open code have open labels only if this is asked for: contexts of open code tell
         these apart from the others.
         """
-        family = kept[self.whole.shape.numbers[self.place_behind(place)]]
+        family = kept[self.whole.shape.numbers[self.old_place(place)]]
         rests = self._rests_from(place)
         if not self.is_open(place):
             return {(own, _outcome_from(outcome, rests)): masks for (own, outcome), masks in family.items()}
@@ -106,7 +107,7 @@ class Watched:
     def _rests_from(self, place):
         """For the part of this node a dict from the indices of the rests that its nodes are made of to their own."""
         name, index = place
-        shape = self.made.shape
+        shape = self.program_made.shape
         end = shape.ends[shape.numbers[place]] - shape.starts[name]
         is_open = self.is_open(place)
         return {old: at for at, old, is_too in self.rest_rows[name] if index <= at < end and is_too == is_open}
