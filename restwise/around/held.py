@@ -14,7 +14,7 @@ def _watched(program, place):
     if any([name.startswith(OPEN) for name in program.names]):
         raise InvalidProgram("a watched program is not watched again")
     program.shape.number_of(place, "hold")
-    return Watched(program, place)
+    return program.latest("watched", place, lambda whole: Watched(whole, place))
 
 
 def watched(program, place):
@@ -64,7 +64,7 @@ def _events_by_word(program, name, place):
     child = (place[0], place[1] + 1)
     if program.is_quiet(child) or ("come", place) not in told_of(program, name)[2]:
         return {}
-    return program.kept(f"held {name} {place}", lambda whole: _events_made(Watched(whole, place), name))
+    return program.kept(f"held {name} {place}", lambda whole: _events_made(_watched(whole, place), name))
 
 
 def _events_made(found, name):

@@ -45,6 +45,7 @@ class Watched:
             self.node_rows[OPEN + name] = _open_rows(code, 0)
         self.rest_rows = {name: [(at, old, is_open) for at, (node, old, is_open) in enumerate(row) if node[0] == "rest"]
                           for name, row in self.node_rows.items()}
+        self.ground_made = None
         codes = {name: tuple([node for node, _, _ in row]) for name, row in self.node_rows.items()}
         self.program_made = program_from(codes)
 
@@ -79,6 +80,11 @@ class Watched:
 
     def ground_known(self):
         """The watched program with facts that serve for its standings."""
+        if self.ground_made is None:
+            self.ground_made = self._made_ground()
+        return self.ground_made
+
+    def _made_ground(self):
         shape, bits = self.program_made.shape, bits_of(self.program_made.labels)
         kept = last_families(self.whole.shape, history_of(self.whole))
         is_open = [self.is_open(place) for place in shape.spots]

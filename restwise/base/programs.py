@@ -70,6 +70,7 @@ class Program:
         self._functions = {name: functions[name] for name in sorted(functions)}
         self._shape = shape
         self._kept = {}
+        self._latest = {}
 
     @classmethod
     def from_lines(cls, *lines):
@@ -137,6 +138,12 @@ class Program:
         if word not in self._kept:
             self._kept[word] = make(self)
         return self._kept[word]
+
+    def latest(self, word, key, make):
+        """The same for what would be too much to keep for all keys: for each word only that of the last key is kept."""
+        if word not in self._latest or self._latest[word][0] != key:
+            self._latest[word] = (key, make(self))
+        return self._latest[word][1]
 
     def node(self, place):
         """The node at this place."""

@@ -186,7 +186,7 @@ class Project:
             raise UnknownName(name)
 
     def _check_saying(self, saying):
-        if not is_saying(saying, self._state.ordered):
+        if not is_saying(saying, self._state.whole):
             raise InvalidOperation("this is no saying about functions of the project")
 
     def _news_by(self, change):
@@ -241,8 +241,7 @@ class Project:
 
 def _check_pinned(whole, pinned):
     """Refuses a program of which a pinned saying does not tell, or in which it does not hold."""
-    names = () if whole is None else whole.names
-    if not all([is_saying(saying, names) for saying in pinned]):
+    if not all([is_saying(saying, whole) for saying in pinned]):
         raise InvalidOperation("a function of a pinned saying is lacking")
     for saying in pinned:
         if not does_saying_hold(whole, saying):

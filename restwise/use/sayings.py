@@ -10,8 +10,9 @@ from restwise.use.modules import can_stand
 LENGTHS = {"safe": 2, "does": 3, "never": 3, "stands": 3, "marked": 5}
 
 
-def is_saying(value, names):
-    """Whether the value is a saying about functions with these names."""
+def is_saying(value, program):
+    """Whether the value is a saying about functions of a program; None is a program without functions."""
+    names = () if program is None else program.names
     if not isinstance(value, tuple) or len(value) < 2 or not all([isinstance(item, str) for item in value]):
         return False
     word = value[0]
@@ -21,7 +22,12 @@ def is_saying(value, names):
         return is_name(value[2])
     if word == "stands":
         return value[2] in names
-    return word == "safe" or (value[2] in names and is_name(value[3]) and is_mark(value[4]))
+    return word == "safe" or (value[2] in names and _is_label(value[3], program) and is_mark(value[4]))
+
+
+def _is_label(value, program):
+    """Whether the value is a label, perhaps of no handle, or an open one of a watched program."""
+    return is_name(value) or value in program.labels
 
 
 def does_saying_hold(program, saying):
