@@ -186,7 +186,7 @@ class Papers(unittest.TestCase):
                 extra = [(chance.choice(list(table)), context) for context in contexts_of(chance, program, 1)] if chance.random() < 0.5 else []
                 come, ended = plain_standings.closed_around(program, name, table, extra, [])
                 told = plain_standings.events(program, table, come, ended)
-                for event in chance.sample(all_events(program), 10):
+                for event in chance.sample(all_events(program) * 2, 10):
                     wanted = is_closed(program, table) and event not in told
                     self.assertEqual(is_never_paper(program, name, event, (table, ascending(come, ended))), wanted)
                     right += wanted

@@ -3,7 +3,8 @@
 import inspect
 import unittest
 
-from restwise.around import marks, shown as shown_events, standings, trails
+from restwise.around import held, marks, shown as shown_events, standings, trails
+from restwise.around.held import can_be_lost, held_events
 from restwise.around.marks import Marks
 from restwise.around.shown import event_paper, happens_in, is_event_paper, run_to, trail_to
 from restwise.around.standings import Standings
@@ -19,6 +20,11 @@ from restwise.need.tables import Table, is_denial
 from restwise.run import marked, runs
 from restwise.run.marked import MARKS, Marked, Marking
 from restwise.run.runs import Run
+from restwise.base.codes import Code
+from restwise.errors import Refused
+from restwise.text import texts
+from restwise.use import modules, project
+from restwise.use.project import Project
 from tests.making import FLIP, INNER, LOG, LOSE, OUTER
 
 CONSTANTS = {
@@ -29,6 +35,7 @@ CONSTANTS = {
     lines: {"MAX_LINES": 4000},
     standings: {"MAX_STANDINGS": 20000},
     trails: {"MAX_POINTS": 20000},
+    project: {"MAX_SAYINGS": 10, "MAX_CHANGES": 200},
 }
 FUNCTIONS = {
     programs: {"renamed": "(program, *, functions, labels, steps)", "inlined": "(program, place)"},
@@ -48,14 +55,22 @@ FUNCTIONS = {
     trails: {"is_trail": "(program, name, value)"},
     shown_events: {"trail_to": "(program, name, event)", "happens_in": "(run, event)", "run_to": "(program, name, event)",
                    "event_paper": "(program, name, event)", "is_event_paper": "(program, name, event, value)"},
+    held: {"watched": "(program, place)", "open_places": "(program, place)", "place_behind": "(program, place, watched_place)",
+           "can_be_lost": "(program, name, place)", "can_be_shared": "(program, name, place)", "can_be_left": "(program, name, place)",
+           "held_events": "(program, name)", "event_in": "(program, name, place, word)"},
+    modules: {"tester": "(name, fact, labels, *, loop)", "can_stand": "(program, name, other)", "stand_paper": "(program, name, other)",
+              "is_stand_paper": "(program, name, other, value)", "exchanged": "(program, name, other)"},
+    texts: {"write_program": "(program)", "read_program": "(text)", "write_fact": "(fact)", "read_fact": "(text)", "write_facts": "(facts)",
+            "read_facts": "(text)", "write_table": "(rows)", "read_table": "(text)", "write_marking": "(marking)",
+            "read_marking": "(program, text)"},
 }
 CLASSES = {
     Program: "(functions)", Run: "(program, name, world=(), *, given=(), moves=2000)", Marking: "(program, marks)",
     Marked: "(run, marking)", Facts: "(ways=(), pairs=())", Table: "(program, rows=None)", Lines: "(program, lines)",
-    Standings: "(program, name)", Marks: "(program, name)", Trail: "(program, name, lines, points)",
+    Standings: "(program, name)", Marks: "(program, name)", Trail: "(program, name, lines, points)", Project: "()",
 }
 HOMES = {Program: programs, Run: runs, Marking: marked, Marked: marked, Facts: families, Table: tables, Lines: lines,
-         Standings: standings, Marks: marks, Trail: trails}
+         Standings: standings, Marks: marks, Trail: trails, Project: project}
 METHODS = {
     Program: {"from_lines": "(*lines)", "node": "(self, place)", "clause": "(self, place, label)", "callers": "(self, name)",
               "needed": "(self, name)", "free_labels": "(self, place)", "is_quiet": "(self, place)",
@@ -74,6 +89,9 @@ METHODS = {
     Marks: {"right": "(self, clause)", "against": "(self, clause, mark)", "is_alike": "(self, value)", "wrong": "(self, marking)",
             "mended": "(self, marking)"},
     Trail: {"told": "(self)", "events_at": "(self, index)", "upto": "(self, index)"},
+    Project: {"holding": "(program)", "put": "(self, name, code)", "remove": "(self, name)", "pin": "(self, saying)", "unpin": "(self, saying)",
+              "does_hold": "(self, saying)", "trial": "(self, *changes)", "block": "(self)", "during": "(self, call)", "undo": "(self, *, many=1)",
+              "redo": "(self, *, many=1)", "made": "(self)", "facts": "(self, name)", "lowest": "(self, name)", "twin": "(self)"},
 }
 PROPERTIES = {
     Program: ("functions", "names", "labels", "lines", "asks", "handles", "holds", "rests", "clauses"),
@@ -86,6 +104,7 @@ PROPERTIES = {
     Standings: ("program", "name", "come", "ended", "events", "never"),
     Marks: ("program", "name", "standings", "least"),
     Trail: ("program", "name", "lines", "points"),
+    Project: ("functions", "sayings", "log"),
 }
 OPERATORS = {
     Program: ("__or__", "__and__", "__getitem__", "__contains__", "__len__", "__iter__", "__eq__", "__str__"),
@@ -98,6 +117,7 @@ OPERATORS = {
     Standings: ("__contains__", "__len__", "__iter__", "__eq__", "__str__"),
     Marks: ("__getitem__", "__contains__", "__len__", "__iter__", "__eq__", "__str__"),
     Trail: ("__getitem__", "__len__", "__iter__", "__eq__", "__str__"),
+    Project: ("__getitem__", "__iter__", "__contains__", "__len__", "__eq__", "__str__"),
 }
 
 
@@ -107,7 +127,7 @@ def one_of_each():
     run, marking = Run(LOG, "main"), Marking.uniform(LOG, "move")
     return {Program: LOG, Run: run, Marking: marking, Marked: Marked(run, marking), Facts: Facts.ask("a"), Table: table,
             Lines: lines_of_log, Standings: Standings(LOG, "main"), Marks: Marks(LOG, "main"),
-            Trail: trail_to(LOG, "main", ("ended", ("main", 11)))}
+            Trail: trail_to(LOG, "main", ("ended", ("main", 11))), Project: Project.holding(LOG)}
 
 
 class Listed(unittest.TestCase):
@@ -256,6 +276,22 @@ class Examples(unittest.TestCase):
         self.assertEqual([run_to(INNER, "main", ("come", ("in", 5))).steps, event_paper(OUTER, "main", ("come", ("main", 5)))[0],
                           is_event_paper(FLIP, "main", ("again", ("main", 6)), ("run", (), 20))], [("z",), "never", True])
         self.assertEqual([happens_in(Run(FLIP, "main"), ("ended", ("main", 7))), happens_in(Run(FLIP, "main"), ("again", ("main", 7)))], [True, False])
+
+    def test_holds(self):
+        self.assertEqual([held_events(LOSE, "main"), held_events(LOSE, "mid"), can_be_lost(LOSE, "main", ("mid", 1))],
+                         [{("mid", 1): ("lost",)}, {("mid", 1): ("left",)}, True])
+
+    def test_a_project(self):
+        made = Project()
+        self.assertEqual([made.put("f", Code.read("then ask get step p")), made.put("main", Code.read("handle get: call f done then rest step z"))],
+                         [(("f", "new"),), (("main", "new"),)])
+        self.assertEqual([made.does_hold(("safe", "f")), made.pin(("does", "main", "p")), made.lowest("main").marks,
+                          made.trial(("unpin", ("does", "main", "p")), ("put", "f", Code.leaf("step", "q")))],
+                         [False, (), {("main", 3): "move"}, ((), (("f", "facts"), ("main", "runs")))])
+        self.assertEqual([made.put("f", Code.read("test then ask get step p done")), made.log, made.undo(many=2), made.redo()],
+                         [(("f", "facts"), ("main", "runs")), ("put", "put", "pin", "put"), (("f", "facts"), ("main", "runs")), ()])
+        with self.assertRaises(Refused):
+            made.put("f", Code.leaf("ask", "get"))
 
     def test_programs_made_again(self):
         self.assertEqual(renamed(FLIP, functions={"coin": "coin", "main": "main"}, labels={"or": "or"}, steps={"p": "p"}), FLIP)

@@ -3,6 +3,7 @@
 import unittest
 from itertools import combinations
 
+from restwise.around.held import can_be_left, can_be_lost, can_be_shared, event_in, held_events, open_places, place_behind, watched
 from restwise.around.marks import Marks, alike_paper, is_alike_paper
 from restwise.around.shown import event_paper, happens_in, is_event_paper, run_to, trail_to
 from restwise.around.standings import Standings, is_closed_set, is_context, is_event, is_never_paper, never_paper
@@ -10,13 +11,17 @@ from restwise.around.trails import Trail, is_trail
 from restwise.base.codes import Code
 from restwise.base.programs import Program, inlined
 from restwise.errors import (InvalidCode, InvalidFact, InvalidLines, InvalidMarking, InvalidNumber, InvalidOperation, InvalidProgram,
-                             InvalidTable, InvalidWord, InvalidWorld, UnknownName, UnknownPlace)
+                             InvalidTable, InvalidWord, InvalidWorld, ParseError, UnknownName, UnknownPlace)
 from restwise.need.families import END, Facts, is_covered, is_fact, is_need, is_outcome, joined, level_of, need_of
 from restwise.need.lines import Lines, is_lines, is_shown, round_of, shown
 from restwise.need.rules import facts_made, following, goes_again, goes_back, has_more, is_table, least_table
 from restwise.need.tables import Table, denial, is_closed, is_denial
 from restwise.run.marked import Marked, Marking
 from restwise.run.runs import Run, all_runs
+from restwise.text.texts import (read_fact, read_facts, read_marking, read_program, read_table, write_fact, write_facts, write_marking, write_program,
+                                 write_table)
+from restwise.use.modules import can_stand, exchanged, is_stand_paper, stand_paper, tester
+from restwise.use.project import Project
 from tests.making import FLIP, LOG
 from tests.values import every_kind, frozen
 
@@ -89,6 +94,18 @@ SOME_LINES = Sort(LINES.lines, InvalidLines)
 OTHER_PROGRAM = Sort(LOG, InvalidOperation, None, lambda value: isinstance(value, Program))
 NEW_NAME = Sort("f", InvalidWord, None, exact("get", "or", "nope", "main", "copy"))
 
+HELD = Program.from_lines("main: handle a: hold ask a done done")
+A_PROGRAM = Sort(HELD, InvalidProgram, None, lambda value: isinstance(value, Program))
+HOLD = Sort(("main", 1), UnknownPlace, "spot")
+BEHIND = Sort(("main", 1), UnknownPlace, "spot", lambda value: isinstance(value, tuple) and value[:1] in (("main",), ("~main",)) and watched(HELD, ("main", 1)).shape.has_place(value))
+HELD_WORD = Sort("lost", InvalidOperation)
+TESTED = Sort((("get",), END), InvalidFact, None, lambda value: is_fact(value) and value[-1][0] != "rest")
+TESTER_LABELS = Sort(("get", "put"), InvalidOperation, None, exact(("get",)))
+SAYING = Sort(("safe", "main"), InvalidOperation)
+A_PROJECT = Project.holding(LOG)
+ROWS_TO_WRITE = Sort(TABLE, InvalidTable, None, lambda value: isinstance(value, dict) and all(isinstance(facts, Facts) for facts in value.values()))
+MARKING_TEXT = Sort("main 9 copy", ParseError, None, lambda value: value == "")
+
 EVENT = Sort(("ended", ("main", 11)), InvalidOperation, None, lambda value: is_event(LOG, value))
 UNTOLD = Sort(("stop", ("main", 2)), InvalidOperation, None, lambda value: is_event(LOG, value))
 ASK_OR_HANDLE = Sort(("main", 0), UnknownPlace, "spot", exact(*LOG.asks))
@@ -139,6 +156,22 @@ CALLS = {
     "trail[index]": (lambda index: TRAIL[index], INDEX), "trail_to": (trail_to, PROGRAM, NAME, EVENT), "run_to": (run_to, PROGRAM, NAME, EVENT),
     "happens_in": (happens_in, A_RUN, EVENT), "event_paper": (event_paper, PROGRAM, NAME, EVENT),
     "is_event_paper": (lambda *three: is_event_paper(*three, None), PROGRAM, NAME, EVENT),
+    "watched": (watched, A_PROGRAM, HOLD), "open_places": (open_places, A_PROGRAM, HOLD), "place_behind": (place_behind, A_PROGRAM, HOLD, BEHIND),
+    "can_be_lost": (can_be_lost, A_PROGRAM, NAME, HOLD), "can_be_shared": (can_be_shared, A_PROGRAM, NAME, HOLD),
+    "can_be_left": (can_be_left, A_PROGRAM, NAME, HOLD), "held_events": (held_events, A_PROGRAM, NAME),
+    "event_in": (event_in, A_PROGRAM, NAME, HOLD, HELD_WORD),
+    "tester": (lambda name, fact, labels, loop: tester(name, fact, labels, loop=loop), NEW_NAME, TESTED, TESTER_LABELS, NEW_NAME),
+    "can_stand": (can_stand, PROGRAM, NAME, NAME), "stand_paper": (stand_paper, PROGRAM, NAME, NAME), "exchanged": (exchanged, PROGRAM, NAME, NAME),
+    "is_stand_paper": (lambda *three: is_stand_paper(*three, None), PROGRAM, NAME, NAME),
+    "holding": (Project.holding, PROGRAM), "put": (lambda name, code: A_PROJECT.twin().put(name, code), NEW_NAME, CODE),
+    "pin": (lambda saying: A_PROJECT.twin().pin(saying), SAYING), "does_hold": (A_PROJECT.does_hold, SAYING), "facts": (A_PROJECT.facts, NAME),
+    "lowest": (A_PROJECT.lowest, NAME), "remove": (lambda name: A_PROJECT.twin().remove(name), NAME), "project[name]": (lambda name: A_PROJECT[name], NAME),
+    "write_program": (write_program, PROGRAM), "write_fact": (write_fact, FACT), "write_facts": (write_facts, Sort(Facts.done(), InvalidFact, None,
+                                                                                                           lambda value: isinstance(value, Facts))),
+    "write_table": (write_table, ROWS_TO_WRITE), "write_marking": (write_marking, Sort(MARKING, InvalidMarking, None, lambda value: isinstance(value, Marking))),
+    "read_program": (read_program, Sort("main: done", ParseError, None, lambda value: value == "")), "read_fact": (read_fact, Sort("way to end", ParseError)),
+    "read_facts": (read_facts, Sort("way to end", ParseError, None, lambda value: value == "")),
+    "read_table": (read_table, Sort("f 0: way to end", ParseError, None, lambda value: value == "")), "read_marking": (read_marking, PROGRAM, MARKING_TEXT),
 }
 ORDERED = {name: (call, sorts) for name, (call, *sorts) in CALLS.items()}
 
@@ -203,10 +236,11 @@ class Judged(unittest.TestCase):
                           lambda item: is_context(LOG, item), lambda item: is_event(LOG, item), lambda item: is_closed_set(LOG, "main", TABLE, item),
                           lambda item: is_never_paper(LOG, "main", ("stop", ("main", 2)), item), STANDINGS.__contains__, RIGHT.__contains__, RIGHT.is_alike,
                           lambda item: is_alike_paper(LOG, "main", MARKING, item), lambda item: is_trail(LOG, "main", item),
-                          lambda item: is_event_paper(LOG, "main", ("ended", ("main", 11)), item)):
+                          lambda item: is_event_paper(LOG, "main", ("ended", ("main", 11)), item),
+                          lambda item: is_stand_paper(LOG, "main", "main", item), A_PROJECT.__contains__):
                 self.assertIs(type(judge(value)), bool)
             self.assertIn(RUN.first(value), (None,))
-            for thing in (LOG, RUN, MARKING, Marked(RUN, MARKING), Facts.ask("a"), Table(LOG), LINES, STANDINGS, RIGHT, TRAIL):
+            for thing in (LOG, RUN, MARKING, Marked(RUN, MARKING), Facts.ask("a"), Table(LOG), LINES, STANDINGS, RIGHT, TRAIL, A_PROJECT):
                 self.assertIs(type(thing == value), bool)
                 self.assertIs(thing != value, not thing == value)
 
@@ -235,6 +269,16 @@ class Then(unittest.TestCase):
             (lambda: alike_paper(LOG, "main", Marking.uniform(FLIP, "copy")), "InvalidMarking"),
             (lambda: Trail(LOG, "main", (), ()), "InvalidLines"),
             (lambda: RIGHT.against(("main", 0), "none"), "UnknownPlace"),
+            (lambda: watched(watched(HELD, ("main", 1)), ("main", 1)), "InvalidProgram"),
+            (lambda: can_be_lost(HELD, "nope", ("main", 0)), "UnknownName"),
+            (lambda: event_in(HELD, "main", ("main", 0), "none"), "UnknownPlace"),
+            (lambda: tester("f", (("a",), END), ("b",), loop="rest"), "InvalidOperation"),
+            (lambda: tester("f", ((), ("rest", 1)), (), loop="rest"), "InvalidFact"),
+            (lambda: exchanged(FLIP, "coin", "nope"), "UnknownName"),
+            (lambda: read_marking(LOG, "main 9"), "ParseError"),
+            (lambda: read_marking(LOG, "main 0 copy"), "InvalidMarking"),
+            (lambda: read_program("f: rest\nf: done\ng"), "ParseError"),
+            (lambda: read_program("f: rest"), "InvalidProgram"),
         ):
             with self.assertRaises(Exception) as caught:
                 make()
@@ -254,7 +298,7 @@ class Unchanged(unittest.TestCase):
         marked = Marked(run, marking)
         standings, marks, trail = Standings(FLIP, "main"), Marks(FLIP, "main"), trail_to(FLIP, "main", ("again", ("main", 6)))
         return (standings.come, standings.ended, standings.events, standings.never, marks.least.marks, marks.right(("main", 5)), trail.lines, trail.points, trail.told(),
-                run_to(FLIP, "main", ("ended", ("main", 6))).row, FLIP.functions, FLIP.lines, FLIP.labels, FLIP.clauses, run.row, run.end, run.places, marking.marks, marked.broken, marked.costs,
+                run_to(FLIP, "main", ("ended", ("main", 6))).row, held_events(FLIP, "main"), stand_paper(FLIP, "coin", "main"), write_table(table.rows), FLIP.functions, FLIP.lines, FLIP.labels, FLIP.clauses, run.row, run.end, run.places, marking.marks, marked.broken, marked.costs,
                 table.rows, list(table.each()), lines.lines, lines.height)
 
     def test_no_call_changes_a_program(self):
@@ -271,6 +315,10 @@ class Unchanged(unittest.TestCase):
             event_paper(FLIP, "coin", event)[1:]
             self.assertTrue(is_event_paper(FLIP, "coin", event, event_paper(FLIP, "coin", event)))
         Marks(FLIP, "main").mended(Marking.uniform(FLIP, "place"))
+        project = Project.holding(FLIP)
+        project.put("coin", Code.leaf("done"))
+        project.trial(("remove", "main"), ("put", "main", Code.leaf("done")))
+        exchanged(FLIP, "coin", "main")
         paper = never_paper(FLIP, "main", ("stop", ("coin", 0)))
         self.assertTrue(is_closed_set(FLIP, "main", *paper))
         FLIP | LOG.with_function("coin", FLIP["coin"]).with_function("main", FLIP["main"])
@@ -279,7 +327,7 @@ class Unchanged(unittest.TestCase):
 
     def test_what_is_handed_out_is_not_shared(self):
         table = Table(FLIP)
-        for told in (FLIP.functions, table.rows, Marking.uniform(FLIP, "move").marks, least_table(FLIP), denial(FLIP, ("coin", 0), WAY), Marks(FLIP, "main").least.marks,
+        for told in (FLIP.functions, table.rows, Marking.uniform(FLIP, "move").marks, least_table(FLIP), denial(FLIP, ("coin", 0), WAY), Marks(FLIP, "main").least.marks, held_events(FLIP, "main"), Project.holding(FLIP).functions,
                      never_paper(FLIP, "main", ("stop", ("coin", 0)))[0], alike_paper(FLIP, "main", Marking.uniform(FLIP, "copy"))[0],
                      Marked(Run(FLIP, "main"), Marking.uniform(FLIP, "copy")).costs):
             told.clear()

@@ -11,10 +11,12 @@ from restwise.need.lines import Lines
 from restwise.need.tables import Table
 from restwise.run.marked import Marked, Marking
 from restwise.run.runs import Run
+from restwise.use.project import Project
 
 PLAIN = Program.from_lines("get: done")
 OBJECTS = (PLAIN, Run(PLAIN, "get"), Marking(PLAIN, {}), Marked(Run(PLAIN, "get"), Marking(PLAIN, {})), Facts.ask("get"), Table(PLAIN),
-           Lines(PLAIN, ((("get", 0), ((), ("end",)), ()),)), Standings(PLAIN, "get"), Marks(PLAIN, "get"), trail_to(PLAIN, "get", ("come", ("get", 0))))
+           Lines(PLAIN, ((("get", 0), ((), ("end",)), ()),)), Standings(PLAIN, "get"), Marks(PLAIN, "get"), trail_to(PLAIN, "get", ("come", ("get", 0))),
+           Project())
 
 
 def nested(kind, depth):
