@@ -5,7 +5,8 @@ from restwise.around.spreads import bare_ground
 from restwise.base.programs import check_name, check_program
 from restwise.base.words import is_integer
 from restwise.errors import InvalidLines, InvalidNumber
-from restwise.need.lines import leading_by, lines_read
+from restwise.need.lines import leading_by
+from restwise.need.reading import lines_read
 
 MAX_POINTS = 20000
 

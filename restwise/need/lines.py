@@ -5,45 +5,9 @@ from restwise.base.words import has_boolean, is_integer
 from restwise.errors import InvalidLines, InvalidNumber, InvalidOperation, TooMany
 from restwise.need.families import bits_of, fact_from, is_covered_in, triple_of
 from restwise.need.past import items_to, past_of
-from restwise.need.rules import check_fact, is_fact_at
-from restwise.need.uses import BACK, rule_of
-
-MAX_LINES = 4000
-GOES_BACK = ("back",)
-
-
-def _item_of(shape, bits, place, fact):
-    """The item that a line tells; None if no line can tell this fact at this place."""
-    if not shape.has_place(place):
-        return None
-    number = shape.numbers[place]
-    if fact == GOES_BACK:
-        return (number, BACK) if shape.forms[number][0] == "rest" else None
-    return (number, triple_of(bits, fact)) if is_fact_at(shape, number, fact) else None
-
-
-def _is_uses(value, index):
-    """Whether the value is a tuple of indices of lines ahead of this one."""
-    return isinstance(value, tuple) and all([is_integer(use) and 0 <= use < index for use in value])
-
-
-def lines_read(program, value):
-    """The items that lines tell, and the words of their rules; None if the value is no lines of the program."""
-    if not isinstance(value, tuple) or not 1 <= len(value) <= MAX_LINES:
-        return None
-    shape, bits = program.shape, bits_of(program.labels)
-    items = []
-    words = []
-    for index, line in enumerate(value):
-        if not isinstance(line, tuple) or len(line) != 3 or not _is_uses(line[2], index):
-            return None
-        item = _item_of(shape, bits, line[0], line[1])
-        word = None if item is None else rule_of(shape, bits, item, [items[use] for use in line[2]])
-        if word is None:
-            return None
-        items.append(item)
-        words.append(word)
-    return items, words
+from restwise.need.reading import GOES_BACK, MAX_LINES, lines_read
+from restwise.need.rules import check_fact
+from restwise.need.uses import BACK
 
 
 def is_lines(program, value):
@@ -56,7 +20,7 @@ def _heights_of(lines):
     """The heights of lines."""
     heights = []
     for _, _, uses in lines:
-        heights.append(1 + max([heights[use] for use in uses], default=0))
+        heights.append(1 if uses == () else 1 + max([heights[use] for use in uses]))
     return heights
 
 
