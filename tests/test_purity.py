@@ -9,7 +9,7 @@ CHANGING = {"append", "extend", "insert", "pop", "remove", "reverse", "clear", "
             "discard"}
 LISTED = set("""append clear copy count endswith extend find get index insert isalnum isalpha isdigit islower isspace isupper
     items join keys ljust lower lstrip partition pop remove replace reverse rfind rjust rpartition rsplit rstrip setdefault
-    split splitlines startswith strip update upper values zfill bit_length add discard""".split())
+    split splitlines startswith strip update upper values zfill bit_length add discard isascii""".split())
 ITERATED = {"zip", "enumerate", "reversed", "map"}
 TAKING = {"list", "tuple", "dict", "sorted", "sum", "any", "all", "enumerate", "zip", "min", "max"}
 

@@ -6,6 +6,8 @@ MAX_LETTERS = 8
 MAX_LABELS = 3
 MAX_WORLD = 200
 KEYWORDS = ("ask", "call", "done", "handle", "hold", "rest", "step", "test", "then")
+# The same once more, as names are judged often, and a dict answers sooner.
+NO_NAMES = {"ask": 1, "call": 1, "done": 1, "handle": 1, "hold": 1, "rest": 1, "step": 1, "test": 1, "then": 1}
 
 
 def is_integer(value):
@@ -26,7 +28,7 @@ def is_name(value):
     """Whether the value is one to eight letters from a to z, and no keyword."""
     if not isinstance(value, str) or not 1 <= len(value) <= MAX_LETTERS:
         return False
-    return value not in KEYWORDS and all(["a" <= letter <= "z" for letter in value])
+    return value.isalpha() and value.islower() and value.isascii() and value not in NO_NAMES
 
 
 def is_ascending(items):

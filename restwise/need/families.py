@@ -1,96 +1,28 @@
 """Facts: ways and pairs, what covers what, and how facts are put together."""
 
-from restwise.base.words import has_boolean, is_ascending, is_integer, is_name
+from restwise.base.words import has_boolean, is_integer, is_name
 from restwise.errors import InvalidFact, InvalidNumber, InvalidOperation, InvalidWord
-from restwise.need.masks import chained, family_of, is_family_within, met, triples_of, united
+from restwise.need.forms import (LEVELS, MOST_LABELS, does_cover, has_fact_form, has_labels_form, has_need_form,
+                                 has_outcome_form, labels_of)
+from restwise.need.masks import chained, family_of, is_mask_covered, met, triples_of, united
 
-LEVELS = ("on", "back")
 END = ("end",)
-MOST_LABELS = 6
 WEIGHTS = {"on": 1, "back": 3}
-
-
-def _is_strings(value):
-    """Whether the value is an ascending tuple of at most six strings."""
-    if not isinstance(value, tuple) or len(value) > MOST_LABELS:
-        return False
-    return all([isinstance(label, str) for label in value]) and is_ascending(value)
-
-
-def _is_names(value):
-    """Whether the value is an ascending tuple of at most six names."""
-    return _is_strings(value) and all([is_name(label) for label in value])
-
-
-def _has_outcome_form(value):
-    """Whether the value is an outcome, with whatever string for its label."""
-    if not isinstance(value, tuple) or len(value) != 2:
-        return value == END
-    if value[0] == "ask":
-        return isinstance(value[1], str)
-    return value[0] == "rest" and is_integer(value[1]) and value[1] >= 0
-
-
-def _is_level_pair(value):
-    if not isinstance(value, tuple) or len(value) != 2:
-        return False
-    return isinstance(value[0], str) and isinstance(value[1], str) and value[1] in LEVELS
-
-
-def _has_need_form(value):
-    """Whether the value is a need of at most six labels, which are whatever strings."""
-    if not isinstance(value, tuple) or not all([_is_level_pair(item) for item in value]):
-        return False
-    return _is_strings(tuple([label for label, _ in value]))
-
-
-def _is_way_form(value):
-    return isinstance(value, tuple) and len(value) == 2 and _is_strings(value[0]) and _has_outcome_form(value[1])
-
-
-def _is_pair_form(value):
-    if not isinstance(value, tuple) or len(value) != 3 or not isinstance(value[0], str):
-        return False
-    return _has_need_form(value[1]) and (value[0], "on") not in value[1] and _has_outcome_form(value[2])
-
-
-def has_fact_form(value):
-    """Whether the value is a fact, with whatever strings for its labels."""
-    return (_is_way_form(value) or _is_pair_form(value)) and len(labels_of([value])) <= MOST_LABELS
-
-
-def _labels_of_outcome(outcome):
-    return outcome[1:] if outcome[0] == "ask" else ()
-
-
-def _labels_of_need(need):
-    return tuple([label for label, _ in need])
-
-
-def _labels_of_fact(fact):
-    if len(fact) == 2:
-        return fact[0] + _labels_of_outcome(fact[1])
-    return fact[:1] + _labels_of_need(fact[1]) + _labels_of_outcome(fact[2])
-
-
-def labels_of(facts):
-    """The labels of facts, those of outcomes included, ascending."""
-    return tuple(sorted({label for fact in facts for label in _labels_of_fact(fact)}))
 
 
 def is_outcome(value):
     """Whether the value is an outcome."""
-    return _has_outcome_form(value) and all([is_name(label) for label in _labels_of_outcome(value)])
+    return has_outcome_form(value, None)
 
 
 def is_need(value):
     """Whether the value is a need of at most six labels."""
-    return _has_need_form(value) and all([is_name(label) for label in _labels_of_need(value)])
+    return has_need_form(value, None)
 
 
 def is_fact(value):
     """Whether the value is a fact."""
-    return has_fact_form(value) and all([is_name(label) for label in labels_of([value])])
+    return has_fact_form(value, None)
 
 
 def bits_of(labels):
@@ -128,7 +60,7 @@ def _check_need(need):
 
 
 def _check_labels(labels):
-    if not _is_names(labels):
+    if not has_labels_form(labels, None):
         raise InvalidFact("this is no ascending tuple of at most six names")
 
 
@@ -168,27 +100,16 @@ def joined(*needs):
     return tuple([(label, "back" if label in back else "on") for label in labels])
 
 
-def _does_cover(one, other):
-    """Whether the first fact is covered by the second one."""
-    if len(one) != len(other) or one[-1] != other[-1]:
-        return False
-    bits = bits_of(labels_of([one, other]))
-    own, mask, _ = triple_of(bits, one)
-    other_own, less, _ = triple_of(bits, other)
-    return own == other_own and less | mask == mask
-
-
 def is_covered_in(fact, facts):
     """Whether the fact is covered by one of these, whatever strings their labels are."""
-    return any([_does_cover(fact, other) for other in facts])
+    return any([does_cover(fact, other) for other in facts])
 
 
 def is_covered(one, other):
     """Whether the first fact is covered by the second one."""
-    for fact in (one, other):
-        if not is_fact(fact):
-            raise InvalidFact("this is no fact")
-    return _does_cover(one, other)
+    if not has_fact_form(one, None) or not has_fact_form(other, None):
+        raise InvalidFact("this is no fact")
+    return does_cover(one, other)
 
 
 def family_in(bits, facts):
@@ -210,6 +131,8 @@ def facts_from(bits, family):
     facts._ways = ways
     facts._pairs = pairs
     facts._all = ways + pairs
+    facts._bits = bits
+    facts._family = family
     return facts
 
 
@@ -235,8 +158,9 @@ class Facts:
             raise InvalidFact("this is no tuple of pairs")
         labels = labels_of(ways + pairs)
         _check_few(labels)
-        bits = bits_of(labels)
-        self._ways, self._pairs = _told_by(bits, family_in(bits, ways + pairs))
+        self._bits = bits_of(labels)
+        self._family = family_in(self._bits, ways + pairs)
+        self._ways, self._pairs = _told_by(self._bits, self._family)
         self._all = self._ways + self._pairs
 
     @classmethod
@@ -279,23 +203,39 @@ class Facts:
 
     def covers(self, fact):
         """Whether one of these covers the fact."""
-        if not is_fact(fact):
+        if not has_fact_form(fact, None):
             raise InvalidFact("this is no fact")
-        return is_covered_in(fact, self._all)
+        return self.has_covering(fact)
+
+    def has_covering(self, fact):
+        """Whether one of these covers a fact, whatever strings its labels are."""
+        own, mask = 0, 0
+        if len(fact) == 2:
+            for label in fact[0]:
+                mask = mask | self._bits.get(label, 0)
+        else:
+            own = self._bits.get(fact[0], 0)
+            for label, level in fact[1]:
+                mask = mask | WEIGHTS[level] * self._bits.get(label, 0)
+            if own == 0:
+                return False
+        return is_mask_covered(mask, self._family.get((own, fact[-1]), ()))
+
+    def family_by(self, bits):
+        """The family of these, whose labels have these bits."""
+        return self._family if self._bits == bits else family_in(bits, self._all)
 
     def to(self, outcome):
         """Those with this outcome."""
         if not is_outcome(outcome):
             raise InvalidFact("this is no outcome")
-        bits = bits_of(self.labels)
-        return facts_from(bits, family_in(bits, [fact for fact in self._all if fact[-1] == outcome]))
+        return facts_from(self._bits, {key: masks for key, masks in self._family.items() if key[1] == outcome})
 
     def is_within(self, value):
         """Whether the value is `Facts` that cover each of these."""
         if not isinstance(value, Facts):
             return False
-        bits = self._bits_with(value)
-        return is_family_within(family_in(bits, self), family_in(bits, value))
+        return all([value.has_covering(fact) for fact in self._all])
 
     def reached(self, given):
         """The outcomes, ascending, of the ways whose labels are all given."""
@@ -315,19 +255,19 @@ class Facts:
         """The bits of the labels of both."""
         if not isinstance(other, Facts):
             raise InvalidOperation("the other operand is no facts")
-        return bits_of(labels_of(self._all + other.ways + other.pairs))
+        return bits_of(labels_of(list(self) + list(other)))
 
     def __add__(self, other):
         bits = self._bits_with(other)
-        return _few_facts(bits, chained(family_in(bits, self), family_in(bits, other), END))
+        return _few_facts(bits, chained(self.family_by(bits), other.family_by(bits), END))
 
     def __or__(self, other):
         bits = self._bits_with(other)
-        return _few_facts(bits, united([family_in(bits, self), family_in(bits, other)]))
+        return _few_facts(bits, united([self.family_by(bits), other.family_by(bits)]))
 
     def __and__(self, other):
         bits = self._bits_with(other)
-        return _few_facts(bits, met(family_in(bits, self), family_in(bits, other)))
+        return _few_facts(bits, met(self.family_by(bits), other.family_by(bits)))
 
     def __contains__(self, value):
         return not has_boolean(value) and value in self._all

@@ -3,7 +3,8 @@
 from restwise.base.programs import check_program
 from restwise.base.words import has_boolean, is_integer
 from restwise.errors import InvalidLines, InvalidNumber, InvalidOperation, TooMany
-from restwise.need.families import bits_of, fact_from, is_covered_in, triple_of
+from restwise.need.families import bits_of, fact_from, triple_of
+from restwise.need.forms import does_cover
 from restwise.need.past import items_to, past_of
 from restwise.need.reading import GOES_BACK, MAX_LINES, lines_read
 from restwise.need.rules import check_fact
@@ -185,7 +186,7 @@ def is_shown(program, place, fact, value):
     if not is_lines(program, value):
         return False
     last_place, last_fact, _ = value[-1]
-    return last_place == place and last_fact != GOES_BACK and is_covered_in(fact, [last_fact])
+    return last_place == place and last_fact != GOES_BACK and does_cover(fact, last_fact)
 
 
 def round_of(program, place, fact):

@@ -2,7 +2,8 @@
 
 from restwise.base.programs import check_program
 from restwise.errors import InvalidFact, InvalidTable
-from restwise.need.families import Facts, bits_of, facts_from, family_in, has_fact_form, labels_of
+from restwise.need.families import Facts, bits_of, facts_from
+from restwise.need.forms import has_fact_form
 from restwise.need.makings import backs_by, family_made, is_again
 from restwise.need.rounds import grown, last_families
 
@@ -22,9 +23,7 @@ def is_outcome_at(shape, number, outcome):
 
 def is_fact_at(shape, number, value):
     """Whether the value is a fact that `Facts` of this node in a table can have."""
-    if not has_fact_form(value) or not all([label in shape.label_names for label in labels_of([value])]):
-        return False
-    return is_outcome_at(shape, number, value[-1])
+    return has_fact_form(value, shape.label_names) and is_outcome_at(shape, number, value[-1])
 
 
 def check_fact(shape, number, fact):
@@ -62,7 +61,7 @@ def check_table(program, table):
 def families_of(program, rows):
     """The families of a table, in the order of the places."""
     bits = bits_of(program.labels)
-    return [family_in(bits, rows[place]) for place in program.shape.spots]
+    return [rows[place].family_by(bits) for place in program.shape.spots]
 
 
 def rows_of(program, families):

@@ -3,7 +3,7 @@
 from restwise.base.programs import check_name, check_program
 from restwise.base.words import has_boolean
 from restwise.errors import InvalidOperation, InvalidTable
-from restwise.need.families import bits_of, family_in, is_covered_in
+from restwise.need.families import bits_of, family_in
 from restwise.need.makings import backs_by, family_made
 from restwise.need.masks import is_family_within, met, united
 from restwise.need.rounds import grown, last_families
@@ -62,7 +62,7 @@ class Table:
     def covers(self, place, fact):
         """Whether the facts at this place cover this one."""
         check_fact(self._program.shape, self._program.shape.number_at(place), fact)
-        return is_covered_in(fact, self._rows[place])
+        return self._rows[place].has_covering(fact)
 
     def assuming(self, place, *facts):
         """The least closed table around this one and these facts of the node."""
@@ -134,7 +134,7 @@ def denial(program, place, fact):
     """Any closed table that does not cover the fact: the least one."""
     _number_checked(program, place, fact)
     rows = least_table(program)
-    if is_covered_in(fact, rows[place]):
+    if rows[place].has_covering(fact):
         raise InvalidOperation("each closed table covers the fact")
     return rows
 
@@ -142,4 +142,4 @@ def denial(program, place, fact):
 def is_denial(program, place, fact, value):
     """Whether the value is a closed table that does not cover the fact."""
     _number_checked(program, place, fact)
-    return is_closed(program, value) and not is_covered_in(fact, value[place])
+    return is_closed(program, value) and not value[place].has_covering(fact)

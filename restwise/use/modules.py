@@ -4,7 +4,8 @@ from restwise.base.codes import Code, code_from
 from restwise.base.programs import Program, check_name, check_program
 from restwise.base.words import MAX_LABELS, is_labels, is_name
 from restwise.errors import InvalidFact, InvalidOperation, InvalidWord
-from restwise.need.families import END, is_covered_in, is_fact, labels_of, level_of
+from restwise.need.families import END, is_fact, level_of
+from restwise.need.forms import labels_of
 from restwise.need.lines import is_shown, shown
 from restwise.need.rules import is_fact_at, least_table
 from restwise.need.tables import is_closed
@@ -80,7 +81,7 @@ def _lacking_labels(program, name, other):
 def _lacking_facts(program, name, other):
     """The least facts of the other function that none of the first one covers."""
     table = least_table(program)
-    return [fact for fact in table[(other, 0)] if not is_covered_in(fact, table[(name, 0)])]
+    return [fact for fact in table[(other, 0)] if not table[(name, 0)].has_covering(fact)]
 
 
 def can_stand(program, name, other):
@@ -130,7 +131,7 @@ def _does_part(program, name, other, parts):
     shape = program.shape
     if not is_fact_at(shape, shape.starts[other], fact) or not is_shown(program, (other, 0), fact, lines):
         return False
-    return is_closed(program, table) and not is_covered_in(fact, table[(name, 0)])
+    return is_closed(program, table) and not table[(name, 0)].has_covering(fact)
 
 
 def exchanged(program, name, other):
