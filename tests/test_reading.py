@@ -5,11 +5,12 @@ import random
 import time
 import unittest
 
+from restwise.around.held import watched
 from restwise.base.programs import Program
 from restwise.base.words import KEYWORDS, NO_NAMES, is_name
 from restwise.need.families import END, Facts, is_covered, is_fact
 from restwise.need.lines import Lines, is_lines, shown
-from restwise.need.rules import least_table
+from restwise.need.rules import history_of, least_families, least_table
 from tests import plain_lines
 from tests.making import INNER, LOG, random_programs
 from tests.plain_facts import all_facts
@@ -112,6 +113,14 @@ class SameAnswers(unittest.TestCase):
             facts = Facts(tuple(fact for fact in kept if len(fact) == 2), tuple(fact for fact in kept if len(fact) == 3))
             for fact in every + [("c", (), END), (("c",), END), ("a", (("c", "back"),), END), (("a", "c"), ("ask", "c"))]:
                 self.assertEqual(facts.covers(fact), any(covers(fact, other) for other in kept))
+
+    def test_tables_that_grow_at_once_and_by_rounds(self):
+        for seed in range(200):
+            names = ("f", "g", "loop", "main")[seed % 3:]
+            program = random_programs(seed, 1, 6 + seed % 26, labels=("a", "b", "c")[:1 + seed % 3], names=names, doubling=0.5, holds=2)[0]
+            for whole in [program] + [watched(program, hold) for hold in program.holds[:1]]:
+                last = [rows[-1][1] for rows in history_of(whole)[:len(least_table(whole))]]
+                self.assertEqual(least_families(whole), last)
 
     def test_names(self):
         self.assertEqual(tuple(NO_NAMES), KEYWORDS)

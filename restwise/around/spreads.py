@@ -4,8 +4,7 @@ from restwise.around.grounds import Ground
 from restwise.errors import TooMany
 from restwise.need.families import END, bits_of
 from restwise.need.makings import is_again
-from restwise.need.rounds import last_families
-from restwise.need.rules import history_of, is_followed
+from restwise.need.rules import is_followed, least_families
 
 MAX_STANDINGS = 20000
 
@@ -61,7 +60,7 @@ def least_ground(program):
 
 
 def _least_ground_made(program):
-    return ground_by(program, last_families(program.shape, history_of(program)))
+    return ground_by(program, least_families(program))
 
 
 def spread_of(program, name):

@@ -9,9 +9,8 @@ be known: with these facts alone a watched program takes little longer than the 
 from restwise.around.grounds import Ground
 from restwise.base.programs import program_from
 from restwise.need.families import bits_of
-from restwise.need.makings import backs_by, family_made
-from restwise.need.rounds import last_families
-from restwise.need.rules import history_of
+from restwise.need.growing import Growth
+from restwise.need.rules import least_families
 
 OPEN = "~"
 
@@ -86,10 +85,14 @@ class Watched:
 
     def _made_ground(self):
         shape, bits = self.program_made.shape, bits_of(self.program_made.labels)
-        kept = last_families(self.whole.shape, history_of(self.whole))
+        kept = least_families(self.whole)
         is_open = [self.is_open(place) for place in shape.spots]
         known = [self._family_from(place, kept, False) for place in shape.spots]
-        families = _grown_around(shape, bits, known, is_open, self.opening_number())
+        opening = self.opening_number()
+        known[opening] = {}
+        dirty = [number == opening for number in range(len(known))]
+        # What is known is made again of what is known of the parts, so that nothing else need be kept.
+        families = Growth(shape, bits, known, [{} for _ in known], is_open, dirty).grown_families
         for number, place in enumerate(shape.spots):
             if is_open[number]:
                 families[number] = self._family_from(place, kept, True)
@@ -105,7 +108,7 @@ class Watched:
         rests = self._rests_from(place)
         if not self.is_open(place):
             return {(own, _outcome_from(outcome, rests)): masks for (own, outcome), masks in family.items()}
-        shift = 4 ** len(self.whole.labels)
+        shift = 1 << (2 * len(self.whole.labels))
         more = shift if has_open_needs else 1
         return {(own * shift, _open_outcome(outcome, rests)): tuple([mask * more for mask in masks])
                 for (own, outcome), masks in family.items()}
@@ -125,34 +128,3 @@ def _outcome_from(outcome, rests):
 
 def _open_outcome(outcome, rests):
     return ("ask", OPEN + outcome[1]) if outcome[0] == "ask" else _outcome_from(outcome, rests)
-
-
-def _users_of(shape, is_open):
-    """For each node those that are not in open code and are made of it."""
-    users = [[] for _ in shape.forms]
-    for number, node in enumerate(shape.forms):
-        if not is_open[number]:
-            for part in shape.below[number]:
-                users[part].append(number)
-            if node[0] == "call":
-                users[shape.starts[node[1]]].append(number)
-    return users
-
-
-def _grown_around(shape, bits, known, is_open, first):
-    """The families that the rules make of known ones, when this node has all that its child has."""
-    families = list(known)
-    families[first] = {}
-    backs = backs_by(shape, families)
-    users = _users_of(shape, is_open)
-    dirty = {first: True}
-    while dirty:
-        number = max(list(dirty))
-        dirty.pop(number)
-        # What is known is made again of the known families of the parts.
-        worth = family_made(shape, bits, number, families, backs)
-        if worth != families[number]:
-            families[number] = worth
-            for user in users[number]:
-                dirty[user] = True
-    return families

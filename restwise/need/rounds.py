@@ -59,8 +59,3 @@ def grown(shape, bits, families):
             history[item].append((many, worth))
         dirty = sorted({user for item, _ in changed for user in users[item]})
     return history
-
-
-def last_families(shape, history):
-    """The families of all nodes behind the last round."""
-    return [rows[-1][1] for rows in history[:len(shape.forms)]]

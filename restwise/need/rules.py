@@ -5,7 +5,8 @@ from restwise.errors import InvalidFact, InvalidTable
 from restwise.need.families import Facts, bits_of, facts_from
 from restwise.need.forms import has_fact_form
 from restwise.need.makings import backs_by, family_made, is_again
-from restwise.need.rounds import grown, last_families
+from restwise.need.growing import closed_around
+from restwise.need.rounds import grown
 
 
 def is_outcome_at(shape, number, outcome):
@@ -135,4 +136,13 @@ def least_table(program):
 
 
 def _least_rows(program):
-    return rows_of(program, last_families(program.shape, history_of(program)))
+    return rows_of(program, least_families(program))
+
+
+def least_families(program):
+    """The families of the least table; they are worked out once for a program."""
+    return program.kept("least families", _least_families_made)
+
+
+def _least_families_made(program):
+    return closed_around(program.shape, bits_of(program.labels), [{} for _ in program.shape.spots])

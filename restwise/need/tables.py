@@ -4,9 +4,9 @@ from restwise.base.programs import check_name, check_program
 from restwise.base.words import has_boolean
 from restwise.errors import InvalidOperation, InvalidTable
 from restwise.need.families import bits_of, family_in
+from restwise.need.growing import closed_around
 from restwise.need.makings import backs_by, family_made
 from restwise.need.masks import is_family_within, met, united
-from restwise.need.rounds import grown, last_families
 from restwise.need.rules import check_fact, families_of, is_table, least_table, rows_of
 
 
@@ -23,9 +23,7 @@ def is_closed(program, value):
 
 def _closed_around(program, families):
     """The closed table around these families that is within all others."""
-    shape = program.shape
-    history = grown(shape, bits_of(program.labels), families)
-    return Table(program, rows_of(program, last_families(shape, history)))
+    return Table(program, rows_of(program, closed_around(program.shape, bits_of(program.labels), families)))
 
 
 class Table:
