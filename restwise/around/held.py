@@ -1,6 +1,6 @@
 """What can happen to what holds keep open, by programs in which the code that runs while one is open is told apart."""
 
-from restwise.around.spreads import Spread, events_of, told_of
+from restwise.around.spreads import Spread, events_of, events_told
 from restwise.around.watching import OPEN, Watched
 from restwise.base.programs import check_name, check_program
 from restwise.errors import InvalidOperation, InvalidProgram, UnknownPlace
@@ -62,7 +62,7 @@ def _word_for(found, event):
 def _events_by_word(program, name, place):
     """A dict from the words for what can happen to a hold to an event each by which it can."""
     child = (place[0], place[1] + 1)
-    if program.is_quiet(child) or ("come", place) not in told_of(program, name)[2]:
+    if program.is_quiet(child) or ("come", place) not in events_told(program, name):
         return {}
     return program.kept(f"held {name} {place}", lambda whole: _events_made(_watched(whole, place), name))
 

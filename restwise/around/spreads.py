@@ -105,15 +105,24 @@ def events_of(ground, come, ended):
 def _standings_told(ground, standings):
     """Standings with places in the place of numbers, ascending."""
     spots = ground.form.spots
-    contexts = {at: ground.context_told(at) for _, at in standings}
+    contexts = {at: ground.context_told(at) for at in sorted({at for _, at in standings})}
     return tuple(sorted([(spots[number], contexts[at]) for number, at in standings]))
 
 
-def told_of(program, name):
-    """The standings that are come to, those that are ended, and the events: what the least closed set tells."""
-    return program.kept(f"told {name}", lambda whole: _told_made(spread_of(whole, name)))
+def events_told(program, name):
+    """The events, ascending, that can happen from a function; they are worked out once for a program."""
+    return program.kept(f"events {name}", lambda whole: _events_made(spread_of(whole, name)))
 
 
-def _told_made(spread):
-    ground, come, ended = spread.ground, list(spread.reasons), list(spread.found_ended)
-    return _standings_told(ground, come), _standings_told(ground, ended), events_of(ground, come, ended)
+def _events_made(spread):
+    return events_of(spread.ground, list(spread.reasons), list(spread.found_ended))
+
+
+def standings_told(program, name):
+    """The standings that are come to from a function, and those that are ended, both ascending; likewise."""
+    return program.kept(f"standings {name}", lambda whole: _standings_made(spread_of(whole, name)))
+
+
+def _standings_made(spread):
+    ground = spread.ground
+    return _standings_told(ground, list(spread.reasons)), _standings_told(ground, list(spread.found_ended))

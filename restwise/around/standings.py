@@ -1,7 +1,7 @@
 """Standings: what is come to and ended from a first function, with what is around it."""
 
 from restwise.around.sets import is_closed_under, is_context_of, is_event_of, set_read
-from restwise.around.spreads import MAX_STANDINGS, events_of, ground_by, told_of
+from restwise.around.spreads import MAX_STANDINGS, events_of, events_told, ground_by, standings_told
 from restwise.base.programs import check_name, check_program
 from restwise.base.words import has_boolean
 from restwise.errors import InvalidOperation, UnknownPlace
@@ -60,7 +60,8 @@ class Standings:
         check_name(program, name)
         self._program = program
         self._name = name
-        self._come, self._ended, self._events = told_of(program, name)
+        self._come, self._ended = standings_told(program, name)
+        self._events = events_told(program, name)
         seen = {event[1]: True for event in self._events if event[0] == "come"}
         self._never = tuple([place for place in program.shape.spots if place not in seen])
 
@@ -131,13 +132,12 @@ class Standings:
 
 def least_paper(program, name):
     """The least table, and the least set that is closed by it."""
-    come, ended, _ = told_of(program, name)
-    return least_table(program), (come, ended)
+    return least_table(program), standings_told(program, name)
 
 
 def can_happen(program, name, event):
     """Whether an event can happen, by the least closed set."""
-    return event in told_of(program, name)[2]
+    return event in events_told(program, name)
 
 
 def never_paper(program, name, event):

@@ -205,9 +205,7 @@ class Project:
             raise TooMany(MAX_SAYINGS)
         if len(state.done_changes) == MAX_CHANGES:
             raise TooMany(MAX_CHANGES)
-        whole = state.whole
-        if functions is not None:
-            whole = Program(functions) if functions else None
+        whole = state.whole if functions is None else _whole_of(functions, state.whole)
         _check_pinned(whole, pinned)
         return self._go_to(State(whole, pinned, state.done_changes + ((word, state.whole, state.pinned),), ()))
 
@@ -237,6 +235,14 @@ class Project:
 
     def __str__(self):
         return f"project of {len(self._state.ordered)} functions, {len(self._state.pinned)} sayings"
+
+
+def _whole_of(functions, before):
+    """The program of these functions, None without any; if nothing is new, the one before, which knows its facts."""
+    if not functions:
+        return None
+    whole = Program(functions)
+    return before if whole == before else whole
 
 
 def _check_pinned(whole, pinned):

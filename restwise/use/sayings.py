@@ -1,7 +1,7 @@
 """Sayings about a program, and what is new in one program beside another one."""
 
 from restwise.around.marks import Marks
-from restwise.around.spreads import told_of
+from restwise.around.spreads import events_told
 from restwise.base.words import is_name
 from restwise.need.rules import least_table
 from restwise.run.marked import MARKS, is_mark
@@ -37,7 +37,7 @@ def does_saying_hold(program, saying):
         return can_stand(program, saying[2], name)
     if word == "marked":
         return _is_marked(program, saying)
-    events = told_of(program, name)[2]
+    events = events_told(program, name)
     if word == "safe":
         return not any([event[0] == "stop" for event in events])
     does = any([event[0] == "come" and program.node(event[1]) == ("step", saying[2]) for event in events])
@@ -77,6 +77,6 @@ def _word_for(before, after, name):
         return None
     if least_table(before)[(name, 0)] != least_table(after)[(name, 0)]:
         return "facts"
-    if before[name] != after[name] or told_of(before, name)[2] != told_of(after, name)[2]:
+    if before[name] != after[name] or events_told(before, name) != events_told(after, name):
         return "runs"
     return None
