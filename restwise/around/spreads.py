@@ -105,7 +105,8 @@ def events_of(ground, come, ended):
 def _standings_told(ground, standings):
     """Standings with places in the place of numbers, ascending."""
     spots = ground.form.spots
-    contexts = {at: ground.context_told(at) for at in sorted({at for _, at in standings})}
+    met = sorted({at for _, at in standings})
+    contexts = {number: ground.context_told(number) for number in met}
     return tuple(sorted([(spots[number], contexts[at]) for number, at in standings]))
 
 
