@@ -1,7 +1,7 @@
 """Trails and runs that show events, and papers that tell whether an event can happen."""
 
 from restwise.around.standings import can_happen, check_event, is_event, is_never_paper, least_paper
-from restwise.around.trails import Trail, is_trail
+from restwise.around.trails import Trail, last_events
 from restwise.around.unfolding import Unfolding
 from restwise.around.weaving import woven
 from restwise.base.programs import check_name, check_program
@@ -84,7 +84,7 @@ def is_event_paper(program, name, event, value):
         return False
     word, one, other = value
     if word == "trail":
-        return is_trail(program, name, (one, other)) and event in Trail(program, name, one, other).told()
+        return event in last_events(program, name, (one, other))
     if word == "run":
         return _is_showing(program, name, event, one, other)
     return word == "never" and is_never_paper(program, name, event, (one, other))

@@ -35,6 +35,17 @@ def is_trail(program, name, value):
     return _judge_of(program, name, value) is not None
 
 
+def last_events(program, name, value):
+    """The events that the last point of a trail tells, ascending; none if the value is no trail from this function."""
+    judge = _judge_of(program, name, value)
+    return () if judge is None else _events_by(judge, len(judge.judged) - 1)
+
+
+def _events_by(judge, index):
+    word, number, at, _ = judge.judged[index]
+    return events_told(judge.ground, word, number, at)
+
+
 def _numbered(numbers, indices):
     return tuple([numbers[index] for index in indices])
 
@@ -94,8 +105,7 @@ class Trail:
     def events_at(self, index):
         """The events, ascending, that this point tells."""
         self._check_index(index)
-        word, number, at, _ = self._judge.judged[index]
-        return events_told(self._judge.ground, word, number, at)
+        return _events_by(self._judge, index)
 
     def upto(self, index):
         """The trail with this point as the last one, and what leads to it."""
