@@ -14,7 +14,7 @@ from restwise.errors import TooMany
 from restwise.need.rules import least_table
 from tests.test_speed import chain, full, large
 
-SECONDS = 6
+SECONDS = 20
 BODY = "test then ask a then ask b ask c test then ask c ask a test then ask b ask a test test ask a ask b test ask c call {}"
 LONG_BODY = ("test then ask a then ask b then ask c ask a test then ask c then ask b ask a test then ask b then ask c ask a test then ask c ask b "
              "test test ask a ask b test ask c test ask a call {}")

@@ -18,7 +18,7 @@ from tests.making import Chance
 from tests.test_speed import chain, full, large
 from tests.test_speed_around import wide
 
-SECONDS = 8
+SECONDS = 20
 
 
 def holding(handles="handle a b c: call {} done then ask b rest then ask c rest rest"):
