@@ -102,6 +102,26 @@ def own_names(unit):
     return {name for name, values in assigned.items() if all(is_new(value) for value in values)}
 
 
+def root_of(node):
+    """The name of the object of whose field, item or answer an expression tells; None if it tells of none."""
+    is_off = False
+    while isinstance(node, (ast.Attribute, ast.Subscript, ast.Call)):
+        is_off = is_off or isinstance(node, ast.Attribute)
+        node = node.func if isinstance(node, ast.Call) else node.value
+    return node.id if is_off and isinstance(node, ast.Name) else None
+
+
+def changed_names(loop):
+    """The local names whose items are changed, or that are changed by a method, in the rows of a loop."""
+    found = set()
+    for node in [item for row in loop.body for item in ast.walk(row)]:
+        if isinstance(node, ast.Subscript) and isinstance(node.ctx, (ast.Store, ast.Del)):
+            found.add(ast.unparse(node.value))
+        if isinstance(node, ast.Call) and isinstance(node.func, ast.Attribute) and node.func.attr in CHANGING:
+            found.add(ast.unparse(node.func.value))
+    return found
+
+
 class Purity(unittest.TestCase):
     def test_operators_and_properties_change_only_what_is_their_own(self):
         for unit in reached():
@@ -248,6 +268,17 @@ class Expressions(unittest.TestCase):
                         self.assertNotEqual(ast.unparse(node.func.value), over, unit.where)
                     if isinstance(node, ast.Subscript) and isinstance(node.ctx, ast.Store):
                         self.assertNotIn(ast.unparse(node.value), (over, over.split(".")[0]), unit.where)
+
+    def test_what_loops_change_comes_from_no_field_of_what_they_walk(self):
+        for unit in UNITS:
+            sources = {}
+            for node in [item for item in ast.walk(unit.node) if isinstance(item, ast.Assign)]:
+                for target in [item for item in node.targets if isinstance(item, ast.Name)]:
+                    sources.setdefault(target.id, set()).add(root_of(node.value))
+            for loop in [node for node in ast.walk(unit.node) if isinstance(node, ast.For)]:
+                walked = {root_of(node) for node in ast.walk(loop.iter)} - {None}
+                for name in changed_names(loop):
+                    self.assertEqual(walked & sources.get(name, set()), set(), (unit.where, name))
 
     def test_names_in_comprehensions_within_others(self):
         kinds = (ast.ListComp, ast.SetComp, ast.DictComp, ast.GeneratorExp)

@@ -134,13 +134,14 @@ def _does_part(program, name, other, parts):
     return is_closed(program, table) and not table[(name, 0)].has_covering(fact)
 
 
+def _calling(code, name, other):
+    """The code in which each call of the first function calls the other one instead."""
+    return code_from(tuple([("call", other) if node == ("call", name) else node for node in code.nodes]))
+
+
 def exchanged(program, name, other):
     """The program in which all calls of the first function in third functions call the other one instead."""
     _check_names(program, name, other)
     beneath = program.needed(name) + program.needed(other)
-    functions = program.functions
-    for caller in program.names:
-        if caller not in beneath:
-            nodes = [("call", other) if node == ("call", name) else node for node in program[caller].nodes]
-            functions[caller] = code_from(tuple(nodes))
-    return Program(functions)
+    return Program({caller: program[caller] if caller in beneath else _calling(program[caller], name, other)
+                    for caller in program.names})
