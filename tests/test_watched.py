@@ -8,7 +8,7 @@ from restwise.around.shown import event_paper, happens_in, is_event_paper, run_t
 from restwise.around.standings import Standings, is_closed_set, is_context, is_event
 from restwise.around.trails import is_trail
 from restwise.base.codes import Code
-from restwise.base.programs import Program, inlined, renamed
+from restwise.base.programs import Program, inlined, program_from, renamed
 from restwise.errors import (InvalidCode, InvalidFact, InvalidOperation, InvalidProgram, InvalidWord, ParseError, UnknownName, UnknownPlace)
 from restwise.need.families import is_covered, is_fact
 from restwise.need.lines import is_lines, is_shown, round_of, shown
@@ -180,6 +180,32 @@ class Stages(unittest.TestCase):
                     self.assertTrue(is_context(made, context))
                 marks = Marks(made, name)
                 self.assertTrue(is_alike_paper(made, name, marks.least, alike_paper(made, name, marks.least)))
+
+    def test_what_is_known_of_it_serves_for_standings(self):
+        # An equal program of which nothing is known has the same standings, by its own least table.
+        many = 0
+        for seed in range(240):
+            program = Chance(seed, labels=("a", "b", "c")[:1 + seed % 3], names=("f", "g", "loop", "main")[seed % 3:],
+                             doubling=(0.1, 0.5, 0.9)[seed % 3], holds=1 + seed % 4).program(6 + seed % 30)
+            for place in program.holds[:3]:
+                made = watched(program, place)
+                alike = program_from(made.functions)
+                self.assertEqual(made, alike)
+                for name in made:
+                    one, other = Standings(made, name), Standings(alike, name)
+                    self.assertEqual((one.come, one.ended, one.events), (other.come, other.ended, other.events), (program.lines, place, name))
+                    many += len(one.ended)
+        self.assertGreater(many, 200)
+
+    def test_holds_in_turn(self):
+        program = Program.from_lines("f: then hold ask a hold hold ask b", "main: handle a b: then hold call f then hold ask a hold step p done rest done")
+        self.assertEqual(len(program.holds), 6)
+        first = {place: watched(program, place) for place in program.holds}
+        for place in program.holds + program.holds[::-1]:
+            again = Program.from_lines(*program.lines)
+            self.assertEqual((watched(program, place), open_places(program, place)), (first[place], open_places(again, place)))
+            for name in program:
+                self.assertEqual(Standings(watched(program, place), name).events, Standings(watched(again, place), name).events)
 
     def test_runs_and_trails(self):
         for _, _, made in some_watched(40):

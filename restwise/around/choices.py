@@ -53,19 +53,19 @@ class Choices:
 
     def pair_for(self, rest, at):
         """A pair of the work by which a rest is ended in this context."""
-        handle = self.ground.homes[self.form.owners[rest]][0]
+        handle = self.form.homes[self.form.owners[rest]][0]
         return earliest(self.past, self.form.below[handle][0], self.ground.ending_pairs(rest, at))
 
     def back_ways(self, handle, pair, at):
         """A dict from the labels of the handle that are back in the pair to ways of their clauses to such rests."""
         mask = pair[1][1]
-        return {label: self.rest_way(top, at, True) for label, top in self.form.sides_of(handle).items()
+        return {label: self.rest_way(top, at, True) for label, top in self.form.sides[handle].items()
                 if level_in(mask, self.ground.bits[label]) == 3}
 
     def end_behind(self, handle, pair, at):
         """A way to the end of what comes in the place of the work with the outcome of the pair."""
         outcome = pair[1][2]
-        top = self.form.below[handle][1] if outcome == END else self.form.sides_of(handle)[outcome[1]]
+        top = self.form.below[handle][1] if outcome == END else self.form.sides[handle][outcome[1]]
         return self.way(top, END, at)
 
     def again_items(self, rest):

@@ -6,17 +6,8 @@ standing is a pair (number of a node, number of a context).
 """
 
 from restwise.need.families import END
-from restwise.need.makings import backs_by, goes_by, rests_by
+from restwise.need.makings import goes_by, rests_by
 from restwise.need.masks import is_mask_covered
-
-
-def _homes_of(shape):
-    """A dict from the top of each clause to its handle and its label."""
-    homes = {}
-    for handle in shape.numbers_of("handle"):
-        for label, top in shape.sides_of(handle).items():
-            homes[top] = (handle, label)
-    return homes
 
 
 def _passing_by(shape, families):
@@ -35,21 +26,18 @@ def _passing_by(shape, families):
 class Ground:
     """A program with the families of a table, and the contexts that have been met."""
 
-    def __init__(self, shape, bits, families):
+    def __init__(self, shape, bits, families, backs):
         self.form = shape
         self.bits = bits
         self.low = sum(list(bits.values()))
         self.families = families
-        self.backs = backs_by(shape, families)
-        self.passing = _passing_by(shape, families)
-        self.homes = _homes_of(shape)
-        self.above = {child: number for number, row in enumerate(shape.below) for child in row}
-        self.works = {shape.below[handle][0]: handle for handle in shape.numbers_of("handle")}
+        self.backs = backs
         self.met_contexts = []
         self.given_masks = []
         self.context_numbers = {}
         self.inner_numbers = {}
         self.pairs_found = {}
+        self.passing = None
         self.number_of_context(())
 
     def number_of_context(self, context):
@@ -69,7 +57,7 @@ class Ground:
         """The number of the context of the work of a handle, by that of the handle."""
         key = (handle, at)
         if key not in self.inner_numbers:
-            sides = self.form.sides_of(handle)
+            sides = self.form.sides[handle]
             kept = [triple for triple in self.met_contexts[at] if triple[0] not in sides]
             own = [(label, handle, self.comes_to_rest(top, at)) for label, top in sides.items()]
             self.inner_numbers[key] = self.number_of_context(tuple(sorted(kept + own)))
@@ -98,14 +86,14 @@ class Ground:
 
     def ending_pairs(self, rest, at):
         """The triples of the pairs of the work by which a rest that is come to in this context is ended there."""
-        handle, label = self.homes[self.form.owners[rest]]
+        handle, label = self.form.homes[self.form.owners[rest]]
         key = (handle, label, at)
         if key not in self.pairs_found:
             self.pairs_found[key] = self._pairs_ending(handle, label, at)
         return self.pairs_found[key]
 
     def _pairs_ending(self, handle, label, at):
-        sides = self.form.sides_of(handle)
+        sides = self.form.sides[handle]
         given = self.given_masks[self.inner(handle, at)]
         own = sum([self.bits[other] for other in sides])
         coming = sum([self.bits[other] for other, top in sides.items() if self.ways_to_rests(top, at, True)])
@@ -126,7 +114,7 @@ class Ground:
         """Whether what comes in the place of the work with this outcome can end in the context of the handle."""
         if outcome == END:
             return self.is_had(self.form.below[handle][1], END, at)
-        sides = self.form.sides_of(handle)
+        sides = self.form.sides[handle]
         return outcome[0] == "ask" and outcome[1] in sides and self.is_had(sides[outcome[1]], END, at)
 
     def led_to(self, standing):
@@ -147,7 +135,7 @@ class Ground:
         work, last = self.form.below[handle][:2]
         inner = self.inner(handle, at)
         found = [((work, inner), "work")]
-        for label, top in self.form.sides_of(handle).items():
+        for label, top in self.form.sides[handle].items():
             if self.is_had(work, ("ask", label), inner):
                 found.append(((top, at), "clause"))
         if self.is_had(work, END, inner):
@@ -165,6 +153,8 @@ class Ground:
 
     def parts_behind(self, rest):
         """What follows a rest, up to the first part through which it does not go on."""
+        if self.passing is None:
+            self.passing = _passing_by(self.form, self.families)
         found = []
         for part in self.form.followings[rest]:
             found.append(part)

@@ -45,7 +45,7 @@ class PointJudge:
         used = [self.told_items[index] for index in facts]
         if not self._is_right(word, number, at, points, used):
             return False
-        is_work = word == "come" and number in self.ground.works
+        is_work = word == "come" and number in self.form.works
         self.judged.append((word, number, at, points[0][2] if is_work else None))
         return True
 
@@ -58,7 +58,7 @@ class PointJudge:
             return False
         if word == "again":
             return points[0][:3] == ("ended", number, at) and self._is_again(number, used)
-        is_top = number in self.ground.homes and points[0][:3] == ("come", number, at)
+        is_top = number in self.form.homes and points[0][:3] == ("come", number, at)
         return is_top and len(used) == 1 and self._is_way(used[0], number, END, at)
 
     def _is_way(self, item, number, outcome, at):
@@ -81,15 +81,15 @@ class PointJudge:
         word, upper, around, ahead = points[0]
         if word != "come":
             return False
-        if self.ground.works.get(number) == upper:
+        if self.form.works.get(number) == upper:
             return len(points) == 1 and self._is_inner(upper, around, at, used)
-        if ahead is not None and self.ground.above.get(number) == self.ground.above[upper]:
+        if ahead is not None and self.form.above[number] == self.form.above[upper]:
             return len(points) == 1 and at == ahead and self._is_behind_work(number, upper, around, used)
         return at == around and self._is_in_same(number, at, upper, points, used)
 
     def _is_inner(self, handle, around, at, used):
         """Whether this is a context of the work of the handle, with the facts for what is given."""
-        sides = self.form.sides_of(handle)
+        sides = self.form.sides[handle]
         inner = self.ground.met_contexts[at]
         own = [triple for triple in inner if triple[0] in sides]
         if [triple for triple in inner if triple[0] not in sides] != self._beyond(around, sides):
@@ -106,7 +106,7 @@ class PointJudge:
 
     def _is_behind_work(self, number, work, inner, used):
         """Whether a clause or the last part is come to by one way of the work."""
-        outcome = ("ask", self.ground.homes[number][1]) if number in self.ground.homes else END
+        outcome = ("ask", self.form.homes[number][1]) if number in self.form.homes else END
         return number != work and len(used) == 1 and self._is_way(used[0], work, outcome, inner)
 
     def _is_in_same(self, number, at, upper, points, used):
@@ -135,10 +135,10 @@ class PointJudge:
         return used == [(part, END_WAY) for part in parts[:parts.index(number)]]
 
     def _is_ended(self, rest, at, points, used):
-        owner = self.form.owners[rest]
+        owner = self.form.owners.get(rest)
         if owner is None or len(points) != 2 or used == []:
             return False
-        handle, label = self.ground.homes[owner]
+        handle, label = self.form.homes[owner]
         work, inner = self.form.below[handle][0], points[0][2]
         if points[0] != ("come", work, inner, at) or points[1][:3] != ("come", rest, at):
             return False
@@ -149,13 +149,13 @@ class PointJudge:
 
     def _is_met(self, handle, mask, inner):
         """Whether the labels of a need are given, but for those of the handle that are back."""
-        sides = self.form.sides_of(handle)
+        sides = self.form.sides[handle]
         own = sum([self.ground.bits[label] for label in sides if level_in(mask, self.ground.bits[label]) == 3])
         return self._is_given((mask & self.ground.low) - own, inner)
 
     def _is_end_used(self, handle, mask, outcome, at, used):
         """Whether the clauses of all back labels of the handle can come back, and what comes in the end has an end."""
-        sides = self.form.sides_of(handle)
+        sides = self.form.sides[handle]
         tops = [top for label, top in sides.items() if level_in(mask, self.ground.bits[label]) == 3]
         if len(used) != 2 * len(tops) + 1:
             return False

@@ -42,7 +42,7 @@ def is_event_of(shape, value):
     if len(value) != 2:
         return False
     if word == "drop":
-        return number in shape.clause_tops
+        return number in shape.homes
     if word == "stop":
         return node[0] == "ask"
     return word == "come" or (word in RESTING and node[0] == "rest")
@@ -101,4 +101,4 @@ def is_closed_under(ground, start, come, ended):
 def _is_closed_behind(ground, known, rest, at):
     """Whether what an ended rest lets be come to, of each then that is come to, is come to."""
     parts = ground.parts_behind(rest)
-    return all([(part, at) in known for part in parts if (ground.above[part], at) in known])
+    return all([(part, at) in known for part in parts if (ground.form.above[part], at) in known])

@@ -1,9 +1,11 @@
 """The least closed set of standings from a first function, and how each one was come to."""
 
 from restwise.around.grounds import Ground
+from restwise.around.knowing import ground_known
+from restwise.around.watching import watching_of
 from restwise.errors import TooMany
 from restwise.need.families import END, bits_of
-from restwise.need.makings import is_again
+from restwise.need.makings import backs_by, is_again
 from restwise.need.rules import is_followed, least_families
 
 MAX_STANDINGS = 20000
@@ -19,6 +21,7 @@ class Spread:
     def __init__(self, ground, start):
         self.ground = ground
         self.reasons = {(start, 0): ("start",)}
+        self.come_numbers = {start: True}
         self.found_ended = {}
         self.queue = [(start, 0)]
         self.next_at = 0
@@ -34,19 +37,20 @@ class Spread:
         if self.ground.form.forms[number][0] == "rest" and self.ground.ending_pairs(number, at):
             self.found_ended[standing] = True
             for part in self.ground.ends_behind(number):
-                self._meet((part, at), ("rest", (self.ground.above[part], at), standing))
+                self._meet((part, at), ("rest", (self.ground.form.above[part], at), standing))
 
     def _meet(self, standing, reason):
         if standing not in self.reasons:
             if len(self.queue) == MAX_STANDINGS:
                 raise TooMany(MAX_STANDINGS)
             self.reasons[standing] = reason
+            self.come_numbers[standing[0]] = True
             self.queue.append(standing)
 
 
 def ground_by(program, families):
     """A program with the families of a table."""
-    return Ground(program.shape, bits_of(program.labels), families)
+    return Ground(program.shape, bits_of(program.labels), families, backs_by(program.shape, families))
 
 
 def bare_ground(program):
@@ -68,6 +72,17 @@ def spread_of(program, name):
     return program.kept(f"spread {name}", lambda whole: Spread(least_ground(whole), whole.shape.starts[name]))
 
 
+def told_spread(program, name):
+    """A least closed set with the same standings; that of a watched program is sooner made by what is known of it."""
+    if watching_of(program) is None:
+        return spread_of(program, name)
+    return program.kept(f"told spread {name}", lambda whole: Spread(_ground_told(whole), whole.shape.starts[name]))
+
+
+def _ground_told(program):
+    return program.kept("told ground", ground_known)
+
+
 def _come_events(ground, standing):
     """The events that a standing that is come to tells, with numbers in the place of places."""
     number, at = standing
@@ -78,7 +93,7 @@ def _come_events(ground, standing):
         found.append(("stop", number) if handle is None else ("ask", number, handle))
     if node[0] == "rest":
         found.append(("rest", number))
-    if number in ground.homes and ground.is_had(number, END, at):
+    if number in ground.form.homes and ground.is_had(number, END, at):
         found.append(("drop", number))
     return found
 
@@ -112,7 +127,7 @@ def _standings_told(ground, standings):
 
 def events_told(program, name):
     """The events, ascending, that can happen from a function; they are worked out once for a program."""
-    return program.kept(f"events {name}", lambda whole: _events_made(spread_of(whole, name)))
+    return program.kept(f"events {name}", lambda whole: _events_made(told_spread(whole, name)))
 
 
 def _events_made(spread):
@@ -121,7 +136,7 @@ def _events_made(spread):
 
 def standings_told(program, name):
     """The standings that are come to from a function, and those that are ended, both ascending; likewise."""
-    return program.kept(f"standings {name}", lambda whole: _standings_made(spread_of(whole, name)))
+    return program.kept(f"standings {name}", lambda whole: _standings_made(told_spread(whole, name)))
 
 
 def _standings_made(spread):

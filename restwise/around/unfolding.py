@@ -140,7 +140,7 @@ class Unfolding:
     def _plans_of(self, item, used):
         """The plans for the clauses and the last part of a handle, by what a rule makes its item of."""
         handle, (_, _, outcome) = item
-        labels = {top: label for label, top in self.form.sides_of(handle).items()}
+        labels = {top: label for label, top in self.form.sides[handle].items()}
         plans = {}
         at = 1
         for _, _, own, to in handle_slots(self.form, self.choices.past.bits, item, used[0][1]):
@@ -181,7 +181,7 @@ class Unfolding:
         piece = (self.owners[at:], self.layers[at:])
         del self.owners[at:]
         del self.layers[at:]
-        top = self.form.sides_of(handle)[label]
+        top = self.form.sides[handle][label]
         self.layers[-1] = Due(top, self.layers[-1], None, piece)
         self._push(top, plans.get((kind, label)))
 
@@ -235,7 +235,7 @@ class Unfolding:
         at = route.standings_on[index][1]
         later = route.standings_on[index + 1]
         plan = ("route", route, index + 1)
-        ways = {label: self.choices.rest_way(top, at, False) for label, top in self.form.sides_of(handle).items()}
+        ways = {label: self.choices.rest_way(top, at, False) for label, top in self.form.sides[handle].items()}
         plans = {("on", label): ("item", way, {}) for label, way in ways.items() if way is not None}
         word = self.reasons[later][0]
         work, inner = self.form.below[handle][0], self.choices.ground.inner(handle, at)
@@ -244,7 +244,7 @@ class Unfolding:
         elif word == "last":
             self._open(handle, {**plans, LAST: plan}, ("item", self.choices.way(work, END, inner), {}))
         else:
-            label = self.choices.ground.homes[later[0]][1]
+            label = self.form.homes[later[0]][1]
             rest = self._rest_to_end(route, index + 1)
             if rest is None:
                 way = self.choices.way(work, ("ask", label), inner)

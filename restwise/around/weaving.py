@@ -23,7 +23,7 @@ class Weaver:
 
     def key_of(self, standing):
         """The key of the point at which a standing is come to."""
-        is_work = standing[0] in self.ground.works
+        is_work = standing[0] in self.form.works
         return ("work", self.reasons[standing][1]) if is_work else ("come", standing)
 
     def parts_of(self, key):
@@ -47,19 +47,19 @@ class Weaver:
             first = self.form.below[reason[1][0]][0]
             return [self.key_of(reason[1])], [self.choices.way(first, ("end",), at)]
         handle = reason[1][0]
-        outcome = ("ask", self.ground.homes[number][1]) if reason[0] == "clause" else ("end",)
+        outcome = ("ask", self.form.homes[number][1]) if reason[0] == "clause" else ("end",)
         way = self.choices.way(self.form.below[handle][0], outcome, self.ground.inner(handle, at))
         return [("work", reason[1])], [way]
 
     def _given_facts(self, standing):
         """For each label of a handle that is given in its work a way of its clause to a rest."""
         handle, at = standing
-        ways = [self.choices.rest_way(top, at, False) for top in self.form.sides_of(handle).values()]
+        ways = [self.choices.rest_way(top, at, False) for top in self.form.sides[handle].values()]
         return [way for way in ways if way is not None]
 
     def _parts_of_ended(self, standing):
         rest, at = standing
-        handle = self.ground.homes[self.form.owners[rest]][0]
+        handle = self.form.homes[self.form.owners[rest]][0]
         pair = self.choices.pair_for(rest, at)
         facts = [pair]
         for way in self.choices.back_ways(handle, pair, at).values():

@@ -1,6 +1,6 @@
 """Nodes and codes, and how codes are put together and taken apart."""
 
-from restwise.base.trees import child_tops, is_sound, part_ends, rest_homes
+from restwise.base.trees import is_sound, tree_of
 from restwise.base.words import is_integer, is_labels, is_name
 from restwise.errors import InvalidCode, InvalidNumber, InvalidOperation, ParseError, UnknownName
 
@@ -8,6 +8,7 @@ MAX_NODES = 40
 MAX_CLAUSES = 3
 BARE_WORDS = ("done", "rest", "then", "test", "hold")
 NAMING_WORDS = ("step", "ask", "call")
+DONE = (("done",),)
 
 
 def is_node(value):
@@ -22,14 +23,19 @@ def is_node(value):
     return word in BARE_WORDS and len(names) == 0
 
 
+def _code_tree(value):
+    """The tree of a value that is a code; None if it is none."""
+    if not isinstance(value, tuple) or not 1 <= len(value) <= MAX_NODES:
+        return None
+    if not all([is_node(node) for node in value]):
+        return None
+    tree = tree_of(value)
+    return tree if tree is not None and is_sound(tree) else None
+
+
 def is_code(value):
     """Whether the value is a code, in which rests can be loose."""
-    if not isinstance(value, tuple) or not 1 <= len(value) <= MAX_NODES:
-        return False
-    if not all([is_node(node) for node in value]):
-        return False
-    ends = part_ends(value)
-    return ends is not None and is_sound(value, child_tops(value, ends))
+    return _code_tree(value) is not None
 
 
 def write_node(node):
@@ -38,8 +44,8 @@ def write_node(node):
     return f"{text}:" if node[0] == "handle" else text
 
 
-def read_nodes(text):
-    """The nodes with this text, whatever rests they have; None if they are not just one tree."""
+def read_tree(text):
+    """The tree of the nodes with this text, whatever rests they have; None if they are not just one."""
     if not isinstance(text, str):
         return None
     words = text.split(" ")
@@ -51,7 +57,7 @@ def read_nodes(text):
             return None
         nodes.append(node)
         at = at + len(node)
-    return None if part_ends(nodes) is None else tuple(nodes)
+    return tree_of(tuple(nodes))
 
 
 def _node_at(words, at):
@@ -107,13 +113,12 @@ class Code:
     """A code, in which rests can be loose. It never changes."""
 
     def __init__(self, nodes):
-        if not is_code(nodes):
+        tree = _code_tree(nodes)
+        if tree is None:
             raise InvalidCode("these nodes are no code")
         self._nodes = nodes
-        self._ends = part_ends(nodes)
-        self._tops = child_tops(nodes, self._ends)
-        self._homes = rest_homes(nodes, self._tops)
-        self._plain = True
+        self._tree = tree
+        self._judged = True
 
     @classmethod
     def leaf(cls, word, *names):
@@ -123,10 +128,10 @@ class Code:
     @classmethod
     def read(cls, text):
         """The code with this text."""
-        nodes = read_nodes(text)
-        if nodes is None:
+        tree = read_tree(text)
+        if tree is None:
             raise ParseError(None)
-        return cls(nodes)
+        return code_read(tree)
 
     @property
     def nodes(self):
@@ -136,7 +141,12 @@ class Code:
     @property
     def is_plain(self):
         """Whether these nodes are a code as the document tells it; those of a watched program need not be one."""
-        return self._plain
+        return self._judged or is_code(self._nodes)
+
+    @property
+    def tree(self):
+        """The tree of the nodes."""
+        return self._tree
 
     @property
     def text(self):
@@ -161,19 +171,19 @@ class Code:
     @property
     def loose(self):
         """The indices of its loose rests, ascending."""
-        return tuple([index for index, node in enumerate(self._nodes)
-                      if node[0] == "rest" and self._homes[index] == 0])
+        homes = self._tree.homes
+        return tuple([index for index, node in enumerate(self._nodes) if node[0] == "rest" and homes[index] == 0])
 
     def children(self, index):
         """The indices of the children of this node."""
         self._check_index(index)
-        return self._tops[index]
+        return self._tree.tops[index]
 
     def part(self, index):
         """The code of this node with all below it."""
         self._check_index(index)
-        nodes = self._nodes[index:self._ends[index]]
-        return Code(nodes) if self._plain else code_from(nodes)
+        tree = tree_of(self._nodes[index:self._tree.ends[index]])
+        return code_from(tree, self._judged)
 
     def clause(self, index, label):
         """The index of the top of the clause that this handle has for the label."""
@@ -182,14 +192,14 @@ class Code:
         labels = node[1:] if node[0] == "handle" else ()
         if label not in labels:
             raise UnknownName(label)
-        clauses = self._tops[index][2:]
+        clauses = self._tree.tops[index][2:]
         return clauses[labels.index(label)]
 
     def owner(self, index):
         """The index of the top of the clause to which this rest belongs, or None."""
         self._check_index(index)
-        is_owned = self._nodes[index][0] == "rest" and self._homes[index] != 0
-        return self._homes[index] if is_owned else None
+        home = self._tree.homes[index]
+        return home if self._nodes[index][0] == "rest" and home != 0 else None
 
     def with_part(self, index, other):
         """The code with another code in the place of this part."""
@@ -197,7 +207,7 @@ class Code:
         if not isinstance(other, Code):
             raise InvalidOperation("the other part is no code")
         ahead = self._nodes[:index]
-        behind = self._nodes[self._ends[index]:]
+        behind = self._nodes[self._tree.ends[index]:]
         return Code(ahead + other.nodes + behind)
 
     def held(self):
@@ -229,7 +239,7 @@ class Code:
             index = ahead.pop()
             node = self._nodes[index]
             nodes.append(_renamed_node(node, labels, calls, steps))
-            ahead.extend(_renamed_order(node, self._tops[index], labels)[::-1])
+            ahead.extend(_renamed_order(node, self._tree.tops[index], labels)[::-1])
         return Code(tuple(nodes))
 
     def _check_index(self, index):
@@ -274,12 +284,17 @@ class Code:
         return f"code of {len(self._nodes)} nodes"
 
 
-def code_from(nodes):
-    """The code of nodes that are a tree, whatever names they have and however many they are."""
-    code = Code((("done",),))
-    code._nodes = nodes
-    code._ends = part_ends(nodes)
-    code._tops = child_tops(nodes, code._ends)
-    code._homes = rest_homes(nodes, code._tops)
-    code._plain = is_code(nodes)
+def code_from(tree, is_judged):
+    """The code of a tree, whatever names it has and however many nodes; it may be known to be one as told in [2.1]."""
+    code = Code(DONE)
+    code._nodes = tree.forms
+    code._tree = tree
+    code._judged = is_judged
     return code
+
+
+def code_read(tree):
+    """The code of a tree that has been read, so that only its rests are still to be judged."""
+    if not is_sound(tree):
+        raise InvalidCode("these nodes are no code")
+    return code_from(tree, True)

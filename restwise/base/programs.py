@@ -1,13 +1,14 @@
 """Programs, and how they are put together and taken apart."""
 
-from restwise.base.codes import Code, code_from, read_nodes
-from restwise.base.shapes import Shape
+from restwise.base.codes import DONE, Code, code_read, read_tree
+from restwise.base.shapes import Shape, free_by_number
 from restwise.base.words import MAX_LABELS, is_name
 from restwise.errors import (InvalidCode, InvalidOperation, InvalidProgram, InvalidWord, ParseError, UnknownName,
                              UnknownPlace)
 
 MAX_FUNCTIONS = 6
 MAX_HANDLES = 8
+MANY_LATEST = 4
 
 
 def _is_functions(value):
@@ -25,7 +26,10 @@ def _is_sound(shape):
     """Whether a program can have this shape: not too much of anything, and all is quiet that must be."""
     if len(shape.label_names) > MAX_LABELS or len(shape.numbers_of("handle")) > MAX_HANDLES:
         return False
-    return all([shape.free[number] == () for number in shape.quiet])
+    if shape.quiet == ():
+        return True
+    free = free_by_number(shape)
+    return all([free[number] == () for number in shape.quiet])
 
 
 def _is_renaming(value, names):
@@ -41,19 +45,19 @@ def _is_clear_renaming(value, names):
 
 
 def _read_line(line):
-    """The name and the nodes that a line tells; None if it is none."""
+    """The name and the tree that a line tells; None if it is none."""
     if not isinstance(line, str):
         return None
     name, colon, text = line.partition(": ")
-    nodes = read_nodes(text)
-    if colon == "" or not is_name(name) or nodes is None:
+    tree = read_tree(text)
+    if colon == "" or not is_name(name) or tree is None:
         return None
-    return name, nodes
+    return name, tree
 
 
-def _code_of(nodes):
+def _code_of(tree):
     try:
-        return Code(nodes)
+        return code_read(tree)
     except InvalidCode:
         raise InvalidProgram("a text is that of no code") from None
 
@@ -64,7 +68,7 @@ class Program:
     def __init__(self, functions):
         if not _is_functions(functions):
             raise InvalidProgram("a program is a dict from one to six names to codes that call no others")
-        shape = Shape({name: functions[name].nodes for name in sorted(functions)})
+        shape = Shape({name: functions[name].tree for name in sorted(functions)})
         if not _is_sound(shape):
             raise InvalidProgram("there is no such program")
         self._functions = {name: functions[name] for name in sorted(functions)}
@@ -78,7 +82,7 @@ class Program:
         rows = [_read_line(line) for line in lines]
         if None in rows:
             raise ParseError(rows.index(None))
-        functions = {name: _code_of(nodes) for name, nodes in rows}
+        functions = {name: _code_of(tree) for name, tree in rows}
         if len(functions) != len(rows):
             raise InvalidProgram("a name stands twice")
         return cls(functions)
@@ -126,7 +130,7 @@ class Program:
     @property
     def clauses(self):
         """The places of the tops of all clauses, ascending."""
-        return self._shape.places_of(self._shape.clause_tops)
+        return self._shape.places_of(tuple(sorted(self._shape.homes)))
 
     @property
     def shape(self):
@@ -140,10 +144,14 @@ class Program:
         return self._kept[word]
 
     def latest(self, word, key, make):
-        """The same for what would be too much to keep for all keys: for each word only that of the last key is kept."""
-        if word not in self._latest or self._latest[word][0] != key:
-            self._latest[word] = (key, make(self))
-        return self._latest[word][1]
+        """The same for what would be too much to keep for all keys: for each word only those of a few are kept."""
+        found = self._latest.setdefault(word, {})
+        if key not in found:
+            made = make(self)
+            if len(found) == MANY_LATEST:
+                del found[list(found)[0]]
+            found[key] = made
+        return found[key]
 
     def node(self, place):
         """The node at this place."""
@@ -151,7 +159,7 @@ class Program:
 
     def clause(self, place, label):
         """The place of the top of the clause that this handle has for the label."""
-        sides = self._shape.sides_of(self._shape.number_of(place, "handle"))
+        sides = self._shape.sides[self._shape.number_of(place, "handle")]
         if not isinstance(label, str) or label not in sides:
             raise UnknownName(label)
         return self._shape.spots[sides[label]]
@@ -175,7 +183,8 @@ class Program:
 
     def free_labels(self, place):
         """The free labels of this node, ascending."""
-        return self._shape.free[self._shape.number_at(place)]
+        number = self._shape.number_at(place)
+        return self.kept("free labels", lambda whole: free_by_number(whole.shape))[number]
 
     def is_quiet(self, place):
         """Whether this node has no free labels."""
@@ -184,7 +193,7 @@ class Program:
     def is_doubling(self, place):
         """Whether the clause with this top doubles."""
         number = self._shape.number_at(place)
-        if number not in self._shape.clause_tops:
+        if number not in self._shape.homes:
             raise UnknownPlace(place)
         return number in self._shape.doubling
 
@@ -246,11 +255,11 @@ class Program:
         return f"program of {len(self._functions)} functions, {len(self._shape.forms)} nodes"
 
 
-def program_from(codes):
-    """The program of a dict from names to nodes, whatever names they have and however many they are."""
-    program = Program({"f": Code((("done",),))})
-    program._functions = {name: code_from(codes[name]) for name in sorted(codes)}
-    program._shape = Shape({name: codes[name] for name in sorted(codes)})
+def program_from(functions):
+    """The program of a dict from names to codes, whatever names they have and however many they are."""
+    program = Program({"f": Code(DONE)})
+    program._functions = {name: functions[name] for name in sorted(functions)}
+    program._shape = Shape({name: functions[name].tree for name in sorted(functions)})
     return program
 
 

@@ -1,78 +1,82 @@
 """The shape of a whole program: all its nodes in one row, and what lies where."""
 
-from restwise.base.trees import child_tops, doubling_tops, free_labels, part_ends, quiet_tops, rest_homes
+from restwise.base.trees import free_masks, label_bits
 from restwise.base.words import is_integer
 from restwise.errors import UnknownPlace
 
 
-def _free_of_functions(codes, tops):
-    """For each function its free labels: the least sets that fit one another."""
-    free = {name: () for name in codes}
-    while True:
-        later = {name: free_labels(codes[name], tops[name], free)[0] for name in codes}
-        if later == free:
-            return free
-        free = later
-
-
-def _starts_of(codes):
+def _starts_of(trees):
     """For each function the number of its first node."""
     starts = {}
     ahead = 0
-    for name in codes:
+    for name, tree in trees.items():
         starts[name] = ahead
-        ahead = ahead + len(codes[name])
+        ahead = ahead + len(tree.forms)
     return starts
 
 
-def _owners_of(nodes, tops, start):
-    """For each node the number of the top of the clause to which a rest belongs, None for other nodes."""
-    homes = rest_homes(nodes, tops)
-    return [start + home if node[0] == "rest" else None for node, home in zip(nodes, homes)]
+def _rows_from(rows, start):
+    """The rows with numbers in the place of indices."""
+    return [tuple([start + index for index in row]) for row in rows]
 
 
-def _clause_tops(below):
-    """The numbers of the tops of all clauses, ascending: only handles have more than two children."""
-    return tuple(sorted([top for tops in below for top in tops[2:]]))
+def _above_of(below):
+    """For each node the number of the one whose child it is; None for the first one of a function."""
+    above = [None for _ in below]
+    for number, row in enumerate(below):
+        for child in row:
+            above[child] = number
+    return tuple(above)
 
 
-def _followings_of(nodes, below, ends, owners):
-    """For each rest the numbers of the parts that follow it in its clause, from the inside out."""
-    followings = {}
-    for rest, owner in enumerate(owners):
-        if owner is not None:
-            thens = [number for number in range(owner, rest) if nodes[number][0] == "then"]
-            firsts = [below[number] for number in thens if below[number][0] <= rest < ends[below[number][0]]]
-            followings[rest] = tuple([second for _, second in firsts[::-1]])
-    return followings
+def _owners_of(trees, starts):
+    """For each rest the number of the top of the clause to which it belongs."""
+    owners = {}
+    for name, tree in trees.items():
+        for index, node in enumerate(tree.forms):
+            if node[0] == "rest":
+                owners[starts[name] + index] = starts[name] + tree.homes[index]
+    return owners
 
 
 class Shape:
     """The nodes of a program, numbered in the order of their places. It never changes.
 
     A part is the numbers from that of its top up to its end, so whatever lies below a node
-    has a greater number.
+    has a greater number. `sides` has for each handle a dict from its labels to the tops of their
+    clauses, and `homes` for each such top its handle and its label; `works` has for each work its
+    handle. `followings` has for each rest the parts that follow it in its clause, from the inside out.
     """
 
-    def __init__(self, codes):
-        """`codes` is a dict from names, ascending, to nodes without loose rests; each called name is there."""
-        tops = {name: child_tops(codes[name], part_ends(codes[name])) for name in codes}
-        free = _free_of_functions(codes, tops)
-        starts = _starts_of(codes)
+    def __init__(self, trees):
+        """`trees` is a dict from names, ascending, to trees without loose rests; each called name is there."""
+        starts = _starts_of(trees)
         self.starts = starts
-        self.spots = tuple([(name, index) for name in codes for index in range(len(codes[name]))])
+        self.spots = tuple([(name, index) for name, tree in trees.items() for index in range(len(tree.forms))])
         self.numbers = {place: number for number, place in enumerate(self.spots)}
-        self.forms = tuple([node for name in codes for node in codes[name]])
-        self.ends = tuple([starts[name] + end for name in codes for end in part_ends(codes[name])])
-        self.below = tuple([tuple([starts[name] + top for top in row]) for name in codes for row in tops[name]])
-        self.owners = tuple([owner for name in codes for owner in _owners_of(codes[name], tops[name], starts[name])])
-        self.free = tuple([row for name in codes for row in free_labels(codes[name], tops[name], free)])
-        self.quiet = tuple([starts[name] + top for name in codes for top in quiet_tops(codes[name], tops[name])])
-        self.doubling = tuple([starts[name] + top for name in codes for top in doubling_tops(codes[name], tops[name])])
-        self.clause_tops = _clause_tops(self.below)
+        self.forms = tuple([node for tree in trees.values() for node in tree.forms])
+        self.ends = tuple([starts[name] + end for name, tree in trees.items() for end in tree.ends])
+        self.below = tuple([row for name, tree in trees.items() for row in _rows_from(tree.tops, starts[name])])
+        self.above = _above_of(self.below)
+        self.owners = _owners_of(trees, starts)
+        self.quiet = tuple([starts[name] + top for name, tree in trees.items() for top in tree.quiet])
+        self.doubling = tuple([starts[name] + top for name, tree in trees.items() for top in tree.doubling])
+        self.sides = {number: {label: top for label, top in zip(node[1:], self.below[number][2:])}
+                      for number, node in enumerate(self.forms) if node[0] == "handle"}
+        self.homes = {top: (handle, label) for handle, tops in self.sides.items() for label, top in tops.items()}
+        self.works = {self.below[handle][0]: handle for handle in self.sides}
+        self.followings = {rest: self._following(rest, owner) for rest, owner in self.owners.items()}
         asking = [node for node in self.forms if node[0] in ("ask", "handle")]
         self.label_names = tuple(sorted({label for node in asking for label in node[1:]}))
-        self.followings = _followings_of(self.forms, self.below, self.ends, self.owners)
+
+    def _following(self, rest, owner):
+        found = []
+        while rest != owner:
+            upper = self.above[rest]
+            if self.forms[upper][0] == "then" and self.below[upper][0] == rest:
+                found.append(self.below[upper][1])
+            rest = upper
+        return tuple(found)
 
     def has_place(self, value):
         """Whether the value is the place of a node."""
@@ -105,6 +109,18 @@ class Shape:
         """The number of the first node of the code in which this node stands."""
         return number - self.spots[number][1]
 
-    def sides_of(self, handle):
-        """A dict from the labels of a handle to the numbers of the tops of their clauses."""
-        return {label: top for label, top in zip(self.forms[handle][1:], self.below[handle][2:])}
+
+def free_by_number(shape):
+    """For each node its free labels, ascending."""
+    bits = label_bits(shape.forms)
+    is_calling = any([node[0] == "call" for node in shape.forms])
+    called = {name: 0 for name in shape.starts}
+    free = free_masks(shape.forms, shape.below, bits, called)
+    # The least sets that fit one another: each round tells more of what the called functions ask.
+    later = {name: free[start] for name, start in shape.starts.items()}
+    while is_calling and later != called:
+        called = later
+        free = free_masks(shape.forms, shape.below, bits, called)
+        later = {name: free[start] for name, start in shape.starts.items()}
+    told = {mask: tuple([label for label, bit in bits.items() if mask & bit]) for mask in free}
+    return tuple([told[mask] for mask in free])

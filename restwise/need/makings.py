@@ -5,7 +5,8 @@ number of a rest that goes on back.
 """
 
 from restwise.need.families import END
-from restwise.need.masks import chained, family_from, family_of, least_masks, united, with_outcome, without_own
+from restwise.need.masks import (NOTHING, chained, family_from, least_masks, pieces_behind, united, with_outcome,
+                                 without_own)
 
 
 def goes_by(families, number, outcome):
@@ -49,12 +50,12 @@ def is_again(shape, families, rest):
     return False
 
 
-def leaf_triples(bits, node, index):
-    """The facts of a node without children and calls, told as triples."""
+def leaf_family(bits, node, index):
+    """The family of a node without children and calls."""
     if node[0] == "ask":
         bit = bits[node[1]]
-        return [(0, 0, node), (0, bit, END), (bit, 0, END)]
-    return [(0, 0, ("rest", index) if node[0] == "rest" else END)]
+        return {(0, node): NOTHING, (0, END): (bit,), (bit, END): NOTHING}
+    return {(0, ("rest", index) if node[0] == "rest" else END): NOTHING}
 
 
 def family_made(shape, bits, number, families, backs):
@@ -71,7 +72,7 @@ def family_made(shape, bits, number, families, backs):
         return chained(families[below[0]], families[below[1]], END)
     if node[0] == "handle":
         return _handle_family(shape, bits, number, families, backs)
-    return family_of(leaf_triples(bits, node, shape.spots[number][1]))
+    return leaf_family(bits, node, shape.spots[number][1])
 
 
 def _to_rests(shape, top, family, backs):
@@ -95,6 +96,8 @@ def level_in(mask, bit):
 def _replacements(mask, rests):
     """The masks in which each label of the handle is replaced by those of a way of its clause to a rest."""
     made = [mask_without(mask, rests)]
+    if made == [mask]:
+        return made
     for bit, ways in rests.items():
         level = level_in(mask, bit)
         if level > 0:
@@ -119,27 +122,27 @@ def _replaced(work, rests):
     return family_from(pieces)
 
 
-def _to(outcome, masks):
-    """The family of the facts with these own bits and masks, and this outcome."""
-    return {(own, outcome): row for own, row in masks.items()}
+def _pieces_to(family, word):
+    """The part of a family with outcomes that begin with this word."""
+    return {key: masks for key, masks in family.items() if key[1][0] == word}
 
 
 def _handle_family(shape, bits, number, families, backs):
     """The family of a handle: its work with labels replaced, and behind it what comes in its place."""
     work, last = shape.below[number][:2]
-    sides = shape.sides_of(number)
+    sides = shape.sides[number]
     going = {bits[label]: _to_rests(shape, top, families[top], None) for label, top in sides.items()}
     coming = {bits[label]: _to_rests(shape, top, families[top], backs) for label, top in sides.items()}
-    made = []
+    pieces = []
     for outcome in sorted({outcome for _, outcome in families[work]}):
         facts = with_outcome(families[work], outcome)
-        on = _replaced(facts, going)
         if outcome == END or outcome[1] in sides:
             beside = families[last if outcome == END else sides[outcome[1]]]
-            asked = {key: masks for key, masks in beside.items() if key[1][0] == "ask"}
-            ended = {key: masks for key, masks in beside.items() if key[1] == END}
-            made.append(chained(_to(END, on), asked, END))
-            made.append(chained(_to(END, _replaced(facts, coming)), ended, END))
+            asked, ended = _pieces_to(beside, "ask"), _pieces_to(beside, "end")
+            if asked:
+                pieces.extend(pieces_behind(_replaced(facts, going), asked))
+            if ended:
+                pieces.extend(pieces_behind(_replaced(facts, coming), ended))
         else:
-            made.append(_to(outcome, on))
-    return united(made)
+            pieces.extend([((own, outcome), masks) for own, masks in _replaced(facts, going).items()])
+    return family_from(pieces)

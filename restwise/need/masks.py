@@ -6,6 +6,9 @@ whose labels are all "on", and the bit of the label for a pair. A family is a di
 (own, outcome) to the least masks, ascending.
 """
 
+# The masks of a fact for which nothing is asked.
+NOTHING = (0,)
+
 
 def least_masks(masks):
     """Those of the masks that no other one of them covers, ascending."""
@@ -62,26 +65,42 @@ def met(one, other):
                         for key, masks in one.items()])
 
 
-def _chained_piece(own, masks, later, others):
+def _piece_behind(own, masks, later, others):
     """The own bit and the masks of what comes to the end with these first masks and goes on with the other ones."""
+    if own == 0 and masks == NOTHING:
+        return later, others
     if own == 0:
         return later, [without_own(later, mask | other) for mask in masks for other in others]
     return own, [mask | 3 * other for mask in masks for other in others]
 
 
+def pieces_behind(ends, other):
+    """The keys and the masks of what has the second family and comes behind ends with these own bits and masks.
+
+    Behind a way come ways and pairs, with the labels of the way "on"; behind a pair come ways only,
+    with their labels "back".
+    """
+    pieces = []
+    for own, masks in ends.items():
+        for (later, outcome), others in other.items():
+            if own == 0 or later == 0:
+                bit, made = _piece_behind(own, masks, later, others)
+                pieces.append(((bit, outcome), made))
+    return pieces
+
+
 def chained(one, other, end):
     """The family of code in which what has the second family comes behind what has the first one.
 
-    Behind a way to the end come ways and pairs, with the labels of the way "on"; behind a pair to
-    the end come ways only, with their labels "back". What has not come to the end stays as it is.
+    What has not come to the end stays as it is.
     """
-    pieces = [(key, masks) for key, masks in one.items() if key[1] != end]
-    for own, masks in with_outcome(one, end).items():
-        for (later, outcome), others in other.items():
-            if own == 0 or later == 0:
-                bit, made = _chained_piece(own, masks, later, others)
-                pieces.append(((bit, outcome), made))
-    return family_from(pieces)
+    only_end = {(0, end): NOTHING}
+    if one == only_end:
+        return other
+    if other == only_end:
+        return one
+    kept = [(key, masks) for key, masks in one.items() if key[1] != end]
+    return family_from(kept + pieces_behind(with_outcome(one, end), other))
 
 
 def with_outcome(family, wanted):

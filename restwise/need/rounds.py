@@ -21,7 +21,7 @@ def _parts_of(shape, item):
     if node[0] == "call":
         return [shape.starts[node[1]]]
     tops = shape.below[item][2:]
-    return list(shape.below[item]) + [size + rest for rest, owner in enumerate(shape.owners) if owner in tops]
+    return list(shape.below[item]) + [size + rest for rest, owner in shape.owners.items() if owner in tops]
 
 
 def _users_of(shape, items):

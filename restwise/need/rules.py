@@ -16,7 +16,7 @@ def is_outcome_at(shape, number, outcome):
     if outcome[0] != "rest":
         return True
     rest = shape.start_of(number) + outcome[1]
-    if not number <= rest < shape.ends[number] or shape.owners[rest] is None:
+    if not number <= rest < shape.ends[number] or rest not in shape.owners:
         return False
     # A clause that has the rest and begins ahead of the node is around it.
     return shape.owners[rest] <= number

@@ -4,8 +4,8 @@ An item is a pair (number of a node, triple of a fact), with the triple `BACK` f
 """
 
 from restwise.need.families import END
-from restwise.need.makings import leaf_triples, level_in, mask_without
-from restwise.need.masks import without_own
+from restwise.need.makings import leaf_family, level_in, mask_without
+from restwise.need.masks import triples_of, without_own
 
 BACK = (0, 0, ("back",))
 END_WAY = (0, 0, END)
@@ -42,7 +42,7 @@ def handle_slots(shape, bits, item, work):
     """
     number, (own, _, outcome) = item
     work_own, work_mask, work_outcome = work
-    sides = shape.sides_of(number)
+    sides = shape.sides[number]
     tops = {bits[label]: top for label, top in sides.items()}
     is_in_clause = work_own in tops
     # A way comes of ways only, and a pair that is made in no clause keeps its label.
@@ -77,7 +77,7 @@ def with_back(shape, slot, item, is_needed):
 
 def bare_mask(shape, bits, number, work):
     """The mask of a fact of the work without the labels of the handle."""
-    return mask_without(work[1], [bits[label] for label in shape.sides_of(number)])
+    return mask_without(work[1], [bits[label] for label in shape.sides[number]])
 
 
 def _is_handle_made(shape, bits, item, used):
@@ -106,7 +106,7 @@ def handle_word(shape, number, work, outcome):
     """The word of the rule of a handle that makes a fact with this outcome of this one of the work."""
     if work[2] == END:
         return "ended" if outcome == END else "last"
-    if work[2][1] not in shape.sides_of(number):
+    if work[2][1] not in shape.sides[number]:
         return "passed"
     return "dropped" if outcome == END else "asked"
 
@@ -140,7 +140,7 @@ def rule_of(shape, bits, item, used):
     if triple == BACK:
         return "back" if _is_back_made(shape, number, used) else None
     if node[0] in LEAVES:
-        is_leaf = triple in leaf_triples(bits, node, shape.spots[number][1])
+        is_leaf = triple in triples_of(leaf_family(bits, node, shape.spots[number][1]))
         return "leaf" if is_leaf and not used else None
     if node[0] == "handle":
         is_made = _is_handle_made(shape, bits, item, used)

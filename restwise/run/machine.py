@@ -146,7 +146,7 @@ class Machine:
         if at > 0:
             handle = self.owners[at]
             self.happened.append(("ask", place, self.form.spots[handle]))
-            self._answer(at, self.form.sides_of(handle)[label])
+            self._answer(at, self.form.sides[handle][label])
         elif label in self.let:
             self.happened.append(("ask", place, ()))
             self.let_asks.append(label)

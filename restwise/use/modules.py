@@ -2,6 +2,7 @@
 
 from restwise.base.codes import Code, code_from
 from restwise.base.programs import Program, check_name, check_program
+from restwise.base.trees import tree_with
 from restwise.base.words import MAX_LABELS, is_labels, is_name
 from restwise.errors import InvalidFact, InvalidOperation, InvalidWord
 from restwise.need.families import END, is_fact, level_of
@@ -136,7 +137,8 @@ def _does_part(program, name, other, parts):
 
 def _calling(code, name, other):
     """The code in which each call of the first function calls the other one instead."""
-    return code_from(tuple([("call", other) if node == ("call", name) else node for node in code.nodes]))
+    nodes = tuple([("call", other) if node == ("call", name) else node for node in code.nodes])
+    return code_from(tree_with(code.tree, nodes), False)
 
 
 def exchanged(program, name, other):
