@@ -14,8 +14,9 @@ MAX_STANDINGS = 20000
 class Spread:
     """What is come to and ended, in the order in which it was found.
 
-    `come` tells for each standing by which rule, and from which standings: the one that has the
-    node, and behind it for the second child of a then perhaps an ended rest.
+    `reasons` tells for each standing by which rule, and from which standings: the one that has the
+    node, and behind it for the second child of a then perhaps an ended rest. `come_numbers` has the
+    nodes that are come to in some context.
     """
 
     def __init__(self, ground, start):
